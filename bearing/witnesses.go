@@ -1,0 +1,90 @@
+package bearing
+
+import (
+	"cmp"
+	"slices"
+	"sync"
+)
+
+// best returns the best of several things, by an order in which it is the least; the first one if they are equally good.
+func best[T any](compare func(a, b T) int, first T, others ...T) T {
+	for _, x := range others {
+		if compare(x, first) < 0 {
+			first = x
+		}
+	}
+	return first
+}
+
+// fewest compares lists by how many elements they have, and then by these.
+func fewest(a, b []int) int {
+	return cmp.Or(cmp.Compare(len(a), len(b)), slices.Compare(a, b))
+}
+
+// together tells whether all of a group can be right together, whoever else is false.
+func (c checked) together(g group) bool {
+	for s := range c.settings() {
+		if c.wrong(s)&g == 0 {
+			return true
+		}
+	}
+	return false
+}
+
+// clashes tells whether those of a group cannot be right together.
+func (c checked) clashes(g group) bool { return !c.together(g) }
+
+// spares tells whether without a group all others can be right together.
+func (c checked) spares(g group) bool { return c.together(c.everybody().without(g)) }
+
+// lists returns the lists of witnesses of whom something is so, in any order.
+func (c checked) lists(isSo func(group) bool) [][]int {
+	many := int(c.everybody()) + 1
+	found := make(chan group, many)
+	var workers sync.WaitGroup
+	for g := range many {
+		workers.Add(1)
+		go func() {
+			defer workers.Done()
+			if isSo(group(g)) {
+				found <- group(g)
+			}
+		}()
+	}
+	workers.Wait()
+	close(found)
+	var lists [][]int
+	for g := range found {
+		lists = append(lists, g.list())
+	}
+	return lists
+}
+
+// spared returns the fewest witnesses without whom all others can be right together.
+func (c checked) spared() []int {
+	return best(fewest, c.everybody().list(), c.lists(c.spares)...)
+}
+
+// clash returns the fewest witnesses who cannot be right together, or nobody.
+func (c checked) clash() []int {
+	all := c.everybody()
+	if c.together(all) {
+		return nil
+	}
+	return best(fewest, all.list(), c.lists(c.clashes)...)
+}
+
+// answer is a witness of whom something is to be found out, and how many cases are left then, at most.
+type answer struct{ witness, left int }
+
+func fewerLeft(a, b answer) int { return cmp.Compare(a.left, b.left) }
+
+// ask returns the best witness to ask about, or -1 if nobody leaves fewer cases than there are.
+func (c checked) ask(cases int) answer {
+	var answers []answer
+	for i := range len(c.Witnesses) {
+		yes, all := c.count(suspect(i).isFalse)
+		answers = append(answers, answer{witness: i, left: max(yes, all-yes)})
+	}
+	return best(fewerLeft, answer{witness: -1, left: cases}, answers...)
+}

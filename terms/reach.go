@@ -1,0 +1,18 @@
+// Package terms holds what the sections Terms and Rules of DOC.md say for all layers: reaches, and the forms of texts.
+package terms
+
+import "lagan/api"
+
+// IsReach tells whether r is a reach from a to b.
+func IsReach(r api.Reach, a, b int) bool {
+	return a <= r.Least && r.Least <= r.Most && r.Most <= b
+}
+
+// Common returns what two reaches have in common, and whether that is something.
+func Common(r, x api.Reach) (api.Reach, bool) {
+	c := api.Reach{Least: max(r.Least, x.Least), Most: min(r.Most, x.Most)}
+	if c.Least > c.Most {
+		return api.Reach{}, false
+	}
+	return c, true
+}

@@ -1,0 +1,105 @@
+package terms
+
+import (
+	"slices"
+	"strconv"
+	"strings"
+
+	"lagan/api"
+)
+
+const (
+	lineFeed  = "\n"
+	blank     = " "
+	colon     = ":"
+	minus     = "-"
+	maxDigits = 9
+)
+
+// Lines returns the lines of a text, without their line feeds; the last one need not have one.
+func Lines(text string) []string {
+	if text == "" {
+		return nil
+	}
+	return strings.Split(strings.TrimSuffix(text, lineFeed), lineFeed)
+}
+
+// PrintLine joins a word and its fields to a line, with its line feed.
+func PrintLine(fields ...string) string {
+	return strings.Join(fields, blank) + lineFeed
+}
+
+// Fields returns the word of a line and its fields, and false if one of them is empty.
+func Fields(line string) ([]string, bool) {
+	fields := strings.Split(line, blank)
+	if slices.Contains(fields, "") {
+		return nil, false
+	}
+	return fields, true
+}
+
+// Number returns the number in a field, and whether the field has the form of one.
+func Number(field string) (int, bool) {
+	digits := strings.TrimPrefix(field, minus)
+	if len(digits) < 1 || len(digits) > maxDigits {
+		return 0, false
+	}
+	if digits[0] == '0' && field != "0" {
+		return 0, false
+	}
+	n := 0
+	for i := range len(digits) {
+		if digits[i] < '0' || digits[i] > '9' {
+			return 0, false
+		}
+		n = 10*n + int(digits[i]-'0')
+	}
+	if digits != field {
+		return -n, true
+	}
+	return n, true
+}
+
+// PrintNumber writes a number.
+func PrintNumber(n int) string { return strconv.Itoa(n) }
+
+// Numbers returns the numbers in fields, and whether there are so many and each has the form of one.
+func Numbers(fields []string, many int) ([]int, bool) {
+	if len(fields) != many {
+		return nil, false
+	}
+	var numbers []int
+	for _, f := range fields {
+		n, ok := Number(f)
+		if !ok {
+			return nil, false
+		}
+		numbers = append(numbers, n)
+	}
+	return numbers, true
+}
+
+// Reach returns the reach in a field, and whether the field has the form of one; Most can be below Least.
+func Reach(field string) (api.Reach, bool) {
+	first, second, two := strings.Cut(field, colon)
+	least, ok := Number(first)
+	if !ok {
+		return api.Reach{}, false
+	}
+	if !two {
+		return api.Reach{Least: least, Most: least}, true
+	}
+	most, ok := Number(second)
+	if !ok || most == least {
+		return api.Reach{}, false
+	}
+	return api.Reach{Least: least, Most: most}, true
+}
+
+// PrintReach writes a reach.
+func PrintReach(r api.Reach) string {
+	if r.Least == r.Most {
+		return PrintNumber(r.Least)
+	}
+	return PrintNumber(r.Least) + colon + PrintNumber(r.Most)
+}
