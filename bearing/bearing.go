@@ -43,7 +43,7 @@ func Cases(b api.BearingChart) (int, api.Hitch) {
 	if h != api.Smooth {
 		return 0, h
 	}
-	return c.many(), api.Smooth
+	return terms.Many(c.cases()), api.Smooth
 }
 
 // Where returns the squares at which the wreck can be, in order.
@@ -78,7 +78,7 @@ func At(b api.BearingChart, s api.BearingSquare) (api.Known, api.Hitch) {
 	if !c.hasSquare(s) {
 		return api.Unsure, api.Missing
 	}
-	return c.known(place(s).hasWreck)
+	return terms.Known(c.cases(), place(s).hasWreck)
 }
 
 // Off returns by how much a compass can be off, ascending.
@@ -106,7 +106,7 @@ func False(b api.BearingChart, witness int) (api.Known, api.Hitch) {
 	if !c.hasWitness(witness) {
 		return api.Unsure, api.Missing
 	}
-	return c.known(suspect(witness).isFalse)
+	return terms.Known(c.cases(), suspect(witness).isFalse)
 }
 
 // Sound tells whether all witnesses can be right together.
@@ -142,7 +142,7 @@ func Ask(b api.BearingChart) (witness, left int, h api.Hitch) {
 	if h != api.Smooth {
 		return 0, 0, h
 	}
-	cases := c.many()
+	cases := terms.Many(c.cases())
 	if cases == 0 {
 		return 0, 0, api.Adrift
 	}
@@ -214,9 +214,9 @@ func Parse(text string) (b api.BearingChart, line int, h api.Hitch) {
 		return api.BearingChart{}, 0, api.Number
 	}
 	b, err := readChart(text)
-	var wrong wrongLine
+	var wrong terms.WrongLine
 	if errors.As(err, &wrong) {
-		return api.BearingChart{}, wrong.number, api.Shape
+		return api.BearingChart{}, wrong.Number, api.Shape
 	}
 	if h := CheckChart(b); h != api.Smooth {
 		return api.BearingChart{}, 0, h

@@ -37,23 +37,13 @@ func check(b api.BearingChart) (checked, api.Hitch) {
 	return checked{book: k, suspects: k.suspectGroups()}, api.Smooth
 }
 
-func within(n, least, most int) bool { return least <= n && n <= most }
-
-// hitchUnless returns the hitch, or Smooth if all is well.
-func hitchUnless(well bool, h api.Hitch) api.Hitch {
-	if well {
-		return api.Smooth
-	}
-	return h
-}
-
 func (b book) checkSize() api.Hitch {
-	well := within(b.Wide, 2, api.MaxBearingSide) && within(b.High, 2, api.MaxBearingSide)
-	return hitchUnless(well && within(b.False, 0, api.MaxBearingFalse), api.Bounds)
+	well := terms.Within(b.Wide, 2, api.MaxBearingSide) && terms.Within(b.High, 2, api.MaxBearingSide)
+	return terms.HitchUnless(well && terms.Within(b.False, 0, api.MaxBearingFalse), api.Bounds)
 }
 
 func (b book) countCompasses() api.Hitch {
-	return hitchUnless(within(len(b.Compasses), 1, api.MaxBearingCompasses), api.Number)
+	return terms.HitchUnless(terms.Within(len(b.Compasses), 1, api.MaxBearingCompasses), api.Number)
 }
 
 func (b book) checkCompasses() api.Hitch {
@@ -71,12 +61,12 @@ func isOff(r api.Reach) bool {
 }
 
 func (b book) countWitnesses() api.Hitch {
-	return hitchUnless(len(b.Witnesses) <= api.MaxBearingWitnesses, api.Number)
+	return terms.HitchUnless(len(b.Witnesses) <= api.MaxBearingWitnesses, api.Number)
 }
 
 func (b book) checkWitnesses() api.Hitch {
 	for _, w := range b.Witnesses {
-		if !isPlace(w.At) || !within(w.Bearing, 0, bearings-1) {
+		if !isPlace(w.At) || !terms.Within(w.Bearing, 0, bearings-1) {
 			return api.Bounds
 		}
 		if !b.hasCompass(w.Compass) {
@@ -88,16 +78,16 @@ func (b book) checkWitnesses() api.Hitch {
 
 // isPlace tells whether a place is as near to the corner of a chart as places are.
 func isPlace(s api.BearingSquare) bool {
-	return within(s.East, -api.MaxBearingAt, api.MaxBearingAt) && within(s.North, -api.MaxBearingAt, api.MaxBearingAt)
+	return terms.Within(s.East, -api.MaxBearingAt, api.MaxBearingAt) && terms.Within(s.North, -api.MaxBearingAt, api.MaxBearingAt)
 }
 
 func (b book) hasSquare(s api.BearingSquare) bool {
-	return within(s.East, 0, b.Wide-1) && within(s.North, 0, b.High-1)
+	return terms.Within(s.East, 0, b.Wide-1) && terms.Within(s.North, 0, b.High-1)
 }
 
-func (b book) hasCompass(i int) bool { return within(i, 0, len(b.Compasses)-1) }
+func (b book) hasCompass(i int) bool { return terms.Within(i, 0, len(b.Compasses)-1) }
 
-func (b book) hasWitness(i int) bool { return within(i, 0, len(b.Witnesses)-1) }
+func (b book) hasWitness(i int) bool { return terms.Within(i, 0, len(b.Witnesses)-1) }
 
 // checkCase returns the hitch of a case that is handed in.
 func (b book) checkCase(c api.BearingCase) api.Hitch {
@@ -108,19 +98,11 @@ func (b book) checkCase(c api.BearingCase) api.Hitch {
 		return api.Number
 	}
 	for _, off := range c.Offs {
-		if !within(off, -api.MaxBearingOff, api.MaxBearingOff) {
+		if !terms.Within(off, -api.MaxBearingOff, api.MaxBearingOff) {
 			return api.Bounds
 		}
 	}
-	for i, w := range c.False {
-		if !b.hasWitness(w) {
-			return api.Missing
-		}
-		if i > 0 && w <= c.False[i-1] {
-			return api.Crossed
-		}
-	}
-	return api.Smooth
+	return terms.CheckIndexes(c.False, len(b.Witnesses))
 }
 
 // clone returns a book that shares no memory with this one.
@@ -136,7 +118,7 @@ func (b book) told() (api.BearingChart, api.Hitch) {
 	if h != api.Smooth {
 		return api.BearingChart{}, h
 	}
-	if !c.hasCase() {
+	if !terms.HasCase(c.cases()) {
 		return api.BearingChart{}, api.Adrift
 	}
 	return b.BearingChart, api.Smooth

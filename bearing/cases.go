@@ -99,22 +99,6 @@ func (c checked) cases() iter.Seq[wreckCase] {
 	}
 }
 
-// many returns how many cases there are.
-func (c checked) many() int {
-	all := 0
-	for range c.cases() {
-		all++
-	}
-	return all
-}
-
-func (c checked) hasCase() bool {
-	for range c.cases() {
-		return true
-	}
-	return false
-}
-
 func (c checked) isCase(want wreckCase) bool {
 	if !c.canBeOff(want.offs) {
 		return false
@@ -146,31 +130,6 @@ func (p place) hasWreck(x wreckCase) bool { return x.at == api.BearingSquare(p) 
 type suspect int
 
 func (s suspect) isFalse(x wreckCase) bool { return x.liars.has(int(s)) }
-
-// count returns in how many cases something is so, and how many there are.
-func (c checked) count(isSo func(wreckCase) bool) (yes, all int) {
-	for x := range c.cases() {
-		if isSo(x) {
-			yes++
-		}
-		all++
-	}
-	return yes, all
-}
-
-// known returns how well something is known, or Adrift if there is no case.
-func (c checked) known(isSo func(wreckCase) bool) (api.Known, api.Hitch) {
-	yes, all := c.count(isSo)
-	switch {
-	case all == 0:
-		return api.Unsure, api.Adrift
-	case yes == all:
-		return api.Surely, api.Smooth
-	case yes == 0:
-		return api.Never, api.Smooth
-	}
-	return api.Unsure, api.Smooth
-}
 
 // where returns the squares at which the wreck can be, in order.
 func (c checked) where() []api.BearingSquare {

@@ -1,7 +1,6 @@
 package bearing
 
 import (
-	"strconv"
 	"strings"
 
 	"lagan/api"
@@ -80,28 +79,20 @@ func (c checked) print() string {
 	return text.String()
 }
 
-// wrongLine is the number of a line that does not have its form or is out of order, or 0 if there are no lines.
-type wrongLine struct{ number int }
-
-func (w wrongLine) Error() string { return "wrong line " + strconv.Itoa(w.number) }
-
-// readChart reads a book, which may have a hitch.
+// readChart reads a book, which may have a hitch; a line that is wrong is its error.
 func readChart(text string) (api.BearingChart, error) {
-	all := terms.Lines(text)
-	if len(all) == 0 {
-		return api.BearingChart{}, wrongLine{number: 0}
-	}
 	var b api.BearingChart
-	last := chartRank
-	for i, s := range all {
-		l, ok := readLine(s)
-		if !ok || (i == 0) != (l.rank() == chartRank) || l.rank() < last {
-			return api.BearingChart{}, wrongLine{number: i + 1}
+	first, last := true, chartRank
+	err := terms.ReadLines(text, func(fields []string) bool {
+		l, ok := readLine(fields)
+		if !ok || first != (l.rank() == chartRank) || l.rank() < last {
+			return false
 		}
-		last = l.rank()
+		first, last = false, l.rank()
 		b = withLine(b, l)
-	}
-	return b, nil
+		return true
+	})
+	return b, err
 }
 
 // withLine returns a book with what a line says.
@@ -117,12 +108,8 @@ func withLine(b api.BearingChart, l line) api.BearingChart {
 	return b
 }
 
-// readLine reads a line, and tells whether it has its form.
-func readLine(s string) (line, bool) {
-	fields, ok := terms.Fields(s)
-	if !ok {
-		return nil, false
-	}
+// readLine reads the word and the fields of a line, and tells whether it has its form.
+func readLine(fields []string) (line, bool) {
 	switch fields[0] {
 	case chartWord:
 		return readChartLine(fields[1:])

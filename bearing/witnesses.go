@@ -2,24 +2,10 @@ package bearing
 
 import (
 	"cmp"
-	"slices"
 	"sync"
+
+	"lagan/terms"
 )
-
-// best returns the best of several things, by an order in which it is the least; the first one if they are equally good.
-func best[T any](compare func(a, b T) int, first T, others ...T) T {
-	for _, x := range others {
-		if compare(x, first) < 0 {
-			first = x
-		}
-	}
-	return first
-}
-
-// fewest compares lists by how many elements they have, and then by these.
-func fewest(a, b []int) int {
-	return cmp.Or(cmp.Compare(len(a), len(b)), slices.Compare(a, b))
-}
 
 // together tells whether all of a group can be right together, whoever else is false.
 func (c checked) together(g group) bool {
@@ -62,7 +48,7 @@ func (c checked) lists(isSo func(group) bool) [][]int {
 
 // spared returns the fewest witnesses without whom all others can be right together.
 func (c checked) spared() []int {
-	return best(fewest, c.everybody().list(), c.lists(c.spares)...)
+	return terms.Best(terms.Fewest, c.everybody().list(), c.lists(c.spares)...)
 }
 
 // clash returns the fewest witnesses who cannot be right together, or nobody.
@@ -71,7 +57,7 @@ func (c checked) clash() []int {
 	if c.together(all) {
 		return nil
 	}
-	return best(fewest, all.list(), c.lists(c.clashes)...)
+	return terms.Best(terms.Fewest, all.list(), c.lists(c.clashes)...)
 }
 
 // answer is a witness of whom something is to be found out, and how many cases are left then, at most.
@@ -83,8 +69,8 @@ func fewerLeft(a, b answer) int { return cmp.Compare(a.left, b.left) }
 func (c checked) ask(cases int) answer {
 	var answers []answer
 	for i := range len(c.Witnesses) {
-		yes, all := c.count(suspect(i).isFalse)
+		yes, all := terms.Count(c.cases(), suspect(i).isFalse)
 		answers = append(answers, answer{witness: i, left: max(yes, all-yes)})
 	}
-	return best(fewerLeft, answer{witness: -1, left: cases}, answers...)
+	return terms.Best(fewerLeft, answer{witness: -1, left: cases}, answers...)
 }

@@ -1,6 +1,7 @@
 package terms_test
 
 import (
+	"errors"
 	"math"
 	"slices"
 	"testing"
@@ -10,6 +11,115 @@ import (
 )
 
 func reach(least, most int) api.Reach { return api.Reach{Least: least, Most: most} }
+
+func TestWithin(t *testing.T) {
+	for n, want := range map[int]bool{-3: true, 0: true, 5: true, -4: false, 6: false, math.MinInt: false, math.MaxInt: false} {
+		if is := terms.Within(n, -3, 5); is != want {
+			t.Errorf("%d: %v", n, is)
+		}
+		if is := terms.Has(reach(-3, 5), n); is != want {
+			t.Errorf("%d of a reach: %v", n, is)
+		}
+	}
+}
+
+func TestHitchUnless(t *testing.T) {
+	if h := terms.HitchUnless(true, api.Label); h != api.Smooth {
+		t.Error(h)
+	}
+	if h := terms.HitchUnless(false, api.Label); h != api.Label {
+		t.Error(h)
+	}
+}
+
+func TestCheckIndexes(t *testing.T) {
+	for i, x := range []struct {
+		list []int
+		want api.Hitch
+	}{
+		{nil, api.Smooth}, {[]int{0}, api.Smooth}, {[]int{0, 2}, api.Smooth}, {[]int{0, 1, 2}, api.Smooth},
+		{[]int{3}, api.Missing}, {[]int{-1}, api.Missing}, {[]int{math.MinInt}, api.Missing}, {[]int{1, 0}, api.Crossed}, {[]int{1, 1}, api.Crossed},
+		{[]int{1, 0, 3}, api.Crossed}, {[]int{1, 3, 0}, api.Missing}, {[]int{2, -1}, api.Missing},
+	} {
+		if h := terms.CheckIndexes(x.list, 3); h != x.want {
+			t.Errorf("%d: %v", i, h)
+		}
+	}
+}
+
+func TestCases(t *testing.T) {
+	isOdd := func(n int) bool { return n%2 != 0 }
+	for i, x := range []struct {
+		cases []int
+		yes   int
+		want  api.Known
+		h     api.Hitch
+	}{
+		{nil, 0, api.Unsure, api.Adrift}, {[]int{1}, 1, api.Surely, api.Smooth}, {[]int{1, 3}, 2, api.Surely, api.Smooth},
+		{[]int{2}, 0, api.Never, api.Smooth}, {[]int{2, 4}, 0, api.Never, api.Smooth}, {[]int{1, 2, 3}, 2, api.Unsure, api.Smooth}, {[]int{2, 1}, 1, api.Unsure, api.Smooth},
+	} {
+		if n := terms.Many(slices.Values(x.cases)); n != len(x.cases) {
+			t.Errorf("%d: Many: %d", i, n)
+		}
+		if is := terms.HasCase(slices.Values(x.cases)); is != (len(x.cases) > 0) {
+			t.Errorf("%d: HasCase: %v", i, is)
+		}
+		if yes, all := terms.Count(slices.Values(x.cases), isOdd); yes != x.yes || all != len(x.cases) {
+			t.Errorf("%d: Count: %d, %d", i, yes, all)
+		}
+		if u, h := terms.Known(slices.Values(x.cases), isOdd); u != x.want || h != x.h {
+			t.Errorf("%d: Known: %v, %v", i, u, h)
+		}
+	}
+}
+
+func TestBest(t *testing.T) {
+	for i, x := range []struct {
+		first, want []int
+		others      [][]int
+	}{
+		{[]int{1, 2}, []int{1, 2}, nil},
+		{[]int{1, 2}, []int{3}, [][]int{{3}, {1, 1}, {4}}},
+		{[]int{1, 2}, []int{1, 1}, [][]int{{1, 3}, {1, 1}, {0, 1, 2}}},
+		{[]int{1}, nil, [][]int{{0}, nil}},
+	} {
+		if l := terms.Best(terms.Fewest, x.first, x.others...); !slices.Equal(l, x.want) {
+			t.Errorf("%d: %v", i, l)
+		}
+	}
+	// The first one of several that are equally good.
+	type pair struct{ size, index int }
+	bySize := func(a, b pair) int { return a.size - b.size }
+	if p := terms.Best(bySize, pair{2, 0}, pair{1, 1}, pair{1, 2}, pair{2, 3}); p != (pair{1, 1}) {
+		t.Error(p)
+	}
+	if p := terms.Best(bySize, pair{1, 0}, pair{1, 1}); p != (pair{1, 0}) {
+		t.Error(p)
+	}
+}
+
+func TestReadLines(t *testing.T) {
+	for text, x := range map[string]struct {
+		line int
+		read []string
+	}{
+		"": {0, nil}, "\n": {1, nil}, "a b\nc": {-1, []string{"a", "b", "c"}}, "a b\nc\n": {-1, []string{"a", "b", "c"}},
+		"a\n\nc\n": {2, []string{"a"}}, "a\nb  b\n": {2, []string{"a"}}, "a\nb\nwrong x\nc\n": {3, []string{"a", "b", "wrong", "x"}},
+	} {
+		var read []string
+		err := terms.ReadLines(text, func(fields []string) bool {
+			read = append(read, fields...)
+			return fields[0] != "wrong"
+		})
+		var wrong terms.WrongLine
+		if is := errors.As(err, &wrong); is != (x.line >= 0) || is && wrong.Number != x.line || !slices.Equal(read, x.read) {
+			t.Errorf("%q: %v, %q", text, err, read)
+		}
+	}
+	if s := (terms.WrongLine{Number: 7}).Error(); s != "wrong line 7" {
+		t.Error(s)
+	}
+}
 
 func TestIsReach(t *testing.T) {
 	for r, want := range map[api.Reach]bool{

@@ -103,3 +103,23 @@ func PrintReach(r api.Reach) string {
 	}
 	return PrintNumber(r.Least) + colon + PrintNumber(r.Most)
 }
+
+// WrongLine is the number of a line that does not have its form or is out of order, or 0 if there are no lines.
+type WrongLine struct{ Number int }
+
+func (w WrongLine) Error() string { return "wrong line " + strconv.Itoa(w.Number) }
+
+// ReadLines hands the word and the fields of each line of a text on, in order, until a line is wrong: its error is that line's.
+func ReadLines(text string, read func(fields []string) bool) error {
+	all := Lines(text)
+	if len(all) == 0 {
+		return WrongLine{Number: 0}
+	}
+	for i, line := range all {
+		fields, ok := Fields(line)
+		if !ok || !read(fields) {
+			return WrongLine{Number: i + 1}
+		}
+	}
+	return nil
+}

@@ -1,0 +1,75 @@
+package drag
+
+import (
+	"slices"
+	"sync"
+
+	"lagan/terms"
+)
+
+// A list of news has the indexes of lines, and those of leads, each of which counts as many more as there are lines.
+
+// lists returns all lists of indexes below many.
+func lists(many int) [][]int {
+	all := [][]int{nil}
+	for i := range many {
+		for _, l := range all {
+			all = append(all, append(slices.Clone(l), i))
+		}
+	}
+	return all
+}
+
+// divide returns the lines and the leads of a list of news.
+func (b book) divide(news []int) (lines, leads []int) {
+	for _, i := range news {
+		if i < len(b.Lines) {
+			lines = append(lines, i)
+		} else {
+			leads = append(leads, i-len(b.Lines))
+		}
+	}
+	return lines, leads
+}
+
+// only returns the book with no other news than those of a list.
+func (b book) only(news []int) book {
+	o := b
+	o.Lines, o.Leads = nil, nil
+	lines, leads := b.divide(news)
+	for _, i := range lines {
+		o.Lines = append(o.Lines, b.Lines[i])
+	}
+	for _, i := range leads {
+		o.Leads = append(o.Leads, b.Leads[i])
+	}
+	return o
+}
+
+// clashes tells whether there is no case with the news of a list alone.
+func (c checked) clashes(news []int) bool {
+	o := c
+	o.book = c.only(news)
+	return !terms.HasCase(o.cases())
+}
+
+// clash returns the fewest news with which alone there is no case, of a book that has none.
+func (c checked) clash() []int {
+	all := lists(len(c.Lines) + len(c.Leads))
+	var lock sync.Mutex
+	var found [][]int
+	var workers sync.WaitGroup
+	for _, l := range all {
+		workers.Add(1)
+		go func() {
+			defer workers.Done()
+			if c.clashes(l) {
+				lock.Lock()
+				defer lock.Unlock()
+				found = append(found, l)
+			}
+		}()
+	}
+	workers.Wait()
+	return terms.Best(terms.Fewest, all[len(all)-1], found...)
+}
