@@ -146,8 +146,8 @@ func Ask(b api.BearingChart) (witness, left int, h api.Hitch) {
 	if cases == 0 {
 		return 0, 0, api.Adrift
 	}
-	a := c.ask(cases)
-	return a.witness, a.left, api.Smooth
+	witness, left = c.ask(cases)
+	return witness, left, api.Smooth
 }
 
 // Hear returns the book with one more witness.

@@ -3,10 +3,9 @@ package bearing
 import (
 	"cmp"
 	"iter"
-	"maps"
-	"slices"
 
 	"lagan/api"
+	"lagan/terms"
 )
 
 // offs is by how much each compass is off; it is 0 for those that the book does not have.
@@ -133,11 +132,7 @@ func (s suspect) isFalse(x wreckCase) bool { return x.liars.has(int(s)) }
 
 // where returns the squares at which the wreck can be, in order.
 func (c checked) where() []api.BearingSquare {
-	found := map[api.BearingSquare]bool{}
-	for x := range c.cases() {
-		found[x.at] = true
-	}
-	return slices.SortedFunc(maps.Keys(found), inOrder)
+	return terms.Found(c.cases(), func(x wreckCase) api.BearingSquare { return x.at }, inOrder)
 }
 
 func inOrder(a, b api.BearingSquare) int {
@@ -163,9 +158,5 @@ func widened(r api.Reach, n int) api.Reach {
 
 // offsOf returns by how much a compass is off in cases, ascending.
 func (c checked) offsOf(compass int) []int {
-	found := map[int]bool{}
-	for x := range c.cases() {
-		found[x.offs[compass]] = true
-	}
-	return slices.Sorted(maps.Keys(found))
+	return terms.Found(c.cases(), func(x wreckCase) int { return x.offs[compass] }, cmp.Compare[int])
 }

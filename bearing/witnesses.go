@@ -1,7 +1,6 @@
 package bearing
 
 import (
-	"cmp"
 	"sync"
 
 	"lagan/terms"
@@ -60,17 +59,12 @@ func (c checked) clash() []int {
 	return terms.Best(terms.Fewest, all.list(), c.lists(c.clashes)...)
 }
 
-// answer is a witness of whom something is to be found out, and how many cases are left then, at most.
-type answer struct{ witness, left int }
-
-func fewerLeft(a, b answer) int { return cmp.Compare(a.left, b.left) }
-
-// ask returns the best witness to ask about, or -1 if nobody leaves fewer cases than there are.
-func (c checked) ask(cases int) answer {
-	var answers []answer
+// ask returns the best witness to ask about, or -1 if nobody leaves fewer cases than there are, and how many are left then, at most.
+func (c checked) ask(cases int) (witness, left int) {
+	var lefts []int
 	for i := range len(c.Witnesses) {
 		yes, all := terms.Count(c.cases(), suspect(i).isFalse)
-		answers = append(answers, answer{witness: i, left: max(yes, all-yes)})
+		lefts = append(lefts, max(yes, all-yes))
 	}
-	return terms.Best(fewerLeft, answer{witness: -1, left: cases}, answers...)
+	return terms.Ask(cases, lefts)
 }

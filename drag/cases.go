@@ -1,11 +1,12 @@
 package drag
 
 import (
+	"cmp"
 	"iter"
-	"maps"
 	"slices"
 
 	"lagan/api"
+	"lagan/terms"
 )
 
 // bottom is what a case says of all but the lines: where the wreck lies, and which squares are mud.
@@ -170,22 +171,16 @@ type drawn int
 
 func (d drawn) wasSlack(x wreckCase) bool { return x.pulls[d].slack }
 
+func (d drawn) shift(x wreckCase) int { return x.pulls[d].shift }
+
 // where returns the squares on which the wreck can lie, in order.
 func (c checked) where() []api.DragSquare {
-	found := map[api.DragSquare]bool{}
-	for x := range c.cases() {
-		found[x.wreck] = true
-	}
-	return slices.SortedFunc(maps.Keys(found), inOrder)
+	return terms.Found(c.cases(), func(x wreckCase) api.DragSquare { return x.wreck }, inOrder)
 }
 
 // shifts returns the numbers by which the tide shifted a line in cases, ascending.
 func (c checked) shifts(line int) []int {
-	found := map[int]bool{}
-	for x := range c.cases() {
-		found[x.pulls[line].shift] = true
-	}
-	return slices.Sorted(maps.Keys(found))
+	return terms.Found(c.cases(), drawn(line).shift, cmp.Compare[int])
 }
 
 // unswept returns the squares that no line swept in any case, in order.

@@ -1,24 +1,12 @@
 package drag
 
 import (
-	"slices"
 	"sync"
 
 	"lagan/terms"
 )
 
 // A list of news has the indexes of lines, and those of leads, each of which counts as many more as there are lines.
-
-// lists returns all lists of indexes below many.
-func lists(many int) [][]int {
-	all := [][]int{nil}
-	for i := range many {
-		for _, l := range all {
-			all = append(all, append(slices.Clone(l), i))
-		}
-	}
-	return all
-}
 
 // divide returns the lines and the leads of a list of news.
 func (b book) divide(news []int) (lines, leads []int) {
@@ -55,7 +43,7 @@ func (c checked) clashes(news []int) bool {
 
 // clash returns the fewest news with which alone there is no case, of a book that has none.
 func (c checked) clash() []int {
-	all := lists(len(c.Lines) + len(c.Leads))
+	all := terms.Lists(len(c.Lines) + len(c.Leads))
 	var lock sync.Mutex
 	var found [][]int
 	var workers sync.WaitGroup

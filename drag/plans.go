@@ -1,8 +1,6 @@
 package drag
 
 import (
-	"cmp"
-
 	"lagan/api"
 	"lagan/terms"
 )
@@ -77,26 +75,26 @@ func cover(patches []patch, squares grid, many int) ([]api.DragSquare, bool) {
 	return nil, false
 }
 
-// advice is where to drag next, and how many squares are left then, at most; good tells whether fewer are left than there are.
-type advice struct {
-	at   api.DragSquare
-	left int
-	good bool
+// next returns the patch without a rock that tells most, how many squares are left then, at most, and whether one tells something.
+func (v survey) next() (at api.DragSquare, left int, found bool) {
+	var lefts []int
+	for _, p := range v.patches {
+		lefts = append(lefts, v.leftBy(p))
+	}
+	i, left := terms.Ask(len(v.where), lefts)
+	if i < 0 {
+		return api.DragSquare{}, left, false
+	}
+	return v.patches[i].at, left, true
 }
 
-func fewerLeft(a, b advice) int { return cmp.Compare(a.left, b.left) }
-
-// next returns the patch without a rock that tells most.
-func (v survey) next() advice {
-	var all []advice
-	for _, p := range v.patches {
-		if p.squares.meets(v.rocky) {
-			continue
-		}
-		in := v.wrecksIn(p)
-		all = append(all, advice{at: p.at, left: max(in, len(v.where)-in), good: true})
+// leftBy returns how many squares are left, at most, once a line was dragged over a patch: all of them if a rock is in it.
+func (v survey) leftBy(p patch) int {
+	if p.squares.meets(v.rocky) {
+		return len(v.where)
 	}
-	return terms.Best(fewerLeft, advice{left: len(v.where)}, all...)
+	in := v.wrecksIn(p)
+	return max(in, len(v.where)-in)
 }
 
 // wrecksIn returns on how many squares of a patch the wreck can lie.

@@ -19,3 +19,24 @@ func Best[T any](compare func(a, b T) int, first T, others ...T) T {
 func Fewest(a, b []int) int {
 	return cmp.Or(cmp.Compare(len(a), len(b)), slices.Compare(a, b))
 }
+
+// Bounds returns the least and the greatest of several numbers.
+func Bounds[N cmp.Ordered](first N, others ...N) (least, most N) {
+	least, most = first, first
+	for _, n := range others {
+		least, most = min(least, n), max(most, n)
+	}
+	return least, most
+}
+
+// Lists returns all lists of indexes below many, ascending each; the last one has all of them.
+func Lists(many int) [][]int {
+	all := [][]int{nil}
+	for i := range many {
+		// What is appended is not gone through: each list so far is joined by the same one with this index.
+		for _, l := range all {
+			all = append(all, append(slices.Clone(l), i))
+		}
+	}
+	return all
+}

@@ -2,6 +2,8 @@ package terms
 
 import (
 	"iter"
+	"maps"
+	"slices"
 
 	"lagan/api"
 )
@@ -46,4 +48,24 @@ func Known[C any](cases iter.Seq[C], isSo func(C) bool) (api.Known, api.Hitch) {
 		return api.Never, api.Smooth
 	}
 	return api.Unsure, api.Smooth
+}
+
+// Found returns what is told of cases, each thing once, in order.
+func Found[C any, K comparable](cases iter.Seq[C], tell func(C) K, inOrder func(a, b K) int) []K {
+	found := map[K]bool{}
+	for x := range cases {
+		found[tell(x)] = true
+	}
+	return slices.SortedFunc(maps.Keys(found), inOrder)
+}
+
+// Ask returns the index of what is to be asked, and how many cases are left then in the worst case, which left tells of each thing; -1, and how many cases there are, if nothing leaves fewer.
+func Ask(cases int, left []int) (index, fewest int) {
+	index, fewest = -1, cases
+	for i, many := range left {
+		if many < fewest {
+			index, fewest = i, many
+		}
+	}
+	return index, fewest
 }

@@ -1,8 +1,10 @@
 package terms_test
 
 import (
+	"cmp"
 	"errors"
 	"math"
+	"runtime"
 	"slices"
 	"testing"
 
@@ -95,6 +97,154 @@ func TestBest(t *testing.T) {
 	}
 	if p := terms.Best(bySize, pair{1, 0}, pair{1, 1}); p != (pair{1, 0}) {
 		t.Error(p)
+	}
+}
+
+func TestBounds(t *testing.T) {
+	for i, x := range []struct {
+		first       int
+		others      []int
+		least, most int
+	}{
+		{5, nil, 5, 5}, {5, []int{5, 5}, 5, 5}, {5, []int{7, -3, 6}, -3, 7}, {-1, []int{0}, -1, 0}, {1, []int{0}, 0, 1}, {0, []int{math.MaxInt, math.MinInt}, math.MinInt, math.MaxInt},
+	} {
+		if least, most := terms.Bounds(x.first, x.others...); least != x.least || most != x.most {
+			t.Errorf("%d: %d, %d", i, least, most)
+		}
+	}
+}
+
+func TestLists(t *testing.T) {
+	for many, want := range [][][]int{{nil}, {nil, {0}}, {nil, {0}, {1}, {0, 1}}, {nil, {0}, {1}, {0, 1}, {2}, {0, 2}, {1, 2}, {0, 1, 2}}} {
+		if l := terms.Lists(many); !slices.EqualFunc(l, want, slices.Equal) {
+			t.Errorf("%d: %v", many, l)
+		}
+	}
+	// No two of them share memory.
+	for i := range 31 {
+		all := terms.Lists(5)
+		all[i+1][0] = 9
+		for k, l := range terms.Lists(5) {
+			if k != i+1 && !slices.Equal(all[k], l) {
+				t.Errorf("%d: %v", k, all[k])
+			}
+		}
+	}
+}
+
+func TestFound(t *testing.T) {
+	half := func(n int) int { return n / 2 }
+	for i, x := range []struct{ cases, want []int }{
+		{nil, nil}, {[]int{4}, []int{2}}, {[]int{9, 4, 5, 1, 8}, []int{0, 2, 4}}, {[]int{-4, 4, -4}, []int{-2, 2}},
+	} {
+		if l := terms.Found(slices.Values(x.cases), half, cmp.Compare[int]); !slices.Equal(l, x.want) {
+			t.Errorf("%d: %v", i, l)
+		}
+	}
+	longest := func(a, b string) int { return len(b) - len(a) }
+	tell := func(s string) string { return s[1:] }
+	if l := terms.Found(slices.Values([]string{"ab", "bb", "cde"}), tell, longest); !slices.Equal(l, []string{"de", "b"}) {
+		t.Error(l)
+	}
+}
+
+func TestAsk(t *testing.T) {
+	for i, x := range []struct {
+		cases         int
+		left          []int
+		index, fewest int
+	}{
+		{5, nil, -1, 5}, {5, []int{5, 5}, -1, 5}, {5, []int{5, 4, 3, 3, 4}, 2, 3}, {5, []int{4}, 0, 4}, {2, []int{2, 1}, 1, 1}, {5, []int{6, 9}, -1, 5},
+	} {
+		if index, fewest := terms.Ask(x.cases, x.left); index != x.index || fewest != x.fewest {
+			t.Errorf("%d: %d, %d", i, index, fewest)
+		}
+	}
+}
+
+func TestGather(t *testing.T) {
+	// As many times as the number says, after the others where it is small.
+	times := func(n int) []int {
+		for range 10 - n {
+			runtime.Gosched()
+		}
+		return slices.Repeat([]int{n}, n)
+	}
+	for i, x := range []struct{ things, want []int }{
+		{nil, nil}, {[]int{0}, nil}, {[]int{0, 0, 0}, nil}, {[]int{1}, []int{1}}, {[]int{2, 0, 3, 1}, []int{2, 2, 3, 3, 3, 1}}, {[]int{0, 1, 2, 1, 0}, []int{1, 2, 2, 1}},
+	} {
+		for range 20 {
+			if l := terms.Gather(x.things, times); !slices.Equal(l, x.want) {
+				t.Fatalf("%d: %v", i, l)
+			}
+		}
+	}
+}
+
+// wrongAt returns the number of the line with which reading panics, or -1 if it does not.
+func wrongAt(text string, read func(terms.Line)) (number int) {
+	defer func() {
+		if wrong, ok := recover().(terms.WrongLine); ok {
+			number = wrong.Number
+		}
+	}()
+	terms.EachLine(text, read)
+	return -1
+}
+
+func TestEachLine(t *testing.T) {
+	for text, x := range map[string]struct {
+		line int
+		read []string
+	}{
+		"": {0, nil}, "\n": {1, nil}, "a b\nc": {-1, []string{"a", "c"}}, "a b\nc\n": {-1, []string{"a", "c"}},
+		"a\n\nc\n": {2, []string{"a"}}, "a\nb  b\n": {2, []string{"a"}}, "a\nb\nwrong x\nc\n": {3, []string{"a", "b", "wrong"}},
+	} {
+		var read []string
+		n := wrongAt(text, func(l terms.Line) {
+			read = append(read, l.Word())
+			l.Want(l.Word() != "wrong")
+		})
+		if n != x.line || !slices.Equal(read, x.read) {
+			t.Errorf("%q: %d, %q", text, n, read)
+		}
+	}
+}
+
+func TestLine(t *testing.T) {
+	var fields []string
+	var number int
+	var r api.Reach
+	var is, not bool
+	if n := wrongAt("a\nb 7 -3:5 yes no\n", func(l terms.Line) {
+		if l.Word() != "b" {
+			return
+		}
+		fields = l.Fields(4)
+		number, r = l.Number(fields[0]), l.Reach(fields[1])
+		is, not = l.Either(fields[2], "yes", "no"), l.Either(fields[3], "yes", "no")
+	}); n != -1 {
+		t.Fatal(n)
+	}
+	if !slices.Equal(fields, []string{"7", "-3:5", "yes", "no"}) || number != 7 || r != reach(-3, 5) || !is || not {
+		t.Errorf("%q, %d, %v, %v, %v", fields, number, r, is, not)
+	}
+	for i, read := range []func(l terms.Line){
+		func(l terms.Line) { l.Fields(3) },
+		func(l terms.Line) { l.Fields(5) },
+		func(l terms.Line) { l.Number("7:8") },
+		func(l terms.Line) { l.Reach("5:5") },
+		func(l terms.Line) { l.Either("Yes", "yes", "no") },
+		func(l terms.Line) { l.Either("", "yes", "no") },
+		func(l terms.Line) { panic(l.Wrong()) },
+	} {
+		if n := wrongAt("a\nb 7 -3:5 yes no\n", func(l terms.Line) {
+			if l.Word() == "b" {
+				read(l)
+			}
+		}); n != 2 {
+			t.Errorf("%d: line %d", i, n)
+		}
 	}
 }
 

@@ -1,0 +1,168 @@
+package slack
+
+import (
+	"slices"
+
+	"lagan/api"
+	"lagan/terms"
+)
+
+// book is a book that may have a hitch.
+type book struct{ api.SlackBook }
+
+// checked is a book without a hitch.
+type checked struct{ book }
+
+// things are what a book has several of: how many there are, how many there can be, and the hitch of each.
+type things struct {
+	count       func(book) int
+	least, most int
+	check       func(b book, i int) api.Hitch
+}
+
+// unknown is a number that all of a book shares: of which reach it is, and how far from 0 it can be.
+type unknown struct {
+	reach api.Reach
+	far   int
+}
+
+const manyUnknowns = 2
+
+// checks returns what is looked at for hitches, in order.
+func checks() []things {
+	return []things{
+		{count: book.countUnknowns, least: manyUnknowns, most: manyUnknowns, check: book.checkUnknown},
+		{count: book.countTurns, least: 1, most: api.MaxSlackTurns, check: book.checkTurn},
+		{count: book.countWatches, least: 0, most: api.MaxSlackWatches, check: book.checkWatch},
+	}
+}
+
+// hitch returns the hitch of these things of a book.
+func (x things) hitch(b book) api.Hitch {
+	many := x.count(b)
+	if !terms.Within(many, x.least, x.most) {
+		return api.Number
+	}
+	for i := range many {
+		if h := x.check(b, i); h != api.Smooth {
+			return h
+		}
+	}
+	return api.Smooth
+}
+
+func check(b api.SlackBook) (checked, api.Hitch) {
+	k := book{b}
+	for _, x := range checks() {
+		if h := x.hitch(k); h != api.Smooth {
+			return checked{}, h
+		}
+	}
+	return checked{book: k}, api.Smooth
+}
+
+// checkWithCase checks a book, and a case that is handed in with it.
+func checkWithCase(b api.SlackBook, x api.SlackCase) (checked, api.Hitch) {
+	c, h := check(b)
+	if h != api.Smooth {
+		return checked{}, h
+	}
+	return c, c.checkCase(x)
+}
+
+// checkWithWorks checks a book, and works that are handed in with it.
+func checkWithWorks(b api.SlackBook, works []int) (checked, api.Hitch) {
+	c, h := check(b)
+	if h != api.Smooth {
+		return checked{}, h
+	}
+	return c, checkWorks(works)
+}
+
+func (b book) unknowns() [manyUnknowns]unknown {
+	return [manyUnknowns]unknown{{reach: b.Shift, far: api.MaxSlackShift}, {reach: b.Clock, far: api.MaxSlackClock}}
+}
+
+func (b book) countUnknowns() int { return len(b.unknowns()) }
+
+func (b book) checkUnknown(i int) api.Hitch {
+	x := b.unknowns()[i]
+	return checkReach(x.reach, -x.far, x.far)
+}
+
+func (b book) countTurns() int { return len(b.Turns) }
+
+func (b book) checkTurn(i int) api.Hitch {
+	t := b.Turns[i]
+	if !terms.Within(t.At, api.MaxSlackFirst, api.MaxSlackLast) {
+		return api.Bounds
+	}
+	if i > 0 && t.At-b.Turns[i-1].At < api.MaxSlackFirst {
+		return api.Crossed
+	}
+	return checkReach(t.Half, 0, api.MaxSlackHalf)
+}
+
+func (b book) countWatches() int { return len(b.Watches) }
+
+func (b book) checkWatch(i int) api.Hitch {
+	return terms.HitchUnless(isTick(b.Watches[i].At), api.Bounds)
+}
+
+// checkReach returns the hitch of what is to be a reach from least to most with no more numbers than something unknown has.
+func checkReach(r api.Reach, least, most int) api.Hitch {
+	return terms.HitchUnless(terms.IsReach(r, least, most) && r.Most-r.Least < api.MaxSlackWide, api.Bounds)
+}
+
+func isTick(n int) bool { return terms.Within(n, 0, api.MaxSlackDay) }
+
+// isWind tells whether wind can shift turns by the numbers of a reach.
+func isWind(r api.Reach) bool { return terms.IsReach(r, -api.MaxSlackShift, api.MaxSlackShift) }
+
+// checkCase returns the hitch of a case that is handed in.
+func (b book) checkCase(x api.SlackCase) api.Hitch {
+	if !terms.Within(x.Shift, -api.MaxSlackShift, api.MaxSlackShift) || !terms.Within(x.Clock, -api.MaxSlackClock, api.MaxSlackClock) {
+		return api.Bounds
+	}
+	if len(x.Halfs) != len(b.Turns) {
+		return api.Number
+	}
+	return checkEach(x.Halfs, 0, api.MaxSlackHalf)
+}
+
+// checkWorks returns the hitch of works that are handed in.
+func checkWorks(works []int) api.Hitch {
+	if len(works) > api.MaxSlackWorks {
+		return api.Number
+	}
+	return checkEach(works, 1, api.MaxSlackWork)
+}
+
+// checkEach returns the hitch of numbers each of which is to be from least to most.
+func checkEach(numbers []int, least, most int) api.Hitch {
+	for _, n := range numbers {
+		if !terms.Within(n, least, most) {
+			return api.Bounds
+		}
+	}
+	return api.Smooth
+}
+
+// clone returns a book that shares no memory with this one.
+func (b book) clone() book {
+	b.Turns = slices.Clone(b.Turns)
+	b.Watches = slices.Clone(b.Watches)
+	return b
+}
+
+// told returns a book in which something is new, if it has no hitch and a case.
+func (b book) told() (api.SlackBook, api.Hitch) {
+	c, h := check(b.SlackBook)
+	if h != api.Smooth {
+		return api.SlackBook{}, h
+	}
+	if !terms.HasCase(c.cases()) {
+		return api.SlackBook{}, api.Adrift
+	}
+	return b.SlackBook, api.Smooth
+}

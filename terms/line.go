@@ -1,0 +1,61 @@
+package terms
+
+import "lagan/api"
+
+// Line is a line of a text that panics with a WrongLine where it does not have the form that it is asked for.
+type Line struct {
+	number int
+	fields []string // the word, and the fields of the line
+}
+
+// EachLine hands the lines of a text on, in order; it panics with a WrongLine at the first one that is wrong.
+func EachLine(text string, read func(Line)) {
+	number := 0
+	err := ReadLines(text, func(fields []string) bool {
+		number++
+		read(Line{number: number, fields: fields})
+		return true
+	})
+	if err != nil {
+		panic(err)
+	}
+}
+
+// Wrong returns what is panicked with if the line is wrong.
+func (l Line) Wrong() WrongLine { return WrongLine{Number: l.number} }
+
+// Want panics unless all is well with the line.
+func (l Line) Want(well bool) {
+	if !well {
+		panic(l.Wrong())
+	}
+}
+
+// Fields returns the fields behind the word, of which there are to be so many.
+func (l Line) Fields(many int) []string {
+	l.Want(len(l.fields) == 1+many)
+	return l.fields[1:]
+}
+
+// Word returns the word of the line.
+func (l Line) Word() string { return l.fields[0] }
+
+// Number returns the number in a field.
+func (l Line) Number(field string) int {
+	n, ok := Number(field)
+	l.Want(ok)
+	return n
+}
+
+// Reach returns the reach in a field; Most can be below Least.
+func (l Line) Reach(field string) api.Reach {
+	r, ok := Reach(field)
+	l.Want(ok)
+	return r
+}
+
+// Either tells which of two words is in a field: whether it is the first one.
+func (l Line) Either(field, yes, no string) bool {
+	l.Want(field == yes || field == no)
+	return field == yes
+}
