@@ -22,15 +22,9 @@ func (b book) divide(news []int) (lines, leads []int) {
 
 // only returns the book with no other news than those of a list.
 func (b book) only(news []int) book {
-	o := b
-	o.Lines, o.Leads = nil, nil
 	lines, leads := b.divide(news)
-	for _, i := range lines {
-		o.Lines = append(o.Lines, b.Lines[i])
-	}
-	for _, i := range leads {
-		o.Leads = append(o.Leads, b.Leads[i])
-	}
+	o := b
+	o.Lines, o.Leads = terms.Pick(b.Lines, lines), terms.Pick(b.Leads, leads)
 	return o
 }
 

@@ -13,50 +13,19 @@ type book struct{ api.SlackBook }
 // checked is a book without a hitch.
 type checked struct{ book }
 
-// things are what a book has several of: how many there are, how many there can be, and the hitch of each.
-type things struct {
-	count       func(book) int
-	least, most int
-	check       func(b book, i int) api.Hitch
-}
-
-// unknown is a number that all of a book shares: of which reach it is, and how far from 0 it can be.
-type unknown struct {
-	reach api.Reach
-	far   int
-}
-
-const manyUnknowns = 2
-
 // checks returns what is looked at for hitches, in order.
-func checks() []things {
-	return []things{
-		{count: book.countUnknowns, least: manyUnknowns, most: manyUnknowns, check: book.checkUnknown},
-		{count: book.countTurns, least: 1, most: api.MaxSlackTurns, check: book.checkTurn},
-		{count: book.countWatches, least: 0, most: api.MaxSlackWatches, check: book.checkWatch},
+func checks() []terms.Part[book] {
+	return []terms.Part[book]{
+		{Check: book.checkUnknowns},
+		{Count: book.countTurns, Least: 1, Most: api.MaxSlackTurns, Each: book.checkTurn},
+		{Count: book.countWatches, Most: api.MaxSlackWatches, Each: book.checkWatch},
 	}
-}
-
-// hitch returns the hitch of these things of a book.
-func (x things) hitch(b book) api.Hitch {
-	many := x.count(b)
-	if !terms.Within(many, x.least, x.most) {
-		return api.Number
-	}
-	for i := range many {
-		if h := x.check(b, i); h != api.Smooth {
-			return h
-		}
-	}
-	return api.Smooth
 }
 
 func check(b api.SlackBook) (checked, api.Hitch) {
 	k := book{b}
-	for _, x := range checks() {
-		if h := x.hitch(k); h != api.Smooth {
-			return checked{}, h
-		}
+	if h := terms.CheckParts(k, checks()...); h != api.Smooth {
+		return checked{}, h
 	}
 	return checked{book: k}, api.Smooth
 }
@@ -79,15 +48,12 @@ func checkWithWorks(b api.SlackBook, works []int) (checked, api.Hitch) {
 	return c, checkWorks(works)
 }
 
-func (b book) unknowns() [manyUnknowns]unknown {
-	return [manyUnknowns]unknown{{reach: b.Shift, far: api.MaxSlackShift}, {reach: b.Clock, far: api.MaxSlackClock}}
-}
-
-func (b book) countUnknowns() int { return len(b.unknowns()) }
-
-func (b book) checkUnknown(i int) api.Hitch {
-	x := b.unknowns()[i]
-	return checkReach(x.reach, -x.far, x.far)
+// checkUnknowns checks the numbers that all of a book shares.
+func (b book) checkUnknowns() api.Hitch {
+	if h := checkReach(b.Shift, -api.MaxSlackShift, api.MaxSlackShift); h != api.Smooth {
+		return h
+	}
+	return checkReach(b.Clock, -api.MaxSlackClock, api.MaxSlackClock)
 }
 
 func (b book) countTurns() int { return len(b.Turns) }

@@ -40,3 +40,12 @@ func Lists(many int) [][]int {
 	}
 	return all
 }
+
+// Pick returns the things with some indexes.
+func Pick[T any](things []T, indexes []int) []T {
+	var picked []T
+	for _, i := range indexes {
+		picked = append(picked, things[i])
+	}
+	return picked
+}

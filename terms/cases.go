@@ -69,3 +69,29 @@ func Ask(cases int, left []int) (index, fewest int) {
 	}
 	return index, fewest
 }
+
+// Worst returns how many cases are left in the worst case, once it is known what is told of them.
+func Worst[C any, K comparable](cases iter.Seq[C], tell func(C) K) int {
+	left := map[K]int{}
+	most := 0
+	for x := range cases {
+		told := tell(x)
+		left[told]++
+		most = max(most, left[told])
+	}
+	return most
+}
+
+// Clash returns the fewest of several things with which alone there is no case, by their indexes; none if there is one with any of them.
+func Clash(many int, hasCase func(indexes []int) bool) []int {
+	clashing := Gather(Lists(many), func(indexes []int) [][]int {
+		if hasCase(indexes) {
+			return nil
+		}
+		return [][]int{indexes}
+	})
+	if len(clashing) == 0 {
+		return nil
+	}
+	return Best(Fewest, clashing[0], clashing[1:]...)
+}

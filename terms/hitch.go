@@ -1,6 +1,10 @@
 package terms
 
-import "lagan/api"
+import (
+	"slices"
+
+	"lagan/api"
+)
 
 // HitchUnless returns the hitch, or Smooth if all is well.
 func HitchUnless(well bool, h api.Hitch) api.Hitch {
@@ -11,13 +15,58 @@ func HitchUnless(well bool, h api.Hitch) api.Hitch {
 }
 
 // CheckIndexes returns the hitch of a list that is to have indexes below many, ascending.
-func CheckIndexes(list []int, many int) api.Hitch {
+func CheckIndexes(list []int, many int) api.Hitch { return CheckAscending(list, 0, many-1) }
+
+// CheckAscending returns the hitch of a list that is to have numbers from least to most, ascending.
+func CheckAscending(list []int, least, most int) api.Hitch {
 	for i, n := range list {
-		if !Within(n, 0, many-1) {
+		if !Within(n, least, most) {
 			return api.Missing
 		}
 		if i > 0 && n <= list[i-1] {
 			return api.Crossed
+		}
+	}
+	return api.Smooth
+}
+
+// CheckName returns the hitch of the name with an index, which is to be a label that none before it is.
+func CheckName(names []string, i int) api.Hitch {
+	if !IsLabel(names[i]) {
+		return api.Label
+	}
+	return HitchUnless(!slices.Contains(names[:i], names[i]), api.Double)
+}
+
+// Part is what a book has once, or several times, as far as it can have a hitch.
+type Part[B any] struct {
+	Check       func(B) api.Hitch // of what it has once; the other fields are of what it has several times
+	Count       func(B) int
+	Least, Most int // how many there can be
+	Each        func(b B, i int) api.Hitch
+}
+
+// CheckParts returns the hitch of the first part of a book that has one.
+func CheckParts[B any](b B, parts ...Part[B]) api.Hitch {
+	for _, p := range parts {
+		if h := p.hitch(b); h != api.Smooth {
+			return h
+		}
+	}
+	return api.Smooth
+}
+
+func (p Part[B]) hitch(b B) api.Hitch {
+	if p.Check != nil {
+		return p.Check(b)
+	}
+	many := p.Count(b)
+	if !Within(many, p.Least, p.Most) {
+		return api.Number
+	}
+	for i := range many {
+		if h := p.Each(b, i); h != api.Smooth {
+			return h
 		}
 	}
 	return api.Smooth

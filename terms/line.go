@@ -21,6 +21,23 @@ func EachLine(text string, read func(Line)) {
 	}
 }
 
+// Parse reads a book, and checks it; read panics with a WrongLine where a line is wrong, whose number is returned.
+func Parse[B any](text string, read func(text string) B, check func(B) api.Hitch) (b B, line int, h api.Hitch) {
+	if len(text) > api.MaxText {
+		return b, 0, api.Number
+	}
+	defer func() {
+		if wrong, ok := recover().(WrongLine); ok {
+			line, h = wrong.Number, api.Shape
+		}
+	}()
+	parsed := read(text)
+	if h := check(parsed); h != api.Smooth {
+		return b, 0, h
+	}
+	return parsed, 0, api.Smooth
+}
+
 // Wrong returns what is panicked with if the line is wrong.
 func (l Line) Wrong() WrongLine { return WrongLine{Number: l.number} }
 
@@ -45,6 +62,13 @@ func (l Line) Number(field string) int {
 	n, ok := Number(field)
 	l.Want(ok)
 	return n
+}
+
+// List returns the list in a field.
+func (l Line) List(field string) []int {
+	list, ok := List(field)
+	l.Want(ok)
+	return list
 }
 
 // Reach returns the reach in a field; Most can be below Least.

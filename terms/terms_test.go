@@ -6,6 +6,7 @@ import (
 	"math"
 	"runtime"
 	"slices"
+	"strings"
 	"testing"
 
 	"lagan/api"
@@ -45,6 +46,87 @@ func TestCheckIndexes(t *testing.T) {
 	} {
 		if h := terms.CheckIndexes(x.list, 3); h != x.want {
 			t.Errorf("%d: %v", i, h)
+		}
+	}
+}
+
+func TestCheckAscending(t *testing.T) {
+	for i, x := range []struct {
+		list []int
+		want api.Hitch
+	}{
+		{nil, api.Smooth}, {[]int{2}, api.Smooth}, {[]int{2, 3, 5}, api.Smooth},
+		{[]int{1}, api.Missing}, {[]int{6}, api.Missing}, {[]int{3, 3}, api.Crossed}, {[]int{3, 2}, api.Crossed}, {[]int{3, 2, 6}, api.Crossed}, {[]int{2, 6, 3}, api.Missing}, {[]int{3, 1}, api.Missing},
+	} {
+		if h := terms.CheckAscending(x.list, 2, 5); h != x.want {
+			t.Errorf("%d: %v", i, h)
+		}
+	}
+}
+
+func TestCheckName(t *testing.T) {
+	names := []string{"ann", "Bo", "ann", "", "bo"}
+	for i, want := range []api.Hitch{api.Smooth, api.Label, api.Double, api.Label, api.Smooth} {
+		if h := terms.CheckName(names, i); h != want {
+			t.Errorf("%d: %v", i, h)
+		}
+	}
+	// What is no label is that even if it is there already.
+	if h := terms.CheckName([]string{"Bo", "Bo"}, 1); h != api.Label {
+		t.Error(h)
+	}
+}
+
+// crate is a book with a lid and some things, all of which are hitches.
+type crate struct {
+	lid    api.Hitch
+	things []api.Hitch
+}
+
+func (c crate) checkLid() api.Hitch { return c.lid }
+
+func (c crate) count() int { return len(c.things) }
+
+func (c crate) checkThing(i int) api.Hitch { return c.things[i] }
+
+func TestCheckParts(t *testing.T) {
+	things := terms.Part[crate]{Count: crate.count, Least: 1, Most: 3, Each: crate.checkThing}
+	lid := terms.Part[crate]{Check: crate.checkLid}
+	for i, x := range []struct {
+		c                       crate
+		thingsFirst, thingsLast api.Hitch
+	}{
+		{crate{}, api.Number, api.Number},
+		{crate{lid: api.Shape}, api.Number, api.Shape},
+		{crate{things: make([]api.Hitch, 1)}, api.Smooth, api.Smooth},
+		{crate{things: make([]api.Hitch, 3)}, api.Smooth, api.Smooth},
+		{crate{things: make([]api.Hitch, 4)}, api.Number, api.Number},
+		{crate{things: []api.Hitch{api.Label, 0, 0, 0}}, api.Number, api.Number},
+		{crate{lid: api.Shape, things: make([]api.Hitch, 2)}, api.Shape, api.Shape},
+		{crate{lid: api.Shape, things: []api.Hitch{0, api.Missing, api.Label}}, api.Missing, api.Shape},
+		{crate{things: []api.Hitch{0, 0, api.Label}}, api.Label, api.Label},
+	} {
+		if h := terms.CheckParts(x.c, things, lid); h != x.thingsFirst {
+			t.Errorf("%d: the things first: %v", i, h)
+		}
+		if h := terms.CheckParts(x.c, lid, things); h != x.thingsLast {
+			t.Errorf("%d: the lid first: %v", i, h)
+		}
+	}
+	if h := terms.CheckParts(crate{lid: api.Shape}); h != api.Smooth {
+		t.Error(h)
+	}
+}
+
+func TestIsLabel(t *testing.T) {
+	for _, s := range []string{"a", "z", "ann", "a0", "a9b", "abcdefghijkl"} {
+		if !terms.IsLabel(s) {
+			t.Errorf("%q is none", s)
+		}
+	}
+	for _, s := range []string{"", "0", "9a", "A", "aB", "a b", "a-b", "a/", "a:", "a`", "a{", "abcdefghijklm", "\x00", "a\xff", "\xffa", "\xc3\xa1", "a٣"} {
+		if terms.IsLabel(s) {
+			t.Errorf("%q is one", s)
 		}
 	}
 }
@@ -132,6 +214,61 @@ func TestLists(t *testing.T) {
 	}
 }
 
+func TestPick(t *testing.T) {
+	things := []string{"a", "b", "c"}
+	for i, x := range []struct {
+		indexes []int
+		want    []string
+	}{
+		{nil, nil}, {[]int{1}, []string{"b"}}, {[]int{2, 0}, []string{"c", "a"}}, {[]int{0, 1, 2}, things},
+	} {
+		l := terms.Pick(things, x.indexes)
+		if !slices.Equal(l, x.want) {
+			t.Errorf("%d: %v", i, l)
+		}
+		if len(l) > 0 {
+			l[0] = "x"
+		}
+	}
+	if !slices.Equal(things, []string{"a", "b", "c"}) {
+		t.Error(things)
+	}
+}
+
+func TestWorst(t *testing.T) {
+	half := func(n int) int { return n / 2 }
+	for i, x := range []struct {
+		cases []int
+		want  int
+	}{
+		{nil, 0}, {[]int{4}, 1}, {[]int{4, 6, 8}, 1}, {[]int{4, 6, 5, 8}, 2}, {[]int{9, 4, 8, 5, 8, 6}, 3}, {[]int{1, 0, 1}, 3},
+	} {
+		if n := terms.Worst(slices.Values(x.cases), half); n != x.want {
+			t.Errorf("%d: %d", i, n)
+		}
+	}
+}
+
+func TestClash(t *testing.T) {
+	// There is no case with numbers that are too many together.
+	for i, x := range []struct {
+		numbers, want []int
+	}{
+		{nil, nil}, {[]int{1, 2, 3}, nil}, {[]int{9, 1}, nil}, {[]int{11}, []int{0}}, {[]int{1, 11, 12}, []int{1}}, {[]int{4, 5, 6, 6}, []int{1, 2}}, {[]int{4, 4, 1, 4}, []int{0, 1, 3}}, {[]int{1, 4, 4, 1, 4}, []int{1, 2, 4}},
+	} {
+		hasCase := func(indexes []int) bool {
+			all := 0
+			for _, i := range indexes {
+				all += x.numbers[i]
+			}
+			return all <= 10
+		}
+		if l := terms.Clash(len(x.numbers), hasCase); !slices.Equal(l, x.want) {
+			t.Errorf("%d: %v", i, l)
+		}
+	}
+}
+
 func TestFound(t *testing.T) {
 	half := func(n int) int { return n / 2 }
 	for i, x := range []struct{ cases, want []int }{
@@ -211,29 +348,56 @@ func TestEachLine(t *testing.T) {
 	}
 }
 
+func TestParse(t *testing.T) {
+	read := func(text string) []string {
+		var words []string
+		terms.EachLine(text, func(l terms.Line) {
+			l.Want(l.Word() != "wrong")
+			words = append(words, l.Word())
+		})
+		return words
+	}
+	check := func(words []string) api.Hitch { return terms.HitchUnless(!slices.Contains(words, "twice"), api.Double) }
+	for text, x := range map[string]struct {
+		words []string
+		line  int
+		h     api.Hitch
+	}{
+		"a b\nc\n": {[]string{"a", "c"}, 0, api.Smooth}, "": {nil, 0, api.Shape}, "a\nwrong\ntwice\n": {nil, 2, api.Shape}, "twice\nwrong": {nil, 2, api.Shape}, "a\ntwice": {nil, 0, api.Double},
+		strings.Repeat("a", api.MaxText): {[]string{strings.Repeat("a", api.MaxText)}, 0, api.Smooth}, strings.Repeat("a", api.MaxText+1): {nil, 0, api.Number}, strings.Repeat("\n", api.MaxText+1): {nil, 0, api.Number},
+	} {
+		if l, line, h := terms.Parse(text, read, check); !slices.Equal(l, x.words) || line != x.line || h != x.h {
+			t.Errorf("%.20q: %.40q, %d, %v", text, l, line, h)
+		}
+	}
+}
+
 func TestLine(t *testing.T) {
 	var fields []string
 	var number int
 	var r api.Reach
 	var is, not bool
-	if n := wrongAt("a\nb 7 -3:5 yes no\n", func(l terms.Line) {
+	var list []int
+	if n := wrongAt("a\nb 7 -3:5 yes no 4,1\n", func(l terms.Line) {
 		if l.Word() != "b" {
 			return
 		}
-		fields = l.Fields(4)
+		fields = l.Fields(5)
 		number, r = l.Number(fields[0]), l.Reach(fields[1])
 		is, not = l.Either(fields[2], "yes", "no"), l.Either(fields[3], "yes", "no")
+		list = l.List(fields[4])
 	}); n != -1 {
 		t.Fatal(n)
 	}
-	if !slices.Equal(fields, []string{"7", "-3:5", "yes", "no"}) || number != 7 || r != reach(-3, 5) || !is || not {
-		t.Errorf("%q, %d, %v, %v, %v", fields, number, r, is, not)
+	if !slices.Equal(fields, []string{"7", "-3:5", "yes", "no", "4,1"}) || number != 7 || r != reach(-3, 5) || !is || not || !slices.Equal(list, []int{4, 1}) {
+		t.Errorf("%q, %d, %v, %v, %v, %v", fields, number, r, is, not, list)
 	}
 	for i, read := range []func(l terms.Line){
 		func(l terms.Line) { l.Fields(3) },
 		func(l terms.Line) { l.Fields(5) },
 		func(l terms.Line) { l.Number("7:8") },
 		func(l terms.Line) { l.Reach("5:5") },
+		func(l terms.Line) { l.List("5,") },
 		func(l terms.Line) { l.Either("Yes", "yes", "no") },
 		func(l terms.Line) { l.Either("", "yes", "no") },
 		func(l terms.Line) { panic(l.Wrong()) },
@@ -347,6 +511,25 @@ func TestNumbers(t *testing.T) {
 	for _, fields := range [][]string{nil, {"1"}, {"1", "2", "3"}, {"1", "x"}} {
 		if l, ok := terms.Numbers(fields, 2); l != nil || ok {
 			t.Errorf("%q: %v, %v", fields, l, ok)
+		}
+	}
+}
+
+func TestList(t *testing.T) {
+	for field, want := range map[string][]int{"-": nil, "5": {5}, "-5": {-5}, "4,1,6": {4, 1, 6}, "0,-3,0": {0, -3, 0}} {
+		if l, ok := terms.List(field); !slices.Equal(l, want) || !ok {
+			t.Errorf("%q: %v, %v", field, l, ok)
+		}
+		if s := terms.PrintList(want); s != field {
+			t.Errorf("%v: %q", want, s)
+		}
+	}
+	if s := terms.PrintList([]int{}); s != "-" {
+		t.Errorf("%q", s)
+	}
+	for _, field := range []string{"", ",", "5,", ",5", "4,,6", "-,5", "5,-", "--", "4, 6", "4;6", "4:6", "04", "4,x", "1000000000"} {
+		if l, ok := terms.List(field); l != nil || ok {
+			t.Errorf("%q: %v, %v", field, l, ok)
 		}
 	}
 }

@@ -12,7 +12,9 @@ const (
 	lineFeed  = "\n"
 	blank     = " "
 	colon     = ":"
+	comma     = ","
 	minus     = "-"
+	nothing   = "-" // a list without numbers
 	maxDigits = 9
 )
 
@@ -77,6 +79,37 @@ func Numbers(fields []string, many int) ([]int, bool) {
 		numbers = append(numbers, n)
 	}
 	return numbers, true
+}
+
+// List returns the list in a field, and whether the field has the form of one.
+func List(field string) ([]int, bool) {
+	if field == nothing {
+		return nil, true
+	}
+	fields := strings.Split(field, comma)
+	return Numbers(fields, len(fields))
+}
+
+// PrintList writes a list.
+func PrintList(list []int) string {
+	if len(list) == 0 {
+		return nothing
+	}
+	var fields []string
+	for _, n := range list {
+		fields = append(fields, PrintNumber(n))
+	}
+	return strings.Join(fields, comma)
+}
+
+// IsLabel tells whether a string is a label.
+func IsLabel(s string) bool {
+	for i, letter := range s {
+		if !Within(int(letter), 'a', 'z') && (i == 0 || !Within(int(letter), '0', '9')) {
+			return false
+		}
+	}
+	return Within(len(s), 1, api.MaxLabel)
 }
 
 // Reach returns the reach in a field, and whether the field has the form of one; Most can be below Least.
