@@ -48,7 +48,7 @@ func (b book) countCompasses() api.Hitch {
 
 func (b book) checkCompasses() api.Hitch {
 	for _, r := range b.Compasses {
-		if !isOff(r) || r.Most-r.Least >= api.MaxBearingWide {
+		if !terms.IsNarrow(r, -api.MaxBearingOff, api.MaxBearingOff, api.MaxBearingWide) {
 			return api.Bounds
 		}
 	}

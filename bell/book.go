@@ -58,7 +58,8 @@ func (b book) checkNumbers() api.Hitch {
 }
 
 func (b book) checkReaches() api.Hitch {
-	return terms.HitchUnless(terms.IsReach(b.Pumped, 1, b.Minutes) && isLeak(b.Leak) && isNarrow(b.Leak), api.Bounds)
+	leak := terms.IsNarrow(b.Leak, 0, api.MaxBellUse, api.MaxBellWide)
+	return terms.HitchUnless(terms.IsReach(b.Pumped, 1, b.Minutes) && leak, api.Bounds)
 }
 
 func (b book) countMen() int { return len(b.Men) }
@@ -67,8 +68,7 @@ func (b book) checkMan(i int) api.Hitch {
 	if h := terms.CheckName(b.names(), i); h != api.Smooth {
 		return h
 	}
-	breath := b.Men[i].Breath
-	return terms.HitchUnless(isBreath(breath) && isNarrow(breath), api.Bounds)
+	return terms.HitchUnless(terms.IsNarrow(b.Men[i].Breath, 1, api.MaxBellUse, api.MaxBellWide), api.Bounds)
 }
 
 func (b book) names() []string {
@@ -102,9 +102,6 @@ func isLeak(r api.Reach) bool { return terms.IsReach(r, 0, api.MaxBellUse) }
 
 // isBreath tells whether the breath of a man can be one of the numbers of a reach.
 func isBreath(r api.Reach) bool { return terms.IsReach(r, 1, api.MaxBellUse) }
-
-// isNarrow tells whether a reach has no more numbers than something unknown has.
-func isNarrow(r api.Reach) bool { return r.Most-r.Least < api.MaxBellWide }
 
 // checkPlan returns the hitch of a plan.
 func (b book) checkPlan(plan []int) api.Hitch {

@@ -129,7 +129,7 @@ func (b book) checkLines() api.Hitch {
 		if !terms.IsReach(l.Rows, 0, b.Rows-1) || !terms.IsReach(l.Lanes, 0, b.Lanes-1) {
 			return api.Missing
 		}
-		if !isTide(l.Tide) || l.Tide.Most-l.Tide.Least >= api.MaxDragWide {
+		if !terms.IsNarrow(l.Tide, -api.MaxDragTide, api.MaxDragTide, api.MaxDragWide) {
 			return api.Bounds
 		}
 	}

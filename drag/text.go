@@ -98,10 +98,7 @@ func (l rockLine) print() string {
 }
 
 func (l lineLine) print() string {
-	touched := freeWord
-	if l.line.Touched {
-		touched = touchedWord
-	}
+	touched := terms.PrintEither(l.line.Touched, touchedWord, freeWord)
 	return terms.PrintLine(lineWord, terms.PrintReach(l.line.Rows), terms.PrintReach(l.line.Lanes), terms.PrintReach(l.line.Tide), touched)
 }
 

@@ -77,7 +77,7 @@ func (b book) checkWatch(i int) api.Hitch {
 
 // checkReach returns the hitch of what is to be a reach from least to most with no more numbers than something unknown has.
 func checkReach(r api.Reach, least, most int) api.Hitch {
-	return terms.HitchUnless(terms.IsReach(r, least, most) && r.Most-r.Least < api.MaxSlackWide, api.Bounds)
+	return terms.HitchUnless(terms.IsNarrow(r, least, most, api.MaxSlackWide), api.Bounds)
 }
 
 func isTick(n int) bool { return terms.Within(n, 0, api.MaxSlackDay) }

@@ -65,11 +65,7 @@ func (l turnLine) print() string {
 }
 
 func (l watchLine) print() string {
-	slack := noWord
-	if l.watch.Slack {
-		slack = yesWord
-	}
-	return terms.PrintLine(watchWord, terms.PrintNumber(l.watch.At), slack)
+	return terms.PrintLine(watchWord, terms.PrintNumber(l.watch.At), terms.PrintEither(l.watch.Slack, yesWord, noWord))
 }
 
 // lines returns the lines of a book.

@@ -20,6 +20,20 @@ func Fewest(a, b []int) int {
 	return cmp.Or(cmp.Compare(len(a), len(b)), slices.Compare(a, b))
 }
 
+// FewestSuch returns the fewest indexes below many of which something is so, and whether it is so of any, or of none of them.
+func FewestSuch(many int, isSo func(indexes []int) bool) (fewest []int, found bool) {
+	such := Gather(Lists(many), func(indexes []int) [][]int {
+		if isSo(indexes) {
+			return [][]int{indexes}
+		}
+		return nil
+	})
+	if len(such) == 0 {
+		return nil, false
+	}
+	return Best(Fewest, such[0], such[1:]...), true
+}
+
 // Bounds returns the least and the greatest of several numbers.
 func Bounds[N cmp.Ordered](first N, others ...N) (least, most N) {
 	least, most = first, first

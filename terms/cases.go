@@ -8,7 +8,7 @@ import (
 	"lagan/api"
 )
 
-// Many returns how many cases there are.
+// Many returns how many cases there are, or how many of what else is yielded.
 func Many[C any](cases iter.Seq[C]) int {
 	all := 0
 	for range cases {
@@ -17,12 +17,18 @@ func Many[C any](cases iter.Seq[C]) int {
 	return all
 }
 
+// First returns the first case, or the first of what else is yielded, and whether there is one.
+func First[C any](cases iter.Seq[C]) (first C, found bool) {
+	for x := range cases {
+		return x, true
+	}
+	return first, false
+}
+
 // HasCase tells whether there is a case.
 func HasCase[C any](cases iter.Seq[C]) bool {
-	for range cases {
-		return true
-	}
-	return false
+	_, found := First(cases)
+	return found
 }
 
 // Count returns in how many cases something is so, and how many there are.
@@ -84,14 +90,6 @@ func Worst[C any, K comparable](cases iter.Seq[C], tell func(C) K) int {
 
 // Clash returns the fewest of several things with which alone there is no case, by their indexes; none if there is one with any of them.
 func Clash(many int, hasCase func(indexes []int) bool) []int {
-	clashing := Gather(Lists(many), func(indexes []int) [][]int {
-		if hasCase(indexes) {
-			return nil
-		}
-		return [][]int{indexes}
-	})
-	if len(clashing) == 0 {
-		return nil
-	}
-	return Best(Fewest, clashing[0], clashing[1:]...)
+	clashing, _ := FewestSuch(many, func(indexes []int) bool { return !hasCase(indexes) })
+	return clashing
 }

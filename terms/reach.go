@@ -11,6 +11,11 @@ func IsReach(r api.Reach, a, b int) bool {
 	return a <= r.Least && r.Least <= r.Most && r.Most <= b
 }
 
+// IsNarrow tells whether r is a reach from a to b that has so many numbers at most.
+func IsNarrow(r api.Reach, a, b, numbers int) bool {
+	return IsReach(r, a, b) && r.Most-r.Least < numbers
+}
+
 // Has tells whether n is one of the numbers of r.
 func Has(r api.Reach, n int) bool { return Within(n, r.Least, r.Most) }
 

@@ -157,6 +157,52 @@ func TestCases(t *testing.T) {
 	}
 }
 
+func TestFirst(t *testing.T) {
+	for i, x := range []struct {
+		cases []int
+		first int
+		found bool
+	}{
+		{nil, 0, false}, {[]int{0}, 0, true}, {[]int{7, 5, 9}, 7, true},
+	} {
+		if n, found := terms.First(slices.Values(x.cases)); n != x.first || found != x.found {
+			t.Errorf("%d: %d, %v", i, n, found)
+		}
+	}
+	// Those behind it are not asked for.
+	yielded := 0
+	terms.First(func(yield func(int) bool) {
+		for yielded = 1; yield(yielded); yielded++ {
+		}
+	})
+	if yielded != 1 {
+		t.Errorf("%d yielded", yielded)
+	}
+}
+
+func TestFewestSuch(t *testing.T) {
+	// Numbers are enough if they are that much together.
+	for i, x := range []struct {
+		numbers []int
+		enough  int
+		want    []int
+		found   bool
+	}{
+		{nil, 0, nil, true}, {nil, 1, nil, false}, {[]int{5, 5}, 0, nil, true}, {[]int{5, 5}, 5, []int{0}, true}, {[]int{4, 6, 9}, 6, []int{1}, true}, {[]int{4, 5, 6, 4}, 10, []int{0, 2}, true}, {[]int{4, 5, 6, 5}, 11, []int{1, 2}, true}, {[]int{1, 2, 3}, 6, []int{0, 1, 2}, true}, {[]int{1, 2, 3}, 7, nil, false},
+	} {
+		isEnough := func(indexes []int) bool {
+			all := 0
+			for _, n := range terms.Pick(x.numbers, indexes) {
+				all += n
+			}
+			return all >= x.enough
+		}
+		if l, found := terms.FewestSuch(len(x.numbers), isEnough); !slices.Equal(l, x.want) || found != x.found {
+			t.Errorf("%d: %v, %v", i, l, found)
+		}
+	}
+}
+
 func TestBest(t *testing.T) {
 	for i, x := range []struct {
 		first, want []int
@@ -412,6 +458,14 @@ func TestLine(t *testing.T) {
 	}
 }
 
+func TestPrintEither(t *testing.T) {
+	for is, want := range map[bool]string{true: "yes", false: "no"} {
+		if s := terms.PrintEither(is, "yes", "no"); s != want {
+			t.Errorf("%v: %q", is, s)
+		}
+	}
+}
+
 func TestReadLines(t *testing.T) {
 	for text, x := range map[string]struct {
 		line int
@@ -443,6 +497,20 @@ func TestIsReach(t *testing.T) {
 		if is := terms.IsReach(r, -3, 3); is != want {
 			t.Errorf("%v: %v", r, is)
 		}
+	}
+}
+
+func TestIsNarrow(t *testing.T) {
+	for r, want := range map[api.Reach]bool{
+		reach(-3, -1): true, reach(1, 3): true, reach(0, 0): true, reach(-1, 1): true, reach(2, 3): true,
+		reach(-3, 0): false, reach(0, 3): false, reach(-4, -3): false, reach(3, 4): false, reach(1, 0): false, reach(4, 4): false, reach(math.MinInt, math.MaxInt): false, reach(math.MaxInt, math.MinInt): false,
+	} {
+		if is := terms.IsNarrow(r, -3, 3, 3); is != want {
+			t.Errorf("%v: %v", r, is)
+		}
+	}
+	if terms.IsNarrow(reach(0, 1), 0, 9, 1) || !terms.IsNarrow(reach(1, 1), 0, 9, 1) {
+		t.Error("a reach of one number")
 	}
 }
 

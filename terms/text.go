@@ -137,6 +137,14 @@ func PrintReach(r api.Reach) string {
 	return PrintNumber(r.Least) + colon + PrintNumber(r.Most)
 }
 
+// PrintEither writes one of two words: the first one if something is so.
+func PrintEither(is bool, yes, no string) string {
+	if is {
+		return yes
+	}
+	return no
+}
+
 // WrongLine is the number of a line that does not have its form or is out of order, or 0 if there are no lines.
 type WrongLine struct{ Number int }
 
