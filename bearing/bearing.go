@@ -90,11 +90,7 @@ func Off(b api.BearingChart, compass int) ([]int, api.Hitch) {
 	if !c.hasCompass(compass) {
 		return nil, api.Missing
 	}
-	numbers := c.offsOf(compass)
-	if len(numbers) == 0 {
-		return nil, api.Adrift
-	}
-	return numbers, api.Smooth
+	return terms.Told(c.cases(), needle(compass).off)
 }
 
 // False tells whether a witness is false.

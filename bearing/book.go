@@ -114,12 +114,5 @@ func (b book) clone() book {
 
 // told returns a book in which something is new, if it has no hitch and a case.
 func (b book) told() (api.BearingChart, api.Hitch) {
-	c, h := check(b.BearingChart)
-	if h != api.Smooth {
-		return api.BearingChart{}, h
-	}
-	if !terms.HasCase(c.cases()) {
-		return api.BearingChart{}, api.Adrift
-	}
-	return b.BearingChart, api.Smooth
+	return terms.News(b.BearingChart, check, checked.hasCase)
 }

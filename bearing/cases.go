@@ -3,6 +3,7 @@ package bearing
 import (
 	"cmp"
 	"iter"
+	"slices"
 
 	"lagan/api"
 	"lagan/terms"
@@ -25,37 +26,41 @@ type wreckCase struct {
 
 // newCase makes a case that has no hitch one that can be compared.
 func newCase(c api.BearingCase) wreckCase {
-	x := wreckCase{setting: setting{at: c.At}}
-	copy(x.offs[:], c.Offs)
+	x := wreckCase{setting: setting{at: c.At, offs: offsOf(c.Offs)}}
 	for _, w := range c.False {
 		x.liars = x.liars.with(w)
 	}
 	return x
 }
 
+// offsOf returns those of a list for each compass.
+func offsOf(list []int) offs {
+	var o offs
+	copy(o[:], list)
+	return o
+}
+
+// allOffs returns all by which the compasses can be off together, wherever the wreck is.
+func (c checked) allOffs() []offs {
+	var all []offs
+	for list := range terms.Numberings(c.Compasses) {
+		all = append(all, offsOf(list))
+	}
+	return all
+}
+
 // settings yields each square with all by which the compasses can be off.
 func (c checked) settings() iter.Seq[setting] {
 	return func(yield func(setting) bool) {
-		var s setting
-		var fill func(compass int) bool
-		fill = func(compass int) bool {
-			if compass == len(c.Compasses) {
-				return yield(s)
-			}
-			for off := c.Compasses[compass].Least; off <= c.Compasses[compass].Most; off++ {
-				s.offs[compass] = off
-				if !fill(compass + 1) {
-					return false
-				}
-			}
-			return true
-		}
+		all := c.allOffs()
 	squares:
 		for row := range c.High {
 			for column := range c.Wide {
-				s.at = api.BearingSquare{East: column, North: row}
-				if !fill(0) {
-					break squares
+				at := api.BearingSquare{East: column, North: row}
+				for _, o := range all {
+					if !yield(setting{at: at, offs: o}) {
+						break squares
+					}
 				}
 			}
 		}
@@ -98,26 +103,11 @@ func (c checked) cases() iter.Seq[wreckCase] {
 	}
 }
 
-func (c checked) isCase(want wreckCase) bool {
-	if !c.canBeOff(want.offs) {
-		return false
-	}
-	for x := range c.casesOf(want.setting) {
-		if x == want {
-			return true
-		}
-	}
-	return false
-}
+// hasCase tells whether there is a case.
+func (c checked) hasCase() bool { return terms.HasCase(c.cases()) }
 
-// canBeOff tells whether the compasses can be off so, wherever the wreck is.
-func (c checked) canBeOff(o offs) bool {
-	for s := range c.settings() {
-		if s.offs == o {
-			return true
-		}
-	}
-	return false
+func (c checked) isCase(x wreckCase) bool {
+	return slices.Contains(c.allOffs(), x.offs) && terms.IsOneOf(c.casesOf(x.setting), x)
 }
 
 // place asks of a case whether the wreck is there.
@@ -156,7 +146,7 @@ func widened(r api.Reach, n int) api.Reach {
 	return api.Reach{Least: min(r.Least, n), Most: max(r.Most, n)}
 }
 
-// offsOf returns by how much a compass is off in cases, ascending.
-func (c checked) offsOf(compass int) []int {
-	return terms.Found(c.cases(), func(x wreckCase) int { return x.offs[compass] }, cmp.Compare[int])
-}
+// needle asks of a case about the compass with this index.
+type needle int
+
+func (n needle) off(x wreckCase) int { return x.offs[n] }

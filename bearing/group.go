@@ -27,6 +27,15 @@ func (g group) list() []int {
 // everybody returns all witnesses.
 func (b book) everybody() group { return 1<<len(b.Witnesses) - 1 }
 
+// groups returns all groups of witnesses, nobody and everybody among them.
+func (b book) groups() []group {
+	var all []group
+	for g := range b.everybody() + 1 {
+		all = append(all, g)
+	}
+	return all
+}
+
 // sure returns the witnesses who surely are not false.
 func (b book) sure() group {
 	var g group
@@ -42,7 +51,7 @@ func (b book) sure() group {
 func (b book) suspectGroups() []group {
 	var groups []group
 	sure := b.sure()
-	for g := range b.everybody() + 1 {
+	for _, g := range b.groups() {
 		if g&sure == 0 && g.size() <= b.False {
 			groups = append(groups, g)
 		}

@@ -1,8 +1,6 @@
 package bearing
 
 import (
-	"strings"
-
 	"lagan/api"
 	"lagan/terms"
 )
@@ -71,13 +69,7 @@ func (c checked) lines() []line {
 	return all
 }
 
-func (c checked) print() string {
-	var text strings.Builder
-	for _, l := range c.lines() {
-		text.WriteString(l.print())
-	}
-	return text.String()
-}
+func (c checked) print() string { return terms.PrintEach(c.lines(), line.print) }
 
 // readChart reads a book, which may have a hitch; a line that is wrong is its error.
 func readChart(text string) (api.BearingChart, error) {

@@ -1,10 +1,6 @@
 package bearing
 
-import (
-	"sync"
-
-	"lagan/terms"
-)
+import "lagan/terms"
 
 // together tells whether all of a group can be right together, whoever else is false.
 func (c checked) together(g group) bool {
@@ -24,25 +20,7 @@ func (c checked) spares(g group) bool { return c.together(c.everybody().without(
 
 // lists returns the lists of witnesses of whom something is so, in any order.
 func (c checked) lists(isSo func(group) bool) [][]int {
-	many := int(c.everybody()) + 1
-	found := make(chan group, many)
-	var workers sync.WaitGroup
-	for g := range many {
-		workers.Add(1)
-		go func() {
-			defer workers.Done()
-			if isSo(group(g)) {
-				found <- group(g)
-			}
-		}()
-	}
-	workers.Wait()
-	close(found)
-	var lists [][]int
-	for g := range found {
-		lists = append(lists, g.list())
-	}
-	return lists
+	return terms.Sift(c.groups(), func(g group) ([]int, bool) { return g.list(), isSo(g) })
 }
 
 // spared returns the fewest witnesses without whom all others can be right together.

@@ -137,12 +137,5 @@ func (b book) clone() book {
 
 // told returns a book in which something is new, if it has no hitch and a case.
 func (b book) told() (api.BellBook, api.Hitch) {
-	c, h := check(b.BellBook)
-	if h != api.Smooth {
-		return api.BellBook{}, h
-	}
-	if !terms.HasCase(c.cases()) {
-		return api.BellBook{}, api.Adrift
-	}
-	return b.BellBook, api.Smooth
+	return terms.News(b.BellBook, check, checked.hasCase)
 }

@@ -71,35 +71,22 @@ func (c checked) reaches() []api.Reach {
 
 // cases yields each case of the book.
 func (c checked) cases() iter.Seq[airCase] {
-	reaches := c.reaches()
 	return func(yield func(airCase) bool) {
-		var m measures
-		var fill func(i int) bool
-		fill = func(i int) bool {
-			if i == len(reaches) {
-				x := c.newCase(m)
-				return !c.agrees(x) || yield(x)
+		for list := range terms.Numberings(c.reaches()) {
+			var m measures
+			copy(m[:], list)
+			x := c.newCase(m)
+			if c.agrees(x) && !yield(x) {
+				return
 			}
-			for n := reaches[i].Least; n <= reaches[i].Most; n++ {
-				m[i] = n
-				if !fill(i + 1) {
-					return false
-				}
-			}
-			return true
 		}
-		fill(0)
 	}
 }
 
-func (c checked) isCase(want airCase) bool {
-	for x := range c.cases() {
-		if x == want {
-			return true
-		}
-	}
-	return false
-}
+// hasCase tells whether there is a case.
+func (c checked) hasCase() bool { return terms.HasCase(c.cases()) }
+
+func (c checked) isCase(x airCase) bool { return terms.IsOneOf(c.cases(), x) }
 
 // byLeak tells by how much the bell leaks in a case.
 func byLeak(x airCase) int { return x.leak() }
@@ -131,4 +118,4 @@ func (c checked) only(marks []int) checked {
 }
 
 // canBe tells whether there is a case with the marks of a list alone.
-func (c checked) canBe(marks []int) bool { return terms.HasCase(c.only(marks).cases()) }
+func (c checked) canBe(marks []int) bool { return c.only(marks).hasCase() }

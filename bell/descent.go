@@ -79,11 +79,7 @@ func (d descent) at(minute int) (api.Reach, api.Hitch) {
 	for _, p := range d.plays() {
 		air = append(air, p[minute-1])
 	}
-	if len(air) == 0 {
-		return api.Reach{}, api.Adrift
-	}
-	least, most := terms.Bounds(air[0], air[1:]...)
-	return api.Reach{Least: least, Most: most}, api.Smooth
+	return terms.Span(air)
 }
 
 // isGood tells whether the air is good in each minute.

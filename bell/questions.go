@@ -39,7 +39,7 @@ func best(b api.BellBook, plan []int, q asked) (descent, bool, api.Hitch) {
 	if h != api.Smooth {
 		return descent{}, false, h
 	}
-	if !terms.HasCase(c.cases()) {
+	if !c.hasCase() {
 		return descent{}, false, api.Adrift
 	}
 	x := questions()[q]

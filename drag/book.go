@@ -192,12 +192,5 @@ func (b book) clone() book {
 
 // told returns a book in which something is new, if it has no hitch and a case.
 func (b book) told() (api.DragBook, api.Hitch) {
-	c, h := check(b.DragBook)
-	if h != api.Smooth {
-		return api.DragBook{}, h
-	}
-	if !terms.HasCase(c.cases()) {
-		return api.DragBook{}, api.Adrift
-	}
-	return b.DragBook, api.Smooth
+	return terms.News(b.DragBook, check, checked.hasCase)
 }

@@ -150,14 +150,10 @@ func (c checked) cases() iter.Seq[wreckCase] {
 	}
 }
 
-func (c checked) isCase(want wreckCase) bool {
-	for x := range c.cases() {
-		if x == want {
-			return true
-		}
-	}
-	return false
-}
+// hasCase tells whether there is a case.
+func (c checked) hasCase() bool { return terms.HasCase(c.cases()) }
+
+func (c checked) isCase(x wreckCase) bool { return terms.IsOneOf(c.cases(), x) }
 
 // square asks of a case what is so there.
 type square api.DragSquare

@@ -32,7 +32,7 @@ func (b book) only(news []int) book {
 func (c checked) clashes(news []int) bool {
 	o := c
 	o.book = c.only(news)
-	return !terms.HasCase(o.cases())
+	return !o.hasCase()
 }
 
 // clash returns the fewest news with which alone there is no case, of a book that has none.

@@ -2,7 +2,6 @@ package drag
 
 import (
 	"slices"
-	"strings"
 
 	"lagan/api"
 	"lagan/terms"
@@ -125,13 +124,7 @@ func (c checked) lines() []textLine {
 	return all
 }
 
-func (c checked) print() string {
-	var text strings.Builder
-	for _, l := range c.lines() {
-		text.WriteString(l.print())
-	}
-	return text.String()
-}
+func (c checked) print() string { return terms.PrintEach(c.lines(), textLine.print) }
 
 // readBook reads a book, which may have a hitch; a line that is wrong is its error.
 func readBook(text string) (api.DragBook, error) {

@@ -123,12 +123,5 @@ func (b book) clone() book {
 
 // told returns a book in which something is new, if it has no hitch and a case.
 func (b book) told() (api.SlackBook, api.Hitch) {
-	c, h := check(b.SlackBook)
-	if h != api.Smooth {
-		return api.SlackBook{}, h
-	}
-	if !terms.HasCase(c.cases()) {
-		return api.SlackBook{}, api.Adrift
-	}
-	return b.SlackBook, api.Smooth
+	return terms.News(b.SlackBook, check, checked.hasCase)
 }

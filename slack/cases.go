@@ -31,9 +31,23 @@ func (c checked) newCase(f frame, h halfs) tideCase {
 
 // handedIn makes a case that has no hitch one that can be compared.
 func (c checked) handedIn(x api.SlackCase) tideCase {
+	return c.newCase(frame{shift: x.Shift, clock: x.Clock}, halfsOf(x.Halfs))
+}
+
+// halfsOf returns those of a list for each turn.
+func halfsOf(list []int) halfs {
 	var h halfs
-	copy(h[:], x.Halfs)
-	return c.newCase(frame{shift: x.Shift, clock: x.Clock}, h)
+	copy(h[:], list)
+	return h
+}
+
+// reaches returns those of the Half of each turn.
+func (c checked) reaches() []api.Reach {
+	var all []api.Reach
+	for _, t := range c.Turns {
+		all = append(all, t.Half)
+	}
+	return all
 }
 
 // windows returns the reaches of ticks in which it is slack in a case, one for each turn, in order.
@@ -70,22 +84,12 @@ func (c checked) frames() []frame {
 // casesOf yields the cases that have a frame.
 func (c checked) casesOf(f frame) iter.Seq[tideCase] {
 	return func(yield func(tideCase) bool) {
-		var h halfs
-		var fill func(turn int) bool
-		fill = func(turn int) bool {
-			if turn == len(c.Turns) {
-				x := c.newCase(f, h)
-				return !c.agrees(x) || yield(x)
+		for list := range terms.Numberings(c.reaches()) {
+			x := c.newCase(f, halfsOf(list))
+			if c.agrees(x) && !yield(x) {
+				return
 			}
-			for half := c.Turns[turn].Half.Least; half <= c.Turns[turn].Half.Most; half++ {
-				h[turn] = half
-				if !fill(turn + 1) {
-					return false
-				}
-			}
-			return true
 		}
-		fill(0)
 	}
 }
 
@@ -102,14 +106,10 @@ func (c checked) cases() iter.Seq[tideCase] {
 	}
 }
 
-func (c checked) isCase(want tideCase) bool {
-	for x := range c.cases() {
-		if x == want {
-			return true
-		}
-	}
-	return false
-}
+// hasCase tells whether there is a case.
+func (c checked) hasCase() bool { return terms.HasCase(c.cases()) }
+
+func (c checked) isCase(x tideCase) bool { return terms.IsOneOf(c.cases(), x) }
 
 // ofEach returns what is told of each case, in order.
 func ofEach[T any](c checked, tell func(tideCase) T) []T {

@@ -2,7 +2,6 @@ package slack
 
 import (
 	"slices"
-	"strings"
 
 	"lagan/api"
 	"lagan/terms"
@@ -80,13 +79,7 @@ func (c checked) lines() []textLine {
 	return all
 }
 
-func (c checked) print() string {
-	var text strings.Builder
-	for _, l := range c.lines() {
-		text.WriteString(l.print())
-	}
-	return text.String()
-}
+func (c checked) print() string { return terms.PrintEach(c.lines(), textLine.print) }
 
 // readBook reads a book, which may have a hitch; it panics with a terms.WrongLine where a line is wrong.
 func readBook(text string) api.SlackBook {

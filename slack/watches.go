@@ -10,4 +10,4 @@ func (c checked) only(watches []int) checked {
 }
 
 // canBe tells whether there is a case with the watches of a list alone.
-func (c checked) canBe(watches []int) bool { return terms.HasCase(c.only(watches).cases()) }
+func (c checked) canBe(watches []int) bool { return c.only(watches).hasCase() }

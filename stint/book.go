@@ -146,12 +146,5 @@ func (b book) clone() book {
 
 // told returns a book in which something is new, if it has no hitch and a case.
 func (b book) told() (api.StintBook, api.Hitch) {
-	c, h := check(b.StintBook)
-	if h != api.Smooth {
-		return api.StintBook{}, h
-	}
-	if !terms.HasCase(c.cases()) {
-		return api.StintBook{}, api.Adrift
-	}
-	return b.StintBook, api.Smooth
+	return terms.News(b.StintBook, check, checked.hasCase)
 }

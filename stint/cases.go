@@ -45,33 +45,19 @@ func (c checked) agrees(x depthCase) bool {
 // cases yields each case of the book.
 func (c checked) cases() iter.Seq[depthCase] {
 	return func(yield func(depthCase) bool) {
-		var d depths
-		var fill func(place int) bool
-		fill = func(place int) bool {
-			if place == len(c.Places) {
-				x := c.newCase(d)
-				return !c.agrees(x) || yield(x)
+		for list := range terms.Numberings(c.Places) {
+			x := c.handedIn(list)
+			if c.agrees(x) && !yield(x) {
+				return
 			}
-			for depth := c.Places[place].Least; depth <= c.Places[place].Most; depth++ {
-				d[place] = depth
-				if !fill(place + 1) {
-					return false
-				}
-			}
-			return true
 		}
-		fill(0)
 	}
 }
 
-func (c checked) isCase(want depthCase) bool {
-	for x := range c.cases() {
-		if x == want {
-			return true
-		}
-	}
-	return false
-}
+// hasCase tells whether there is a case.
+func (c checked) hasCase() bool { return terms.HasCase(c.cases()) }
+
+func (c checked) isCase(x depthCase) bool { return terms.IsOneOf(c.cases(), x) }
 
 // spot asks of a case about the place with this index.
 type spot int
@@ -118,4 +104,4 @@ func (c checked) only(soundings []int) checked {
 }
 
 // canBe tells whether there is a case with the soundings of a list alone.
-func (c checked) canBe(soundings []int) bool { return terms.HasCase(c.only(soundings).cases()) }
+func (c checked) canBe(soundings []int) bool { return c.only(soundings).hasCase() }

@@ -53,7 +53,7 @@ func rosterOf(b api.StintBook) (roster, api.Hitch) {
 	if h != api.Smooth {
 		return roster{}, h
 	}
-	if !terms.HasCase(c.cases()) {
+	if !c.hasCase() {
 		return roster{}, api.Adrift
 	}
 	return roster{checked: c, may: c.whoMay()}, api.Smooth

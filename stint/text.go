@@ -1,18 +1,15 @@
 package stint
 
 import (
-	"strings"
-
 	"lagan/api"
 	"lagan/terms"
 )
 
-// kind is a kind of lines; they stand in the order of their kinds.
+// kind is a kind of lines; they stand in the order of their kinds, and one of the first kind is the first line alone.
 type kind int
 
 const (
-	noKind kind = iota
-	stintKind
+	stintKind kind = iota
 	rowKind
 	placeKind
 	manKind
@@ -30,11 +27,6 @@ const (
 	yesWord      = "yes"
 	noWord       = "no"
 )
-
-// follows tells whether a line of this kind may stand behind one of another kind, or as the first one, which is behind noKind.
-func (k kind) follows(last kind) bool {
-	return k >= last && (k == stintKind) == (last == noKind)
-}
 
 // textLine is a line of a text.
 type textLine interface {
@@ -109,23 +101,15 @@ func (c checked) lines() []textLine {
 	return all
 }
 
-func (c checked) print() string {
-	var text strings.Builder
-	for _, l := range c.lines() {
-		text.WriteString(l.print())
-	}
-	return text.String()
-}
+func (c checked) print() string { return terms.PrintEach(c.lines(), textLine.print) }
 
 // readBook reads a book, which may have a hitch; it panics with a terms.WrongLine where a line is wrong.
 func readBook(text string) api.StintBook {
 	var b api.StintBook
-	last := noKind
-	terms.EachLine(text, func(line terms.Line) {
+	terms.EachInOrder(text, func(line terms.Line) int {
 		l := readLine(line)
-		line.Want(l.kind().follows(last))
-		last = l.kind()
 		b = withLine(b, l)
+		return int(l.kind())
 	})
 	return b
 }

@@ -15,6 +15,17 @@ func Best[T any](compare func(a, b T) int, first T, others ...T) T {
 	return first
 }
 
+// Ranking is an order of things in which the best one is the least.
+type Ranking[T any] func(a, b T) int
+
+// Best returns the best of several things, the first one if they are equally good, and whether there are any.
+func (r Ranking[T]) Best(things []T) (best T, found bool) {
+	if len(things) == 0 {
+		return best, false
+	}
+	return Best(r, things[0], things[1:]...), true
+}
+
 // Fewest compares lists by how many elements they have, and then by these.
 func Fewest(a, b []int) int {
 	return cmp.Or(cmp.Compare(len(a), len(b)), slices.Compare(a, b))
@@ -28,10 +39,7 @@ func FewestSuch(many int, isSo func(indexes []int) bool) (fewest []int, found bo
 		}
 		return nil
 	})
-	if len(such) == 0 {
-		return nil, false
-	}
-	return Best(Fewest, such[0], such[1:]...), true
+	return Ranking[[]int](Fewest).Best(such)
 }
 
 // Bounds returns the least and the greatest of several numbers.

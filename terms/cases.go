@@ -1,6 +1,7 @@
 package terms
 
 import (
+	"cmp"
 	"iter"
 	"maps"
 	"slices"
@@ -29,6 +30,16 @@ func First[C any](cases iter.Seq[C]) (first C, found bool) {
 func HasCase[C any](cases iter.Seq[C]) bool {
 	_, found := First(cases)
 	return found
+}
+
+// IsOneOf tells whether a case is one of several.
+func IsOneOf[C comparable](cases iter.Seq[C], want C) bool {
+	for x := range cases {
+		if x == want {
+			return true
+		}
+	}
+	return false
 }
 
 // Count returns in how many cases something is so, and how many there are.
@@ -63,6 +74,24 @@ func Found[C any, K comparable](cases iter.Seq[C], tell func(C) K, inOrder func(
 		found[tell(x)] = true
 	}
 	return slices.SortedFunc(maps.Keys(found), inOrder)
+}
+
+// Told returns the numbers that are told of cases, ascending, or Adrift if there is no case.
+func Told[C any](cases iter.Seq[C], tell func(C) int) ([]int, api.Hitch) {
+	numbers := Found(cases, tell, cmp.Compare[int])
+	return numbers, HitchUnless(len(numbers) > 0, api.Adrift)
+}
+
+// News returns a book in which something is new, if it has no hitch and a case.
+func News[B, K any](b B, check func(B) (K, api.Hitch), hasCase func(K) bool) (news B, h api.Hitch) {
+	checked, h := check(b)
+	if h != api.Smooth {
+		return news, h
+	}
+	if !hasCase(checked) {
+		return news, api.Adrift
+	}
+	return b, api.Smooth
 }
 
 // Ask returns the index of what is to be asked, and how many cases are left then in the worst case, which left tells of each thing; -1, and how many cases there are, if nothing leaves fewer.

@@ -1,6 +1,9 @@
 package terms
 
-import "slices"
+import (
+	"slices"
+	"sync"
+)
 
 // finding is what a goroutine found of the thing with an index.
 type finding[U any] struct {
@@ -29,4 +32,26 @@ func Gather[T, U any](things []T, look func(T) []U) []U {
 		}
 	}
 	return slices.Concat(all...)
+}
+
+// Sift has a goroutine look at each of several things, and returns what they found of those of which there is something, in any order.
+func Sift[T, U any](things []T, look func(T) (U, bool)) []U {
+	something := make(chan U, len(things))
+	var workers sync.WaitGroup
+	for _, x := range things {
+		workers.Add(1)
+		go func() {
+			defer workers.Done()
+			if found, ok := look(x); ok {
+				something <- found
+			}
+		}()
+	}
+	workers.Wait()
+	close(something)
+	var all []U
+	for found := range something {
+		all = append(all, found)
+	}
+	return all
 }

@@ -1,6 +1,10 @@
 package terms
 
-import "lagan/api"
+import (
+	"slices"
+
+	"lagan/api"
+)
 
 // Line is a line of a text that panics with a WrongLine where it does not have the form that it is asked for.
 type Line struct {
@@ -19,6 +23,16 @@ func EachLine(text string, read func(Line)) {
 	if err != nil {
 		panic(err)
 	}
+}
+
+// EachInOrder hands the lines of a text on like EachLine; it panics with a WrongLine, too, at the first one that is out of order. read returns of which kind a line is: the first line alone is of the kind 0, and none is of a lesser kind than one before it.
+func EachInOrder(text string, read func(Line) int) {
+	last := -1
+	EachLine(text, func(line Line) {
+		kind := read(line)
+		line.Want(kind >= last && (kind == 0) == (last < 0))
+		last = kind
+	})
 }
 
 // Parse reads a book, and checks it; read panics with a WrongLine where a line is wrong, whose number is returned.
@@ -79,7 +93,11 @@ func (l Line) Reach(field string) api.Reach {
 }
 
 // Either tells which of two words is in a field: whether it is the first one.
-func (l Line) Either(field, yes, no string) bool {
-	l.Want(field == yes || field == no)
-	return field == yes
+func (l Line) Either(field, yes, no string) bool { return l.OneOf(field, yes, no) == 0 }
+
+// OneOf returns the index of the word, of several ones, that is in a field.
+func (l Line) OneOf(field string, words ...string) int {
+	i := slices.Index(words, field)
+	l.Want(i >= 0)
+	return i
 }

@@ -1,7 +1,12 @@
 // Package terms holds what the sections Terms and Rules of DOC.md say for all layers: reaches, hitches, cases, lists, and the forms of texts.
 package terms
 
-import "lagan/api"
+import (
+	"iter"
+	"slices"
+
+	"lagan/api"
+)
 
 // Within tells whether n is from least to most.
 func Within(n, least, most int) bool { return least <= n && n <= most }
@@ -26,4 +31,34 @@ func Common(r, x api.Reach) (api.Reach, bool) {
 		return api.Reach{}, false
 	}
 	return c, true
+}
+
+// Numberings yields each list that has a number of each of several reaches, in their order; the least list comes first.
+func Numberings(reaches []api.Reach) iter.Seq[[]int] {
+	return func(yield func([]int) bool) {
+		list := make([]int, len(reaches))
+		var fill func(i int) bool
+		fill = func(i int) bool {
+			if i == len(reaches) {
+				return yield(slices.Clone(list))
+			}
+			for n := reaches[i].Least; n <= reaches[i].Most; n++ {
+				list[i] = n
+				if !fill(i + 1) {
+					return false
+				}
+			}
+			return true
+		}
+		fill(0)
+	}
+}
+
+// Span returns the reach from the least to the greatest of several numbers, or Adrift if there are none.
+func Span(numbers []int) (api.Reach, api.Hitch) {
+	if len(numbers) == 0 {
+		return api.Reach{}, api.Adrift
+	}
+	least, most := Bounds(numbers[0], numbers[1:]...)
+	return api.Reach{Least: least, Most: most}, api.Smooth
 }

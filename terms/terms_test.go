@@ -157,6 +157,54 @@ func TestCases(t *testing.T) {
 	}
 }
 
+func TestIsOneOf(t *testing.T) {
+	type pair struct{ a, b int }
+	pairs := []pair{{1, 2}, {3, 4}}
+	for x, want := range map[pair]bool{{1, 2}: true, {3, 4}: true, {1, 4}: false, {}: false} {
+		if is := terms.IsOneOf(slices.Values(pairs), x); is != want {
+			t.Errorf("%v: %v", x, is)
+		}
+		if terms.IsOneOf(slices.Values(pairs[:0]), x) {
+			t.Errorf("%v is one of none", x)
+		}
+	}
+}
+
+func TestTold(t *testing.T) {
+	half := func(n int) int { return n / 2 }
+	for i, x := range []struct {
+		cases, want []int
+		h           api.Hitch
+	}{
+		{nil, nil, api.Adrift}, {[]int{1}, []int{0}, api.Smooth}, {[]int{9, -4, 5, 8, 4}, []int{-2, 2, 4}, api.Smooth},
+	} {
+		if l, h := terms.Told(slices.Values(x.cases), half); !slices.Equal(l, x.want) || h != x.h {
+			t.Errorf("%d: %v, %v", i, l, h)
+		}
+	}
+}
+
+func TestNews(t *testing.T) {
+	// A book is a text; it has a hitch if it is long, and as many cases as bytes.
+	check := func(s string) (int, api.Hitch) {
+		if len(s) > 3 {
+			return 0, api.Number
+		}
+		return len(s), api.Smooth
+	}
+	hasCase := func(many int) bool { return many > 0 }
+	for s, want := range map[string]struct {
+		news string
+		h    api.Hitch
+	}{
+		"a": {"a", api.Smooth}, "abc": {"abc", api.Smooth}, "": {"", api.Adrift}, "abcd": {"", api.Number},
+	} {
+		if o, h := terms.News(s, check, hasCase); o != want.news || h != want.h {
+			t.Errorf("%q: %q, %v", s, o, h)
+		}
+	}
+}
+
 func TestFirst(t *testing.T) {
 	for i, x := range []struct {
 		cases []int
@@ -225,6 +273,65 @@ func TestBest(t *testing.T) {
 	}
 	if p := terms.Best(bySize, pair{1, 0}, pair{1, 1}); p != (pair{1, 0}) {
 		t.Error(p)
+	}
+}
+
+func TestRanking(t *testing.T) {
+	for i, x := range []struct {
+		things [][]int
+		want   []int
+		found  bool
+	}{
+		{nil, nil, false}, {[][]int{{3}}, []int{3}, true}, {[][]int{{1, 2}, {4}, {1, 1}, {3}}, []int{3}, true}, {[][]int{{1}, nil}, nil, true},
+	} {
+		if l, found := terms.Ranking[[]int](terms.Fewest).Best(x.things); !slices.Equal(l, x.want) || found != x.found {
+			t.Errorf("%d: %v, %v", i, l, found)
+		}
+	}
+	// The first one of several that are equally good.
+	bySize := terms.Ranking[[2]int](func(a, b [2]int) int { return a[0] - b[0] })
+	if x, _ := bySize.Best([][2]int{{2, 0}, {1, 1}, {1, 2}, {2, 3}}); x != [2]int{1, 1} {
+		t.Error(x)
+	}
+}
+
+func TestSpan(t *testing.T) {
+	for i, x := range []struct {
+		numbers []int
+		want    api.Reach
+		h       api.Hitch
+	}{
+		{nil, reach(0, 0), api.Adrift}, {[]int{5}, reach(5, 5), api.Smooth}, {[]int{5, 7, -3, 6}, reach(-3, 7), api.Smooth}, {[]int{0, 0}, reach(0, 0), api.Smooth},
+	} {
+		if r, h := terms.Span(x.numbers); r != x.want || h != x.h {
+			t.Errorf("%d: %v, %v", i, r, h)
+		}
+	}
+}
+
+func TestNumberings(t *testing.T) {
+	for i, x := range []struct {
+		reaches []api.Reach
+		want    [][]int
+	}{
+		{nil, [][]int{nil}}, {[]api.Reach{reach(-1, 1)}, [][]int{{-1}, {0}, {1}}}, {[]api.Reach{reach(1, 0)}, nil}, {[]api.Reach{reach(2, 3), reach(5, 5), reach(-1, 0)}, [][]int{{2, 5, -1}, {2, 5, 0}, {3, 5, -1}, {3, 5, 0}}},
+	} {
+		all := slices.Collect(terms.Numberings(x.reaches))
+		if !slices.EqualFunc(all, x.want, slices.Equal) {
+			t.Errorf("%d: %v", i, all)
+		}
+	}
+	// Those behind the last one that is asked for are not yielded, and none changes the next one.
+	var all []int
+	for l := range terms.Numberings([]api.Reach{reach(1, 3), reach(1, 3)}) {
+		all = append(all, l...)
+		clear(l)
+		if len(all) == 8 {
+			break
+		}
+	}
+	if !slices.Equal(all, []int{1, 1, 1, 2, 1, 3, 2, 1}) {
+		t.Error(all)
 	}
 }
 
@@ -364,6 +471,27 @@ func TestGather(t *testing.T) {
 	}
 }
 
+func TestSift(t *testing.T) {
+	// What is even, and half of it, after the others where it is small.
+	half := func(n int) (int, bool) {
+		for range 10 - n {
+			runtime.Gosched()
+		}
+		return n / 2, n%2 == 0
+	}
+	for i, x := range []struct{ things, want []int }{
+		{nil, nil}, {[]int{1}, nil}, {[]int{4}, []int{2}}, {[]int{2, 0, 3, 1, 4, 2}, []int{0, 1, 1, 2}}, {[]int{7, 5, 8}, []int{4}},
+	} {
+		for range 20 {
+			l := terms.Sift(x.things, half)
+			slices.Sort(l)
+			if !slices.Equal(l, x.want) {
+				t.Fatalf("%d: %v", i, l)
+			}
+		}
+	}
+}
+
 // wrongAt returns the number of the line with which reading panics, or -1 if it does not.
 func wrongAt(text string, read func(terms.Line)) (number int) {
 	defer func() {
@@ -390,6 +518,26 @@ func TestEachLine(t *testing.T) {
 		})
 		if n != x.line || !slices.Equal(read, x.read) {
 			t.Errorf("%q: %d, %q", text, n, read)
+		}
+	}
+}
+
+func TestEachInOrder(t *testing.T) {
+	read := func(l terms.Line) int { return slices.Index([]string{"a", "b", "c"}, l.Word()) }
+	wrongIn := func(text string) (number int) {
+		defer func() {
+			if wrong, ok := recover().(terms.WrongLine); ok {
+				number = wrong.Number
+			}
+		}()
+		terms.EachInOrder(text, read)
+		return -1
+	}
+	for text, want := range map[string]int{
+		"a": -1, "a\nb\n": -1, "a\nb\nb\nc\nc": -1, "a\nc\n": -1, "": 0, "\n": 1, "b\n": 1, "c\na\n": 1, "a\na\n": 2, "a\nb\na\n": 3, "a\nc\nb\n": 3, "a\nb\nc\nb\na\n": 4, "a\n\nb\n": 2,
+	} {
+		if n := wrongIn(text); n != want {
+			t.Errorf("%q: %d", text, n)
 		}
 	}
 }
@@ -423,7 +571,7 @@ func TestLine(t *testing.T) {
 	var number int
 	var r api.Reach
 	var is, not bool
-	var list []int
+	var list, words []int
 	if n := wrongAt("a\nb 7 -3:5 yes no 4,1\n", func(l terms.Line) {
 		if l.Word() != "b" {
 			return
@@ -432,11 +580,12 @@ func TestLine(t *testing.T) {
 		number, r = l.Number(fields[0]), l.Reach(fields[1])
 		is, not = l.Either(fields[2], "yes", "no"), l.Either(fields[3], "yes", "no")
 		list = l.List(fields[4])
+		words = []int{l.OneOf("x", "x", "y", "z"), l.OneOf("z", "x", "y", "z"), l.OneOf("y", "y")}
 	}); n != -1 {
 		t.Fatal(n)
 	}
-	if !slices.Equal(fields, []string{"7", "-3:5", "yes", "no", "4,1"}) || number != 7 || r != reach(-3, 5) || !is || not || !slices.Equal(list, []int{4, 1}) {
-		t.Errorf("%q, %d, %v, %v, %v, %v", fields, number, r, is, not, list)
+	if !slices.Equal(fields, []string{"7", "-3:5", "yes", "no", "4,1"}) || number != 7 || r != reach(-3, 5) || !is || not || !slices.Equal(list, []int{4, 1}) || !slices.Equal(words, []int{0, 2, 0}) {
+		t.Errorf("%q, %d, %v, %v, %v, %v, %v", fields, number, r, is, not, list, words)
 	}
 	for i, read := range []func(l terms.Line){
 		func(l terms.Line) { l.Fields(3) },
@@ -446,6 +595,8 @@ func TestLine(t *testing.T) {
 		func(l terms.Line) { l.List("5,") },
 		func(l terms.Line) { l.Either("Yes", "yes", "no") },
 		func(l terms.Line) { l.Either("", "yes", "no") },
+		func(l terms.Line) { l.OneOf("x", "y", "z") },
+		func(l terms.Line) { l.OneOf("x") },
 		func(l terms.Line) { panic(l.Wrong()) },
 	} {
 		if n := wrongAt("a\nb 7 -3:5 yes no\n", func(l terms.Line) {
@@ -553,6 +704,15 @@ func TestFields(t *testing.T) {
 	}
 	if s := terms.PrintLine("a", "b", "c"); s != "a b c\n" {
 		t.Errorf("%q", s)
+	}
+}
+
+func TestPrintEach(t *testing.T) {
+	print := func(n int) string { return terms.PrintLine("n", terms.PrintNumber(n)) }
+	for want, numbers := range map[string][]int{"": nil, "n 5\n": {5}, "n 5\nn -1\nn 5\n": {5, -1, 5}} {
+		if s := terms.PrintEach(numbers, print); s != want {
+			t.Errorf("%v: %q", numbers, s)
+		}
 	}
 }
 

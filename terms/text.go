@@ -31,6 +31,15 @@ func PrintLine(fields ...string) string {
 	return strings.Join(fields, blank) + lineFeed
 }
 
+// PrintEach writes several lines as a text, in order.
+func PrintEach[L any](lines []L, print func(L) string) string {
+	var text strings.Builder
+	for _, l := range lines {
+		text.WriteString(print(l))
+	}
+	return text.String()
+}
+
 // Fields returns the word of a line and its fields, and false if one of them is empty.
 func Fields(line string) ([]string, bool) {
 	fields := strings.Split(line, blank)
