@@ -2,8 +2,6 @@
 package bearing
 
 import (
-	"errors"
-
 	"lagan/api"
 	"lagan/terms"
 )
@@ -206,16 +204,5 @@ func Print(b api.BearingChart) (string, api.Hitch) {
 
 // Parse reads a book; line is the first line that is wrong, if one is.
 func Parse(text string) (b api.BearingChart, line int, h api.Hitch) {
-	if len(text) > api.MaxText {
-		return api.BearingChart{}, 0, api.Number
-	}
-	b, err := readChart(text)
-	var wrong terms.WrongLine
-	if errors.As(err, &wrong) {
-		return api.BearingChart{}, wrong.Number, api.Shape
-	}
-	if h := CheckChart(b); h != api.Smooth {
-		return api.BearingChart{}, 0, h
-	}
-	return b, 0, api.Smooth
+	return terms.Read(text, readChart, CheckChart)
 }

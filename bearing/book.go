@@ -97,10 +97,8 @@ func (b book) checkCase(c api.BearingCase) api.Hitch {
 	if len(c.Offs) != len(b.Compasses) {
 		return api.Number
 	}
-	for _, off := range c.Offs {
-		if !terms.Within(off, -api.MaxBearingOff, api.MaxBearingOff) {
-			return api.Bounds
-		}
+	if h := terms.CheckEach(c.Offs, -api.MaxBearingOff, api.MaxBearingOff); h != api.Smooth {
+		return h
 	}
 	return terms.CheckIndexes(c.False, len(b.Witnesses))
 }

@@ -65,19 +65,13 @@ func (b book) checkReaches() api.Hitch {
 func (b book) countMen() int { return len(b.Men) }
 
 func (b book) checkMan(i int) api.Hitch {
-	if h := terms.CheckName(b.names(), i); h != api.Smooth {
+	if h := terms.CheckName(b.Men, i, nameOf); h != api.Smooth {
 		return h
 	}
 	return terms.HitchUnless(terms.IsNarrow(b.Men[i].Breath, 1, api.MaxBellUse, api.MaxBellWide), api.Bounds)
 }
 
-func (b book) names() []string {
-	var all []string
-	for _, m := range b.Men {
-		all = append(all, m.Name)
-	}
-	return all
-}
+func nameOf(m api.BellMan) string { return m.Name }
 
 func (b book) checkSent() api.Hitch { return b.checkPlan(b.Sent) }
 
@@ -119,12 +113,7 @@ func (b book) checkCase(x api.BellCase) api.Hitch {
 	if len(x.Breaths) != len(b.Men) {
 		return api.Number
 	}
-	for _, breath := range x.Breaths {
-		if !isUse(breath) {
-			return api.Bounds
-		}
-	}
-	return api.Smooth
+	return terms.CheckEach(x.Breaths, 0, api.MaxBellUse)
 }
 
 // clone returns a book that shares no memory with this one.

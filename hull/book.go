@@ -70,7 +70,7 @@ func (b book) checkHull() api.Hitch {
 func (b book) countPieces() int { return len(b.Pieces) }
 
 func (b book) checkPiece(i int) api.Hitch {
-	if h := terms.CheckName(b.names(), i); h != api.Smooth {
+	if h := terms.CheckName(b.Pieces, i, nameOf); h != api.Smooth {
 		return h
 	}
 	p := b.Pieces[i]
@@ -81,13 +81,7 @@ func (b book) checkPiece(i int) api.Hitch {
 	return terms.CheckIndexes(p.On, i)
 }
 
-func (b book) names() []string {
-	var all []string
-	for _, p := range b.Pieces {
-		all = append(all, p.Name)
-	}
-	return all
-}
+func nameOf(p api.HullPiece) string { return p.Name }
 
 func (b book) checkOut() api.Hitch {
 	_, h := b.liftAll(outs{}, b.Out)
@@ -117,12 +111,7 @@ func (b book) checkCase(x api.HullCase) api.Hitch {
 	if len(x.Weights) != len(b.Pieces) {
 		return api.Number
 	}
-	for _, weight := range x.Weights {
-		if !terms.Within(weight, 0, api.MaxHullWeight) {
-			return api.Bounds
-		}
-	}
-	return api.Smooth
+	return terms.CheckEach(x.Weights, 0, api.MaxHullWeight)
 }
 
 // checkPieces returns the hitch of pieces that are handed in.

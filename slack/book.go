@@ -93,7 +93,7 @@ func (b book) checkCase(x api.SlackCase) api.Hitch {
 	if len(x.Halfs) != len(b.Turns) {
 		return api.Number
 	}
-	return checkEach(x.Halfs, 0, api.MaxSlackHalf)
+	return terms.CheckEach(x.Halfs, 0, api.MaxSlackHalf)
 }
 
 // checkWorks returns the hitch of works that are handed in.
@@ -101,17 +101,7 @@ func checkWorks(works []int) api.Hitch {
 	if len(works) > api.MaxSlackWorks {
 		return api.Number
 	}
-	return checkEach(works, 1, api.MaxSlackWork)
-}
-
-// checkEach returns the hitch of numbers each of which is to be from least to most.
-func checkEach(numbers []int, least, most int) api.Hitch {
-	for _, n := range numbers {
-		if !terms.Within(n, least, most) {
-			return api.Bounds
-		}
-	}
-	return api.Smooth
+	return terms.CheckEach(works, 1, api.MaxSlackWork)
 }
 
 // clone returns a book that shares no memory with this one.

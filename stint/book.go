@@ -60,19 +60,13 @@ func (b book) checkPlace(i int) api.Hitch {
 func (b book) countMen() int { return len(b.Men) }
 
 func (b book) checkMan(i int) api.Hitch {
-	if h := terms.CheckName(b.names(), i); h != api.Smooth {
+	if h := terms.CheckName(b.Men, i, nameOf); h != api.Smooth {
 		return h
 	}
 	return terms.HitchUnless(isDepth(b.Men[i].Deepest), api.Bounds)
 }
 
-func (b book) names() []string {
-	var all []string
-	for _, m := range b.Men {
-		all = append(all, m.Name)
-	}
-	return all
-}
+func nameOf(m api.StintMan) string { return m.Name }
 
 func (b book) countDives() int { return len(b.Dives) }
 
@@ -110,12 +104,7 @@ func (b book) checkDepths(depths []int) api.Hitch {
 	if len(depths) != len(b.Places) {
 		return api.Number
 	}
-	for _, depth := range depths {
-		if !isDepth(depth) {
-			return api.Bounds
-		}
-	}
-	return api.Smooth
+	return terms.CheckEach(depths, 1, api.MaxStintDepth)
 }
 
 // checkRota returns the hitch of a rota that is handed in.

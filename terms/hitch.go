@@ -30,12 +30,20 @@ func CheckAscending(list []int, least, most int) api.Hitch {
 	return api.Smooth
 }
 
-// CheckName returns the hitch of the name with an index, which is to be a label that none before it is.
-func CheckName(names []string, i int) api.Hitch {
-	if !IsLabel(names[i]) {
+// CheckEach returns the hitch of numbers each of which is to be from least to most.
+func CheckEach(numbers []int, least, most int) api.Hitch {
+	isOut := func(n int) bool { return !Within(n, least, most) }
+	return HitchUnless(!slices.ContainsFunc(numbers, isOut), api.Bounds)
+}
+
+// CheckName returns the hitch of the name of the thing with an index, which is to be a label that no thing before it has.
+func CheckName[T any](things []T, i int, name func(T) string) api.Hitch {
+	own := name(things[i])
+	if !IsLabel(own) {
 		return api.Label
 	}
-	return HitchUnless(!slices.Contains(names[:i], names[i]), api.Double)
+	hasIt := func(before T) bool { return name(before) == own }
+	return HitchUnless(!slices.ContainsFunc(things[:i], hasIt), api.Double)
 }
 
 // Part is what a book has once, or several times, as far as it can have a hitch.

@@ -1,6 +1,7 @@
 package terms
 
 import (
+	"errors"
 	"slices"
 
 	"lagan/api"
@@ -35,21 +36,35 @@ func EachInOrder(text string, read func(Line) int) {
 	})
 }
 
-// Parse reads a book, and checks it; read panics with a WrongLine where a line is wrong, whose number is returned.
-func Parse[B any](text string, read func(text string) B, check func(B) api.Hitch) (b B, line int, h api.Hitch) {
+// Read reads a book, and checks it; the error of read is a WrongLine if a line is wrong, whose number is returned.
+func Read[B any](text string, read func(text string) (B, error), check func(B) api.Hitch) (b B, line int, h api.Hitch) {
 	if len(text) > api.MaxText {
 		return b, 0, api.Number
 	}
-	defer func() {
-		if wrong, ok := recover().(WrongLine); ok {
-			line, h = wrong.Number, api.Shape
-		}
-	}()
-	parsed := read(text)
+	parsed, err := read(text)
+	var wrong WrongLine
+	if errors.As(err, &wrong) {
+		return b, wrong.Number, api.Shape
+	}
 	if h := check(parsed); h != api.Smooth {
 		return b, 0, h
 	}
 	return parsed, 0, api.Smooth
+}
+
+// Parse reads a book, and checks it; read panics with a WrongLine where a line is wrong, whose number is returned.
+func Parse[B any](text string, read func(text string) B, check func(B) api.Hitch) (b B, line int, h api.Hitch) {
+	return Read(text, func(text string) (B, error) { return catch(text, read) }, check)
+}
+
+// catch reads a book, and returns the WrongLine as an error that is panicked with where a line is wrong.
+func catch[B any](text string, read func(text string) B) (b B, err error) {
+	defer func() {
+		if wrong, ok := recover().(WrongLine); ok {
+			err = wrong
+		}
+	}()
+	return read(text), nil
 }
 
 // Wrong returns what is panicked with if the line is wrong.

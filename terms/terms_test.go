@@ -65,15 +65,26 @@ func TestCheckAscending(t *testing.T) {
 }
 
 func TestCheckName(t *testing.T) {
-	names := []string{"ann", "Bo", "ann", "", "bo"}
-	for i, want := range []api.Hitch{api.Smooth, api.Label, api.Double, api.Label, api.Smooth} {
-		if h := terms.CheckName(names, i); h != want {
+	second := func(words [2]string) string { return words[1] }
+	named := [][2]string{{"a", "ann"}, {"ann", "Bo"}, {"b", "ann"}, {"c", ""}, {"d", "bo"}, {"e", "Bo"}}
+	// What is no label is that even if it is there already.
+	for i, want := range []api.Hitch{api.Smooth, api.Label, api.Double, api.Label, api.Smooth, api.Label} {
+		if h := terms.CheckName(named, i, second); h != want {
 			t.Errorf("%d: %v", i, h)
 		}
 	}
-	// What is no label is that even if it is there already.
-	if h := terms.CheckName([]string{"Bo", "Bo"}, 1); h != api.Label {
-		t.Error(h)
+}
+
+func TestCheckEach(t *testing.T) {
+	for i, x := range []struct {
+		numbers []int
+		want    api.Hitch
+	}{
+		{nil, api.Smooth}, {[]int{2}, api.Smooth}, {[]int{5, 2, 5, 3}, api.Smooth}, {[]int{1}, api.Bounds}, {[]int{6}, api.Bounds}, {[]int{2, 3, 6}, api.Bounds}, {[]int{math.MinInt, 2}, api.Bounds}, {[]int{2, math.MaxInt, 2}, api.Bounds},
+	} {
+		if h := terms.CheckEach(x.numbers, 2, 5); h != x.want {
+			t.Errorf("%d: %v", i, h)
+		}
 	}
 }
 
@@ -542,8 +553,16 @@ func TestEachInOrder(t *testing.T) {
 	}
 }
 
-func TestParse(t *testing.T) {
-	read := func(text string) []string {
+func TestReadAndParse(t *testing.T) {
+	read := func(text string) ([]string, error) {
+		var words []string
+		err := terms.ReadLines(text, func(fields []string) bool {
+			words = append(words, fields[0])
+			return fields[0] != "wrong"
+		})
+		return words, err
+	}
+	parse := func(text string) []string {
 		var words []string
 		terms.EachLine(text, func(l terms.Line) {
 			l.Want(l.Word() != "wrong")
@@ -560,8 +579,11 @@ func TestParse(t *testing.T) {
 		"a b\nc\n": {[]string{"a", "c"}, 0, api.Smooth}, "": {nil, 0, api.Shape}, "a\nwrong\ntwice\n": {nil, 2, api.Shape}, "twice\nwrong": {nil, 2, api.Shape}, "a\ntwice": {nil, 0, api.Double},
 		strings.Repeat("a", api.MaxText): {[]string{strings.Repeat("a", api.MaxText)}, 0, api.Smooth}, strings.Repeat("a", api.MaxText+1): {nil, 0, api.Number}, strings.Repeat("\n", api.MaxText+1): {nil, 0, api.Number},
 	} {
-		if l, line, h := terms.Parse(text, read, check); !slices.Equal(l, x.words) || line != x.line || h != x.h {
-			t.Errorf("%.20q: %.40q, %d, %v", text, l, line, h)
+		if l, line, h := terms.Read(text, read, check); !slices.Equal(l, x.words) || line != x.line || h != x.h {
+			t.Errorf("Read: %.20q: %.40q, %d, %v", text, l, line, h)
+		}
+		if l, line, h := terms.Parse(text, parse, check); !slices.Equal(l, x.words) || line != x.line || h != x.h {
+			t.Errorf("Parse: %.20q: %.40q, %d, %v", text, l, line, h)
 		}
 	}
 }
