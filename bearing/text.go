@@ -74,15 +74,13 @@ func (c checked) print() string { return terms.PrintEach(c.lines(), line.print) 
 // readChart reads a book, which may have a hitch; a line that is wrong is its error.
 func readChart(text string) (api.BearingChart, error) {
 	var b api.BearingChart
-	first, last := true, chartRank
-	err := terms.ReadLines(text, func(fields []string) bool {
+	err := terms.ReadInOrder(text, func(fields []string) (int, bool) {
 		l, ok := readLine(fields)
-		if !ok || first != (l.rank() == chartRank) || l.rank() < last {
-			return false
+		if !ok {
+			return 0, false
 		}
-		first, last = false, l.rank()
 		b = withLine(b, l)
-		return true
+		return int(l.rank()), true
 	})
 	return b, err
 }

@@ -2,7 +2,6 @@ package terms
 
 import (
 	"errors"
-	"slices"
 
 	"lagan/api"
 )
@@ -26,14 +25,10 @@ func EachLine(text string, read func(Line)) {
 	}
 }
 
-// EachInOrder hands the lines of a text on like EachLine; it panics with a WrongLine, too, at the first one that is out of order. read returns of which kind a line is: the first line alone is of the kind 0, and none is of a lesser kind than one before it.
+// EachInOrder hands the lines of a text on like EachLine; it panics with a WrongLine, too, at the first one that is out of order. read returns of which kind a line is.
 func EachInOrder(text string, read func(Line) int) {
-	last := -1
-	EachLine(text, func(line Line) {
-		kind := read(line)
-		line.Want(kind >= last && (kind == 0) == (last < 0))
-		last = kind
-	})
+	var o order
+	EachLine(text, func(line Line) { line.Want(o.next(read(line))) })
 }
 
 // Read reads a book, and checks it; the error of read is a WrongLine if a line is wrong, whose number is returned.
@@ -112,7 +107,7 @@ func (l Line) Either(field, yes, no string) bool { return l.OneOf(field, yes, no
 
 // OneOf returns the index of the word, of several ones, that is in a field.
 func (l Line) OneOf(field string, words ...string) int {
-	i := slices.Index(words, field)
-	l.Want(i >= 0)
+	i, ok := OneOf(field, words...)
+	l.Want(ok)
 	return i
 }

@@ -533,8 +533,9 @@ func TestEachLine(t *testing.T) {
 	}
 }
 
-func TestEachInOrder(t *testing.T) {
-	read := func(l terms.Line) int { return slices.Index([]string{"a", "b", "c"}, l.Word()) }
+func TestEachInOrderAndReadInOrder(t *testing.T) {
+	kinds := []string{"a", "b", "c"}
+	read := func(l terms.Line) int { return slices.Index(kinds, l.Word()) }
 	wrongIn := func(text string) (number int) {
 		defer func() {
 			if wrong, ok := recover().(terms.WrongLine); ok {
@@ -544,12 +545,26 @@ func TestEachInOrder(t *testing.T) {
 		terms.EachInOrder(text, read)
 		return -1
 	}
+	errorOf := func(text string) int {
+		err := terms.ReadInOrder(text, func(fields []string) (int, bool) { return slices.Index(kinds, fields[0]), fields[0] != "wrong" })
+		var wrong terms.WrongLine
+		if errors.As(err, &wrong) {
+			return wrong.Number
+		}
+		return -1
+	}
 	for text, want := range map[string]int{
 		"a": -1, "a\nb\n": -1, "a\nb\nb\nc\nc": -1, "a\nc\n": -1, "": 0, "\n": 1, "b\n": 1, "c\na\n": 1, "a\na\n": 2, "a\nb\na\n": 3, "a\nc\nb\n": 3, "a\nb\nc\nb\na\n": 4, "a\n\nb\n": 2,
 	} {
 		if n := wrongIn(text); n != want {
-			t.Errorf("%q: %d", text, n)
+			t.Errorf("EachInOrder: %q: %d", text, n)
 		}
+		if n := errorOf(text); n != want {
+			t.Errorf("ReadInOrder: %q: %d", text, n)
+		}
+	}
+	if n := errorOf("a\nb\nwrong x\na\n"); n != 3 {
+		t.Error(n)
 	}
 }
 
@@ -628,6 +643,22 @@ func TestLine(t *testing.T) {
 		}); n != 2 {
 			t.Errorf("%d: line %d", i, n)
 		}
+	}
+}
+
+func TestOneOf(t *testing.T) {
+	for word, want := range map[string]int{"n": 0, "ne": 1, "e": 2} {
+		if i, ok := terms.OneOf(word, "n", "ne", "e"); i != want || !ok {
+			t.Errorf("%q: %d, %v", word, i, ok)
+		}
+	}
+	for _, word := range []string{"", "N", "nee", "n ", "0"} {
+		if i, ok := terms.OneOf(word, "n", "ne", "e"); i != 0 || ok {
+			t.Errorf("%q: %d, %v", word, i, ok)
+		}
+	}
+	if i, ok := terms.OneOf("n"); i != 0 || ok {
+		t.Errorf("%d, %v", i, ok)
 	}
 }
 
@@ -799,6 +830,20 @@ func TestReach(t *testing.T) {
 	for _, field := range []string{"", ":", "5:", ":5", "5:5", "0:-0", "1:2:3", "5-7", "5: 7", "x:1", "1:x"} {
 		if r, ok := terms.Reach(field); r != reach(0, 0) || ok {
 			t.Errorf("%q: %v, %v", field, r, ok)
+		}
+	}
+}
+
+func TestReaches(t *testing.T) {
+	for _, x := range []struct {
+		fields []string
+		want   []api.Reach
+		ok     bool
+	}{
+		{nil, nil, true}, {[]string{"5"}, []api.Reach{reach(5, 5)}, true}, {[]string{"5:7", "-3", "7:5"}, []api.Reach{reach(5, 7), reach(-3, -3), reach(7, 5)}, true}, {[]string{"5:7", "x"}, nil, false}, {[]string{"5:5", "7"}, nil, false}, {[]string{""}, nil, false},
+	} {
+		if l, ok := terms.Reaches(x.fields); !slices.Equal(l, x.want) || ok != x.ok {
+			t.Errorf("%q: %v, %v", x.fields, l, ok)
 		}
 	}
 }

@@ -79,15 +79,20 @@ func Numbers(fields []string, many int) ([]int, bool) {
 	if len(fields) != many {
 		return nil, false
 	}
-	var numbers []int
+	return readEach(fields, Number)
+}
+
+// readEach returns what is in fields, and whether each has its form.
+func readEach[T any](fields []string, read func(string) (T, bool)) ([]T, bool) {
+	var all []T
 	for _, f := range fields {
-		n, ok := Number(f)
+		x, ok := read(f)
 		if !ok {
 			return nil, false
 		}
-		numbers = append(numbers, n)
+		all = append(all, x)
 	}
-	return numbers, true
+	return all, true
 }
 
 // List returns the list in a field, and whether the field has the form of one.
@@ -95,8 +100,7 @@ func List(field string) ([]int, bool) {
 	if field == nothing {
 		return nil, true
 	}
-	fields := strings.Split(field, comma)
-	return Numbers(fields, len(fields))
+	return readEach(strings.Split(field, comma), Number)
 }
 
 // PrintList writes a list.
@@ -138,12 +142,21 @@ func Reach(field string) (api.Reach, bool) {
 	return api.Reach{Least: least, Most: most}, true
 }
 
+// Reaches returns the reaches in fields, and whether each has the form of one.
+func Reaches(fields []string) ([]api.Reach, bool) { return readEach(fields, Reach) }
+
 // PrintReach writes a reach.
 func PrintReach(r api.Reach) string {
 	if r.Least == r.Most {
 		return PrintNumber(r.Least)
 	}
 	return PrintNumber(r.Least) + colon + PrintNumber(r.Most)
+}
+
+// OneOf returns the index of the word, of several ones, that is in a field, and whether one of them is.
+func OneOf(field string, words ...string) (int, bool) {
+	i := slices.Index(words, field)
+	return max(i, 0), i >= 0
 }
 
 // PrintEither writes one of two words: the first one if something is so.
@@ -172,4 +185,26 @@ func ReadLines(text string, read func(fields []string) bool) error {
 		}
 	}
 	return nil
+}
+
+// ReadInOrder is ReadLines for lines that stand in the order of their kinds; read returns of which kind a line is, and whether it has its form.
+func ReadInOrder(text string, read func(fields []string) (kind int, ok bool)) error {
+	var o order
+	return ReadLines(text, func(fields []string) bool {
+		kind, ok := read(fields)
+		return ok && o.next(kind)
+	})
+}
+
+// order is that of the kinds of lines of a text: the first line alone is of the kind 0, and none is of a lesser kind than one before it.
+type order struct {
+	begun bool
+	last  int
+}
+
+// next tells whether a line of a kind stands in order behind those before it.
+func (o *order) next(kind int) bool {
+	is := kind >= o.last && (kind > 0) == o.begun
+	o.begun, o.last = true, kind
+	return is
 }
