@@ -9,6 +9,7 @@ import (
 
 	"lagan/api"
 	"lagan/bearing"
+	"lagan/model"
 )
 
 // Tests of P1.1 to P1.5: what the functions return.
@@ -229,7 +230,7 @@ func TestCasesAsReckonedOtherwise(t *testing.T) {
 		checkSquares(t, b, cases)
 		checkOffs(t, b, cases)
 		for i := range b.Witnesses {
-			want := modelKnown(cases, func(c api.BearingCase) bool { return slices.Contains(c.False, i) })
+			want := model.Known(cases, func(c api.BearingCase) bool { return slices.Contains(c.False, i) })
 			if u, h := bearing.False(b, i); u != want || h != api.Smooth {
 				t.Errorf("False(%v, %d): %v, %v", b, i, u, h)
 			}
@@ -267,7 +268,7 @@ func checkSquares(t *testing.T, b api.BearingChart, cases []api.BearingCase) {
 	east, north := reach(9, -9), reach(9, -9)
 	for n := range b.High {
 		for e := range b.Wide {
-			is := modelKnown(cases, func(c api.BearingCase) bool { return c.At == at(e, n) })
+			is := model.Known(cases, func(c api.BearingCase) bool { return c.At == at(e, n) })
 			if u, h := bearing.At(b, at(e, n)); u != is || h != api.Smooth {
 				t.Errorf("At(%v, %d, %d): %v, %v", b, e, n, u, h)
 			}
@@ -378,11 +379,11 @@ func TestWitnessesAsReckonedOtherwise(t *testing.T) {
 		many := len(b.Witnesses)
 		together := func(list []int) bool { return len(modelCases(only(b, list))) > 0 }
 		few, clash := others(many, nil), []int(nil)
-		for _, l := range lists(many) {
-			if together(others(many, l)) && compareLists(l, few) < 0 {
+		for _, l := range model.Lists(many) {
+			if together(others(many, l)) && model.CompareLists(l, few) < 0 {
 				few = l
 			}
-			if !together(l) && (clash == nil || compareLists(l, clash) < 0) {
+			if !together(l) && (clash == nil || model.CompareLists(l, clash) < 0) {
 				clash = l
 			}
 		}

@@ -1,13 +1,13 @@
 package bearing_test
 
 import (
-	"cmp"
 	"math/rand"
 	"slices"
 	"testing"
 
 	"lagan/api"
 	"lagan/bearing"
+	"lagan/model"
 )
 
 // The model is a second, slow way to reckon what package bearing tells: it writes down all cases.
@@ -73,18 +73,6 @@ func modelRight(w api.BearingWitness, s api.BearingSquare, offs []int) bool {
 	return (modelBearing(w.At, s)+offs[w.Compass]-w.Bearing)%8 == 0
 }
 
-// lists returns all lists of numbers below n that are ascending.
-func lists(n int) [][]int {
-	if n == 0 {
-		return [][]int{{}}
-	}
-	all := lists(n - 1)
-	for _, l := range all[:len(all):len(all)] {
-		all = append(all, append(slices.Clone(l), n-1))
-	}
-	return all
-}
-
 // modelOffs returns all by which compasses can be off, each reach wider by some on both sides.
 func modelOffs(compasses []api.Reach, wider int) [][]int {
 	all := [][]int{{}}
@@ -125,7 +113,7 @@ func modelAll(b api.BearingChart, wider int) []api.BearingCase {
 	for north := range b.High {
 		for east := range b.Wide {
 			for _, offs := range modelOffs(b.Compasses, wider) {
-				for _, liars := range lists(len(b.Witnesses)) {
+				for _, liars := range model.Lists(len(b.Witnesses)) {
 					all = append(all, api.BearingCase{At: at(east, north), Offs: offs, False: liars})
 				}
 			}
@@ -143,23 +131,6 @@ func modelCases(b api.BearingChart) []api.BearingCase {
 		}
 	}
 	return cases
-}
-
-// modelKnown returns how well something is known.
-func modelKnown(cases []api.BearingCase, isSo func(c api.BearingCase) bool) api.Known {
-	yes := 0
-	for _, c := range cases {
-		if isSo(c) {
-			yes++
-		}
-	}
-	switch yes {
-	case len(cases):
-		return api.Surely
-	case 0:
-		return api.Never
-	}
-	return api.Unsure
 }
 
 // only returns a book with some of the witnesses, none of whom can be false.
@@ -183,11 +154,6 @@ func others(n int, list []int) []int {
 		}
 	}
 	return rest
-}
-
-// compareLists compares by how many elements there are, and then by these.
-func compareLists(a, b []int) int {
-	return cmp.Or(cmp.Compare(len(a), len(b)), slices.Compare(a, b))
 }
 
 // truth is how it really is.
@@ -247,13 +213,4 @@ func mustWhere(t *testing.T, b api.BearingChart) []api.BearingSquare {
 		t.Fatalf("Where(%v): %v", b, h)
 	}
 	return l
-}
-
-func contains(all, some []api.BearingSquare) bool {
-	for _, s := range some {
-		if !slices.Contains(all, s) {
-			return false
-		}
-	}
-	return true
 }

@@ -7,6 +7,7 @@ import (
 
 	"lagan/api"
 	"lagan/bearing"
+	"lagan/model"
 )
 
 // Tests of P1.6 to P1.12: what holds of all books.
@@ -94,7 +95,7 @@ func TestNoOthers(t *testing.T) {
 				found = append(found, c.At)
 			}
 		}
-		if len(found) != len(squares) || !contains(found, squares) {
+		if len(found) != len(squares) || !model.Contains(found, squares) {
 			t.Errorf("Where(%v): %v, but cases are at %v", b, squares, found)
 		}
 		for i := range b.Compasses {
@@ -172,7 +173,7 @@ func TestWitnessesFewest(t *testing.T) {
 		if len(clash) == 0 && !sound(others(many, nil)) {
 			t.Errorf("Clash(%v): nobody", b)
 		}
-		for _, l := range lists(many) {
+		for _, l := range model.Lists(many) {
 			if len(l) < len(few) && sound(others(many, l)) {
 				t.Errorf("Fewest(%v): %v, but without %v, too", b, few, l)
 			}
@@ -213,7 +214,7 @@ func checkLearnt(t *testing.T, before, after api.BearingChart, noCase bool) {
 	if noCase && mustCases(t, after) > mustCases(t, before) {
 		t.Errorf("%v has more cases than %v", after, before)
 	}
-	if !contains(mustWhere(t, before), mustWhere(t, after)) {
+	if !model.Contains(mustWhere(t, before), mustWhere(t, after)) {
 		t.Errorf("%v has more squares than %v", after, before)
 	}
 	for i := range before.Witnesses {
@@ -278,7 +279,7 @@ func TestMoved(t *testing.T) {
 			squares[i].East += east
 			squares[i].North += north
 		}
-		if l := mustWhere(t, far); !contains(l, squares) {
+		if l := mustWhere(t, far); !model.Contains(l, squares) {
 			t.Errorf("Where(%v): %v, not all of %v", far, l, squares)
 		}
 		moved++

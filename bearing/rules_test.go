@@ -11,6 +11,7 @@ import (
 
 	"lagan/api"
 	"lagan/bearing"
+	"lagan/model"
 )
 
 // Tests of P0.1 to P0.3 and of the rules, as far as they speak of package bearing.
@@ -125,7 +126,7 @@ func TestBookFirst(t *testing.T) {
 		if want == api.Smooth {
 			continue
 		}
-		checkZero(t, want, func() (bool, api.Hitch) {
+		model.CheckZero(t, want, func() (bool, api.Hitch) {
 			is, h := bearing.IsCase(b, api.BearingCase{At: at(-1, -1)})
 			return !is, h
 		}, func() (bool, api.Hitch) {
@@ -171,15 +172,6 @@ func TestBookFirst(t *testing.T) {
 			s, h := bearing.Print(b)
 			return s == "", h
 		})
-	}
-}
-
-func checkZero(t *testing.T, want api.Hitch, calls ...func() (bool, api.Hitch)) {
-	t.Helper()
-	for i, call := range calls {
-		if zero, h := call(); !zero || h != want {
-			t.Errorf("call %d: zero values: %v, %v, want %v", i, zero, h, want)
-		}
 	}
 }
 

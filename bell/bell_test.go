@@ -9,6 +9,7 @@ import (
 
 	"lagan/api"
 	"lagan/bell"
+	"lagan/model"
 )
 
 // Tests of P4.1 to P4.5: what the functions return.
@@ -321,7 +322,7 @@ func TestPlanHitches(t *testing.T) {
 		{[]int{0}, api.Missing}, {[]int{6}, api.Missing}, {[]int{-1}, api.Missing}, {[]int{math.MinInt}, api.Missing}, {[]int{math.MaxInt}, api.Missing}, {[]int{1, 6, 1}, api.Missing}, {[]int{2, 1, 6}, api.Crossed}, {[]int{2, 2}, api.Crossed}, {[]int{1, 2, 2}, api.Crossed}, {[]int{1, 2, 3}, api.Lacking}, {[]int{1, 2, 3, 4, 5}, api.Lacking}, {make([]int, 100000), api.Missing},
 	} {
 		for _, b := range []api.BellBook{bookB(), adriftBook()} {
-			checkZero(t, x.want, planned(b, x.plan, 0)...)
+			model.CheckZero(t, x.want, planned(b, x.plan, 0)...)
 			if l, h := bell.Play(b, airCase(0, 3, 4), x.plan); l != nil || h != x.want {
 				t.Errorf("%d: %v, %v", i, l, h)
 			}
@@ -329,7 +330,7 @@ func TestPlanHitches(t *testing.T) {
 	}
 	none := bookB()
 	none.Casks = 0
-	checkZero(t, api.Lacking, planned(none, []int{1}, 1)...)
+	model.CheckZero(t, api.Lacking, planned(none, []int{1}, 1)...)
 }
 
 func TestCasesOfB(t *testing.T) {
@@ -409,14 +410,14 @@ func TestCasesAsReckonedOtherwise(t *testing.T) {
 // checkAdrift checks what is told of a book that has no case.
 func checkAdrift(t *testing.T, b api.BellBook, plan []int) {
 	t.Helper()
-	checkZero(t, api.Adrift, planned(b, plan, 1)...)
-	checkZero(t, api.Adrift, questions(b)...)
-	checkZero(t, api.Adrift, func() (bool, api.Hitch) {
+	model.CheckZero(t, api.Adrift, planned(b, plan, 1)...)
+	model.CheckZero(t, api.Adrift, questions(b)...)
+	model.CheckZero(t, api.Adrift, func() (bool, api.Hitch) {
 		o, h := bell.Caulk(b, reach(0, 99))
 		return isZero(o), h
 	})
 	for i := range b.Men {
-		checkZero(t, api.Adrift, func() (bool, api.Hitch) {
+		model.CheckZero(t, api.Adrift, func() (bool, api.Hitch) {
 			l, h := bell.Breaths(b, i)
 			return l == nil, h
 		}, func() (bool, api.Hitch) {
@@ -461,7 +462,7 @@ func checkAir(t *testing.T, b api.BellBook, cases []api.BellCase, plan []int) {
 	if n, found, h := bell.Bad(b, plan); n != bad || found != (bad > 0) || h != api.Smooth {
 		t.Errorf("Bad(%v, %v): %d, %v, %v, want %d", b, plan, n, found, h, bad)
 	}
-	want := modelKnown(cases, func(c api.BellCase) bool { return modelBad(b, b.Depth, modelAir(b, c, plan)) == 0 })
+	want := model.Known(cases, func(c api.BellCase) bool { return modelBad(b, b.Depth, modelAir(b, c, plan)) == 0 })
 	if u, h := bell.Good(b, plan); u != want || h != api.Smooth {
 		t.Errorf("Good(%v, %v): %v, %v, want %v", b, plan, u, h, want)
 	}
@@ -473,7 +474,7 @@ func checkPlans(t *testing.T, b api.BellBook, cases []api.BellCase) {
 	var first, last []int
 	plans := goodPlans(b, cases)
 	if len(plans) > 0 {
-		first = slices.MinFunc(plans, compareLists)
+		first = slices.MinFunc(plans, model.CompareLists)
 		last = first
 		for _, l := range plans {
 			if len(l) == len(first) && slices.Compare(l, last) > 0 {
@@ -501,7 +502,7 @@ func checkDepthAndCrew(t *testing.T, b api.BellBook, cases []api.BellCase, plan 
 	}
 	var most []int
 	some := false
-	for _, men := range lists(len(b.Men)) {
+	for _, men := range model.Lists(len(b.Men)) {
 		if !modelSure(b, cases, b.Depth, plan, men) {
 			continue
 		}
@@ -716,8 +717,8 @@ func TestClashAsReckonedOtherwise(t *testing.T) {
 	clashed := map[int]int{}
 	eachRandom(600, func(_ *rand.Rand, b api.BellBook) {
 		var few []int
-		for _, l := range lists(len(b.Marks)) {
-			if (few == nil || compareLists(l, few) < 0) && len(modelCases(only(b, l))) == 0 {
+		for _, l := range model.Lists(len(b.Marks)) {
+			if (few == nil || model.CompareLists(l, few) < 0) && len(modelCases(only(b, l))) == 0 {
 				few = l
 			}
 		}

@@ -1,13 +1,13 @@
 package bell_test
 
 import (
-	"cmp"
 	"math/rand"
 	"slices"
 	"testing"
 
 	"lagan/api"
 	"lagan/bell"
+	"lagan/model"
 )
 
 // The model is a second, slow way to reckon what package bell tells: it counts air measure by measure, and writes down all cases and all plans.
@@ -75,8 +75,6 @@ func isZero(b api.BellBook) bool {
 	return bareOf(b) == bare{} && b.Men == nil && b.Sent == nil && b.Marks == nil
 }
 
-func isIn(r api.Reach, n int) bool { return r.Least <= n && n <= r.Most }
-
 // modelDry returns how many divisions deep a bell is dry: each of them takes as much air as 33 feet of water and those above it leave of one.
 func modelDry(depth, air int) int {
 	deep := 0
@@ -105,7 +103,7 @@ func modelPlay(b api.BellBook, depth int, plan []int, used int) []int {
 				air += b.Cask
 			}
 		}
-		if isIn(b.Pumped, minute) {
+		if model.In(b.Pumped, minute) {
 			air += b.Pump
 		}
 		for air > modelHolds(b.Room, depth) {
@@ -146,17 +144,17 @@ func modelAir(b api.BellBook, c api.BellCase, plan []int) []int {
 
 // modelIs tells whether a case that has no hitch is a case of a book.
 func modelIs(b api.BellBook, c api.BellCase) bool {
-	if !isIn(b.Leak, c.Leak) {
+	if !model.In(b.Leak, c.Leak) {
 		return false
 	}
 	for i, m := range b.Men {
-		if !isIn(m.Breath, c.Breaths[i]) {
+		if !model.In(m.Breath, c.Breaths[i]) {
 			return false
 		}
 	}
 	air := modelAir(b, c, b.Sent)
 	for _, m := range b.Marks {
-		if !isIn(m.Dry, modelDry(b.Depth, air[m.Minute-1])) {
+		if !model.In(m.Dry, modelDry(b.Depth, air[m.Minute-1])) {
 			return false
 		}
 	}
@@ -204,23 +202,6 @@ func modelCases(b api.BellBook) []api.BellCase {
 	return cases
 }
 
-// modelKnown returns how well something is known.
-func modelKnown(cases []api.BellCase, isSo func(c api.BellCase) bool) api.Known {
-	yes := 0
-	for _, c := range cases {
-		if isSo(c) {
-			yes++
-		}
-	}
-	switch yes {
-	case len(cases):
-		return api.Surely
-	case 0:
-		return api.Never
-	}
-	return api.Unsure
-}
-
 // modelNumbers returns the numbers that cases have.
 func modelNumbers(cases []api.BellCase, of func(c api.BellCase) int) []int {
 	var all []int
@@ -252,27 +233,10 @@ func modelSure(b api.BellBook, cases []api.BellCase, depth int, plan, men []int)
 	return true
 }
 
-// lists returns all lists of numbers below n that are ascending.
-func lists(n int) [][]int {
-	if n == 0 {
-		return [][]int{{}}
-	}
-	all := lists(n - 1)
-	for _, l := range all[:len(all):len(all)] {
-		all = append(all, append(slices.Clone(l), n-1))
-	}
-	return all
-}
-
-// compareLists compares by how many elements there are, and then by these.
-func compareLists(a, b []int) int {
-	return cmp.Or(cmp.Compare(len(a), len(b)), slices.Compare(a, b))
-}
-
 // allPlans returns all plans without a hitch.
 func allPlans(b api.BellBook) [][]int {
 	var all [][]int
-	for _, l := range lists(b.Minutes) {
+	for _, l := range model.Lists(b.Minutes) {
 		if len(l) <= b.Casks {
 			for i := range l {
 				l[i]++
@@ -387,13 +351,4 @@ func mustCases(t *testing.T, b api.BellBook) int {
 		t.Fatalf("Cases(%v): %v", b, h)
 	}
 	return n
-}
-
-func contains[T comparable](all, some []T) bool {
-	for _, x := range some {
-		if !slices.Contains(all, x) {
-			return false
-		}
-	}
-	return true
 }

@@ -7,6 +7,7 @@ import (
 
 	"lagan/api"
 	"lagan/bell"
+	"lagan/model"
 )
 
 // Tests of P4.6 to P4.11: what holds of all books.
@@ -55,7 +56,7 @@ func checkAirTold(t *testing.T, b api.BellBook, really api.BellCase, plan []int)
 	t.Helper()
 	air, _ := bell.Play(b, really, plan)
 	for i, n := range air {
-		if x, _ := bell.Air(b, plan, i+1); !isIn(x, n) {
+		if x, _ := bell.Air(b, plan, i+1); !model.In(x, n) {
 			t.Errorf("%v, %v: Air %v %d: %v, but %d", b, really, plan, i+1, x, n)
 		}
 	}
@@ -320,12 +321,12 @@ func checkLearnt(t *testing.T, before, after api.BellBook, plan []int) {
 		t.Errorf("%v has more cases than %v", after, before)
 	}
 	was, _ := bell.Leaks(before)
-	if l, _ := bell.Leaks(after); !contains(was, l) {
+	if l, _ := bell.Leaks(after); !model.Contains(was, l) {
 		t.Errorf("%v leaks by %v, but %v by %v", after, l, before, was)
 	}
 	for i := range before.Men {
 		was, _ := bell.Breaths(before, i)
-		if l, _ := bell.Breaths(after, i); !contains(was, l) {
+		if l, _ := bell.Breaths(after, i); !model.Contains(was, l) {
 			t.Errorf("%v: %d breathes %v, but %v: %v", after, i, l, before, was)
 		}
 	}
@@ -392,7 +393,7 @@ func TestMarksClashAlone(t *testing.T) {
 		if !clashes(l) {
 			t.Errorf("Clash(%v): %v, but they have a case", b, l)
 		}
-		for _, few := range lists(len(b.Marks)) {
+		for _, few := range model.Lists(len(b.Marks)) {
 			if len(few) < len(l) && clashes(few) {
 				t.Errorf("Clash(%v): %v, but %v clash", b, l, few)
 			}

@@ -11,6 +11,7 @@ import (
 
 	"lagan/api"
 	"lagan/bell"
+	"lagan/model"
 )
 
 // Tests of P0.1 to P0.3 and of the rules, as far as they speak of package bell.
@@ -144,15 +145,6 @@ func questions(b api.BellBook) []func() (bool, api.Hitch) {
 	}}
 }
 
-func checkZero(t *testing.T, want api.Hitch, calls ...func() (bool, api.Hitch)) {
-	t.Helper()
-	for i, call := range calls {
-		if zero, h := call(); !zero || h != want {
-			t.Errorf("call %d: zero values: %v, %v, want %v", i, zero, h, want)
-		}
-	}
-}
-
 // P0.2: with a hitch of the book all other results are zero values, whatever else is handed in.
 func TestBookFirst(t *testing.T) {
 	c, plan := airCase(100, 99), []int{0, 0}
@@ -161,9 +153,9 @@ func TestBookFirst(t *testing.T) {
 		if want == api.Smooth {
 			continue
 		}
-		checkZero(t, want, planned(b, plan, -1)...)
-		checkZero(t, want, questions(b)...)
-		checkZero(t, want, func() (bool, api.Hitch) {
+		model.CheckZero(t, want, planned(b, plan, -1)...)
+		model.CheckZero(t, want, questions(b)...)
+		model.CheckZero(t, want, func() (bool, api.Hitch) {
 			n, h := bell.Dry(b, -1)
 			return n == 0, h
 		}, func() (bool, api.Hitch) {

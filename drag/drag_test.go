@@ -9,6 +9,7 @@ import (
 
 	"lagan/api"
 	"lagan/drag"
+	"lagan/model"
 )
 
 // Tests of P2.1 to P2.5: what the functions return.
@@ -349,18 +350,18 @@ func checkSquares(t *testing.T, b api.DragBook, cases []api.DragCase) {
 	t.Helper()
 	var where, unswept []api.DragSquare
 	for _, s := range squares(b) {
-		lies := modelKnown(cases, func(c api.DragCase) bool { return c.Wreck == s })
+		lies := model.Known(cases, func(c api.DragCase) bool { return c.Wreck == s })
 		if u, h := drag.Lies(b, s); u != lies || h != api.Smooth {
 			t.Errorf("Lies(%v, %v): %v, %v", b, s, u, h)
 		}
 		if lies != api.Never {
 			where = append(where, s)
 		}
-		muddy := modelKnown(cases, func(c api.DragCase) bool { return modelMud(b, c.Mud, s) })
+		muddy := model.Known(cases, func(c api.DragCase) bool { return modelMud(b, c.Mud, s) })
 		if u, h := drag.Muddy(b, s); u != muddy || h != api.Smooth {
 			t.Errorf("Muddy(%v, %v): %v, %v", b, s, u, h)
 		}
-		swept := modelKnown(cases, func(c api.DragCase) bool {
+		swept := model.Known(cases, func(c api.DragCase) bool {
 			for i, l := range b.Lines {
 				if slices.Contains(modelSwept(b, l, c.Shifts[i]), s) {
 					return true
@@ -393,7 +394,7 @@ func checkLines(t *testing.T, b api.DragBook, cases []api.DragCase) {
 		if l, h := drag.Shifts(b, i); !slices.Equal(l, shifts) || h != api.Smooth {
 			t.Errorf("Shifts(%v, %d): %v, %v, want %v", b, i, l, h, shifts)
 		}
-		missed := modelKnown(cases, func(c api.DragCase) bool { return slices.Contains(c.Slack, i) })
+		missed := model.Known(cases, func(c api.DragCase) bool { return slices.Contains(c.Slack, i) })
 		if u, h := drag.Missed(b, i); u != missed || h != api.Smooth {
 			t.Errorf("Missed(%v, %d): %v, %v, want %v", b, i, u, h, missed)
 		}
@@ -486,8 +487,8 @@ func TestPlansAsReckonedOtherwise(t *testing.T) {
 		rows, lanes := 1+r.Intn(b.Rows), 1+r.Intn(b.Lanes)
 		patches := modelPatches(b, rows, lanes)
 		var few []int
-		for _, l := range lists(len(patches)) {
-			if len(l) <= 4 && modelFinds(patches, l, where) && (few == nil || compareLists(l, few) < 0) {
+		for _, l := range model.Lists(len(patches)) {
+			if len(l) <= 4 && modelFinds(patches, l, where) && (few == nil || model.CompareLists(l, few) < 0) {
 				few = l
 			}
 		}
@@ -516,7 +517,7 @@ func modelFinds(patches [][]api.DragSquare, list []int, where []api.DragSquare) 
 	for _, i := range list {
 		all = append(all, patches[i]...)
 	}
-	return contains(all, where)
+	return model.Contains(all, where)
 }
 
 // modelLeft returns how many squares are left, at most, once it is known whether the wreck is in a patch: all of them, if a rock is in it.
@@ -577,8 +578,8 @@ func TestClashAsReckonedOtherwise(t *testing.T) {
 	eachRandom(120, func(_ *rand.Rand, b api.DragBook) {
 		many := len(b.Lines)
 		var few []int
-		for _, l := range lists(many + len(b.Leads)) {
-			if (few == nil || compareLists(l, few) < 0) && len(modelCases(only(b, l))) == 0 {
+		for _, l := range model.Lists(many + len(b.Leads)) {
+			if (few == nil || model.CompareLists(l, few) < 0) && len(modelCases(only(b, l))) == 0 {
 				few = l
 			}
 		}

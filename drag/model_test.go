@@ -1,7 +1,6 @@
 package drag_test
 
 import (
-	"cmp"
 	"math/rand"
 	"slices"
 	"strings"
@@ -9,6 +8,7 @@ import (
 
 	"lagan/api"
 	"lagan/drag"
+	"lagan/model"
 )
 
 // The model is a second, slow way to reckon what package drag tells: it writes down all cases.
@@ -145,18 +145,6 @@ func modelIs(b api.DragBook, c api.DragCase) bool {
 	return true
 }
 
-// lists returns all lists of numbers below n that are ascending.
-func lists(n int) [][]int {
-	if n == 0 {
-		return [][]int{{}}
-	}
-	all := lists(n - 1)
-	for _, l := range all[:len(all):len(all)] {
-		all = append(all, append(slices.Clone(l), n-1))
-	}
-	return all
-}
-
 // modelShifts returns all by which the tide can shift lines, each reach wider by some on both sides.
 func modelShifts(lines []api.DragLine, wider int) [][]int {
 	all := [][]int{{}}
@@ -177,8 +165,8 @@ func modelAll(b api.DragBook, wider int) []api.DragCase {
 	var all []api.DragCase
 	for _, s := range squares(b) {
 		for _, shifts := range modelShifts(b.Lines, wider) {
-			for _, slack := range lists(len(b.Lines)) {
-				for _, mud := range lists(len(unknown(b))) {
+			for _, slack := range model.Lists(len(b.Lines)) {
+				for _, mud := range model.Lists(len(unknown(b))) {
 					all = append(all, api.DragCase{Wreck: s, Shifts: shifts, Slack: slack, Mud: mud})
 				}
 			}
@@ -198,23 +186,6 @@ func modelCases(b api.DragBook) []api.DragCase {
 	return cases
 }
 
-// modelKnown returns how well something is known.
-func modelKnown(cases []api.DragCase, isSo func(c api.DragCase) bool) api.Known {
-	yes := 0
-	for _, c := range cases {
-		if isSo(c) {
-			yes++
-		}
-	}
-	switch yes {
-	case len(cases):
-		return api.Surely
-	case 0:
-		return api.Never
-	}
-	return api.Unsure
-}
-
 // modelPatches returns the squares of each patch on the chart, the first one of which it lies at.
 func modelPatches(b api.DragBook, rows, lanes int) [][]api.DragSquare {
 	var all [][]api.DragSquare
@@ -228,11 +199,6 @@ func modelPatches(b api.DragBook, rows, lanes int) [][]api.DragSquare {
 		}
 	}
 	return all
-}
-
-// compareLists compares by how many elements there are, and then by these.
-func compareLists(a, b []int) int {
-	return cmp.Or(cmp.Compare(len(a), len(b)), slices.Compare(a, b))
 }
 
 // only returns a book with some of the lines and leads, each of which counts as many more as there are lines.
@@ -346,13 +312,4 @@ func mustWhere(t *testing.T, b api.DragBook) []api.DragSquare {
 		t.Fatalf("Where(%v): %v", b, h)
 	}
 	return l
-}
-
-func contains[T comparable](all, some []T) bool {
-	for _, x := range some {
-		if !slices.Contains(all, x) {
-			return false
-		}
-	}
-	return true
 }

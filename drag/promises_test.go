@@ -7,6 +7,7 @@ import (
 
 	"lagan/api"
 	"lagan/drag"
+	"lagan/model"
 )
 
 // Tests of P2.6 to P2.11: what holds of all books.
@@ -202,7 +203,7 @@ func TestSweeping(t *testing.T) {
 
 // sameSquares tells whether two lists together have the squares of a whole one.
 func sameSquares(whole, one, other []api.DragSquare) bool {
-	return len(whole) == len(one)+len(other) && contains(whole, one) && contains(whole, other)
+	return len(whole) == len(one)+len(other) && model.Contains(whole, one) && model.Contains(whole, other)
 }
 
 // P2.9
@@ -216,7 +217,7 @@ func TestPlansFind(t *testing.T) {
 		rows, lanes := 1+r.Intn(b.Rows), 1+r.Intn(b.Lanes)
 		at, found, _ := drag.Fewest(b, rows, lanes)
 		patches := modelPatches(b, rows, lanes)
-		for _, l := range lists(len(patches)) {
+		for _, l := range model.Lists(len(patches)) {
 			if len(l) <= api.MaxDragPlan && (!found || len(l) < len(at)) && modelFinds(patches, l, where) {
 				t.Errorf("Fewest(%v, %d, %d): %v, %v, but %v find her", b, rows, lanes, at, found, l)
 			}
@@ -303,7 +304,7 @@ func checkLearnt(t *testing.T, before, after api.DragBook, noCase bool) {
 	if noCase && mustCases(t, after) > mustCases(t, before) {
 		t.Errorf("%v has more cases than %v", after, before)
 	}
-	if !contains(mustWhere(t, before), mustWhere(t, after)) {
+	if !model.Contains(mustWhere(t, before), mustWhere(t, after)) {
 		t.Errorf("%v has more squares than %v", after, before)
 	}
 	kept := func(was, is api.Known) {
@@ -324,12 +325,12 @@ func checkLearnt(t *testing.T, before, after api.DragBook, noCase bool) {
 		is, _ := drag.Missed(after, i)
 		kept(was, is)
 		shifts, _ := drag.Shifts(before, i)
-		if l, _ := drag.Shifts(after, i); !contains(shifts, l) {
+		if l, _ := drag.Shifts(after, i); !model.Contains(shifts, l) {
 			t.Errorf("%v can shift the line %d by %v, %v by %v", after, i, l, before, shifts)
 		}
 	}
 	unswept, _ := drag.Unswept(before)
-	if l, _ := drag.Unswept(after); len(before.Lines) == len(after.Lines) && !contains(l, unswept) {
+	if l, _ := drag.Unswept(after); len(before.Lines) == len(after.Lines) && !model.Contains(l, unswept) {
 		t.Errorf("%v: %v, but %v: %v", before, unswept, after, l)
 	}
 	for rows := 1; rows <= before.Rows; rows++ {
@@ -358,7 +359,7 @@ func TestWhatClashesDoesSoAlone(t *testing.T) {
 		if !clashes(all) {
 			t.Errorf("Clash(%v): %v, %v, but they have a case", b, lines, leads)
 		}
-		for _, l := range lists(len(b.Lines) + len(b.Leads)) {
+		for _, l := range model.Lists(len(b.Lines) + len(b.Leads)) {
 			if len(l) < len(all) && clashes(l) {
 				t.Errorf("Clash(%v): %v, %v, but %v clash", b, lines, leads, l)
 			}
@@ -378,7 +379,7 @@ func TestTurned(t *testing.T) {
 		for i, s := range where {
 			where[i] = turnSquare(b, s)
 		}
-		if len(l) != len(where) || !contains(l, where) || h != k {
+		if len(l) != len(where) || !model.Contains(l, where) || h != k {
 			t.Errorf("Where(%v): %v, of %v: %v", b, where, turned, l)
 		}
 	})

@@ -11,6 +11,7 @@ import (
 
 	"lagan/api"
 	"lagan/drag"
+	"lagan/model"
 )
 
 // Tests of P0.1 to P0.3 and of the rules, as far as they speak of package drag.
@@ -119,7 +120,7 @@ func TestBookFirst(t *testing.T) {
 		if want == api.Smooth {
 			continue
 		}
-		checkZero(t, want, func() (bool, api.Hitch) {
+		model.CheckZero(t, want, func() (bool, api.Hitch) {
 			l, h := drag.Swept(b, -1, 9)
 			return l == nil, h
 		}, func() (bool, api.Hitch) {
@@ -171,15 +172,6 @@ func TestBookFirst(t *testing.T) {
 			s, h := drag.Print(b)
 			return s == "", h
 		})
-	}
-}
-
-func checkZero(t *testing.T, want api.Hitch, calls ...func() (bool, api.Hitch)) {
-	t.Helper()
-	for i, call := range calls {
-		if zero, h := call(); !zero || h != want {
-			t.Errorf("call %d: zero values: %v, %v, want %v", i, zero, h, want)
-		}
 	}
 }
 

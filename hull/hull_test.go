@@ -9,6 +9,7 @@ import (
 
 	"lagan/api"
 	"lagan/hull"
+	"lagan/model"
 )
 
 // Tests of P6.1 to P6.5: what each function returns.
@@ -255,7 +256,7 @@ func TestPieceHitches(t *testing.T) {
 			if n, h := hull.Moment(b, hullCase(0, 20, 30, 10), x.out); n != 0 || h != x.want {
 				t.Errorf("%d: Moment: %d, %v", i, n, h)
 			}
-			checkZero(t, x.want, withPieces(b, x.out)...)
+			model.CheckZero(t, x.want, withPieces(b, x.out)...)
 		}
 	}
 }
@@ -404,9 +405,9 @@ func TestCasesAsReckonedOtherwise(t *testing.T) {
 // checkAdrift checks what is told of a book that has no case.
 func checkAdrift(t *testing.T, r *rand.Rand, b api.HullBook) {
 	t.Helper()
-	checkZero(t, api.Adrift, questions(b)...)
-	checkZero(t, api.Adrift, withPieces(b, randomPieces(r, b))...)
-	checkZero(t, api.Adrift, func() (bool, api.Hitch) {
+	model.CheckZero(t, api.Adrift, questions(b)...)
+	model.CheckZero(t, api.Adrift, withPieces(b, randomPieces(r, b))...)
+	model.CheckZero(t, api.Adrift, func() (bool, api.Hitch) {
 		l, h := hull.Weights(b, 0)
 		return l == nil, h
 	}, func() (bool, api.Hitch) {
@@ -423,26 +424,16 @@ func checkAdrift(t *testing.T, r *rand.Rand, b api.HullBook) {
 	}
 }
 
-// numbersOf returns what is told of cases, ascending.
-func numbersOf(cases []api.HullCase, tell func(c api.HullCase) int) []int {
-	var all []int
-	for _, c := range cases {
-		all = append(all, tell(c))
-	}
-	slices.Sort(all)
-	return slices.Compact(all)
-}
-
 // checkNumbers checks what is told of weights and of the ballast.
 func checkNumbers(t *testing.T, b api.HullBook, cases []api.HullCase) {
 	t.Helper()
 	for piece := range b.Pieces {
-		want := numbersOf(cases, func(c api.HullCase) int { return c.Weights[piece] })
+		want := model.NumbersOf(cases, func(c api.HullCase) int { return c.Weights[piece] })
 		if l, h := hull.Weights(b, piece); !slices.Equal(l, want) || h != api.Smooth {
 			t.Errorf("Weights(%v, %d): %v, %v, want %v", b, piece, l, h, want)
 		}
 	}
-	want := numbersOf(cases, func(c api.HullCase) int { return c.Ballast })
+	want := model.NumbersOf(cases, func(c api.HullCase) int { return c.Ballast })
 	if l, h := hull.Ballasts(b); !slices.Equal(l, want) || h != api.Smooth {
 		t.Errorf("Ballasts(%v): %v, %v, want %v", b, l, h, want)
 	}
@@ -453,12 +444,12 @@ func checkMoments(t *testing.T, r *rand.Rand, b api.HullBook, cases []api.HullCa
 	t.Helper()
 	for range 8 {
 		out := randomPieces(r, b)
-		all := numbersOf(cases, func(c api.HullCase) int { return modelMoment(b, c, out) })
+		all := model.NumbersOf(cases, func(c api.HullCase) int { return modelMoment(b, c, out) })
 		want := reach(all[0], all[len(all)-1])
 		if x, h := hull.Moments(b, out); x != want || h != api.Smooth {
 			t.Errorf("Moments(%v, %v): %v, %v, want %v", b, out, x, h, want)
 		}
-		rolls := modelKnown(cases, func(c api.HullCase) bool { return modelRolls(b, c, out) })
+		rolls := model.Known(cases, func(c api.HullCase) bool { return modelRolls(b, c, out) })
 		if u, h := hull.Rolls(b, out); u != rolls || h != api.Smooth {
 			t.Errorf("Rolls(%v, %v): %v, %v, want %v", b, out, u, h, rolls)
 		}
@@ -470,7 +461,7 @@ func checkOrders(t *testing.T, r *rand.Rand, b api.HullBook, cases []api.HullCas
 	t.Helper()
 	var next []int
 	for _, piece := range modelFree(b) {
-		if modelKnown(cases, func(c api.HullCase) bool { return modelSafe(b, c, []int{piece}) }) == surely {
+		if model.Known(cases, func(c api.HullCase) bool { return modelSafe(b, c, []int{piece}) }) == surely {
 			next = append(next, piece)
 		}
 	}
@@ -479,7 +470,7 @@ func checkOrders(t *testing.T, r *rand.Rand, b api.HullBook, cases []api.HullCas
 	}
 	for range 5 {
 		order := randomOrder(r, b)
-		want := modelKnown(cases, func(c api.HullCase) bool { return modelSafe(b, c, order) })
+		want := model.Known(cases, func(c api.HullCase) bool { return modelSafe(b, c, order) })
 		if u, h := hull.Safe(b, order); u != want || h != api.Smooth {
 			t.Errorf("Safe(%v, %v): %v, %v, want %v", b, order, u, h, want)
 		}
@@ -592,7 +583,7 @@ func TestBestOrders(t *testing.T) {
 func TestWhatIsNotThere(t *testing.T) {
 	for _, b := range []api.HullBook{bookH(), adriftBook()} {
 		for _, i := range []int{-1, 3, 5, math.MinInt, math.MaxInt} {
-			checkZero(t, api.Missing, withPiece(b, i)...)
+			model.CheckZero(t, api.Missing, withPiece(b, i)...)
 		}
 	}
 }
@@ -621,7 +612,7 @@ func TestClashAsReckonedOtherwise(t *testing.T) {
 		if r.Intn(10) > 0 {
 			b = heeledAtRandom(r, b)
 		}
-		few, found := fewestOf(len(b.Heels), func(l []int) bool { return len(modelCases(only(b, l))) == 0 })
+		few, found := model.FewestOf(len(b.Heels), func(l []int) bool { return len(modelCases(only(b, l))) == 0 })
 		want := api.Smooth
 		if found && len(few) == 0 {
 			want = api.Lacking

@@ -1,13 +1,13 @@
 package hull_test
 
 import (
-	"cmp"
 	"math/rand"
 	"slices"
 	"testing"
 
 	"lagan/api"
 	"lagan/hull"
+	"lagan/model"
 )
 
 // The model is a second, slow way to reckon what package hull tells: it lays weights on arms pound by pound, writes down all cases, and goes through all permutations of pieces.
@@ -102,17 +102,6 @@ func isZero(b api.HullBook) bool {
 	return b.Limit == 0 && b.Ballast == one(0) && b.Pieces == nil && b.Out == nil && b.Heels == nil
 }
 
-func isIn(r api.Reach, n int) bool { return r.Least <= n && n <= r.Most }
-
-func contains[T comparable](all, some []T) bool {
-	for _, x := range some {
-		if !slices.Contains(all, x) {
-			return false
-		}
-	}
-	return true
-}
-
 // modelMoment returns the moment with some pieces out: each pound counts for each foot.
 func modelMoment(b api.HullBook, c api.HullCase, out []int) int {
 	starboard, port := max(0, c.Ballast), max(0, -c.Ballast)
@@ -152,7 +141,7 @@ func modelSide(moment int) api.HullSide {
 // modelIs tells whether a case that has no hitch is one of a book.
 func modelIs(b api.HullBook, c api.HullCase) bool {
 	for i, p := range b.Pieces {
-		if !isIn(p.Weight, c.Weights[i]) {
+		if !model.In(p.Weight, c.Weights[i]) {
 			return false
 		}
 	}
@@ -166,7 +155,7 @@ func modelIs(b api.HullBook, c api.HullCase) bool {
 			return false
 		}
 	}
-	return isIn(b.Ballast, c.Ballast)
+	return model.In(b.Ballast, c.Ballast)
 }
 
 // modelAll returns all that is of wider reaches, cases of the book or not.
@@ -198,32 +187,6 @@ func modelCases(b api.HullBook) []api.HullCase {
 	return cases
 }
 
-func modelKnown(cases []api.HullCase, isSo func(c api.HullCase) bool) api.Known {
-	isNot := func(c api.HullCase) bool { return !isSo(c) }
-	if !slices.ContainsFunc(cases, isNot) {
-		return api.Surely
-	}
-	if !slices.ContainsFunc(cases, isSo) {
-		return api.Never
-	}
-	return api.Unsure
-}
-
-// permutations returns all orders of some numbers, the least list first if they are ascending.
-func permutations(numbers []int) [][]int {
-	if len(numbers) == 0 {
-		return [][]int{nil}
-	}
-	var all [][]int
-	for i, n := range numbers {
-		rest := slices.Concat(numbers[:i], numbers[i+1:])
-		for _, l := range permutations(rest) {
-			all = append(all, append([]int{n}, l...))
-		}
-	}
-	return all
-}
-
 // left returns the pieces that are not out, ascending.
 func left(b api.HullBook) []int {
 	var all []int
@@ -249,7 +212,7 @@ func isUnder(b api.HullBook, order []int) bool {
 
 // modelOrders returns all orders, the least one first.
 func modelOrders(b api.HullBook) [][]int {
-	return slices.DeleteFunc(permutations(left(b)), func(order []int) bool { return isUnder(b, order) })
+	return slices.DeleteFunc(model.Permutations(left(b)), func(order []int) bool { return isUnder(b, order) })
 }
 
 // modelFree returns the pieces with which an order begins, ascending.
@@ -293,7 +256,7 @@ func modelStrain(b api.HullBook, cases []api.HullCase, order []int) int {
 func safeOrders(b api.HullBook, cases []api.HullCase) [][]int {
 	var safe [][]int
 	for _, order := range modelOrders(b) {
-		if modelKnown(cases, func(c api.HullCase) bool { return modelSafe(b, c, order) }) == api.Surely {
+		if model.Known(cases, func(c api.HullCase) bool { return modelSafe(b, c, order) }) == api.Surely {
 			safe = append(safe, order)
 		}
 	}
@@ -321,33 +284,6 @@ func turned(b api.HullBook) api.HullBook {
 		o.Heels[i].Side = []api.HullSide{api.HullUpright, api.HullStarboard, api.HullPort}[x.Side]
 	}
 	return o
-}
-
-// lists returns all lists of numbers below n that are ascending.
-func lists(n int) [][]int {
-	if n == 0 {
-		return [][]int{{}}
-	}
-	all := lists(n - 1)
-	for _, l := range all[:len(all):len(all)] {
-		all = append(all, append(slices.Clone(l), n-1))
-	}
-	return all
-}
-
-// compareLists compares by how many elements there are, and then by these.
-func compareLists(a, b []int) int {
-	return cmp.Or(cmp.Compare(len(a), len(b)), slices.Compare(a, b))
-}
-
-// fewestOf returns the fewest numbers below n of which something is so, and whether there are any.
-func fewestOf(n int, isSo func(list []int) bool) (fewest []int, found bool) {
-	for _, l := range lists(n) {
-		if (!found || compareLists(l, fewest) < 0) && isSo(l) {
-			fewest, found = l, true
-		}
-	}
-	return fewest, found
 }
 
 // randomReach returns a reach of three numbers at most, and one of these.
@@ -411,7 +347,7 @@ func eachRandom(many int, test func(r *rand.Rand, b api.HullBook)) {
 
 // randomPieces returns some indexes of pieces, ascending.
 func randomPieces(r *rand.Rand, b api.HullBook) []int {
-	all := lists(len(b.Pieces))
+	all := model.Lists(len(b.Pieces))
 	return all[r.Intn(len(all))]
 }
 

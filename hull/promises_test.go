@@ -7,6 +7,7 @@ import (
 
 	"lagan/api"
 	"lagan/hull"
+	"lagan/model"
 )
 
 // Tests of P6.6 to P6.11: what holds of all books.
@@ -21,9 +22,9 @@ func TestWhateverItIs(t *testing.T) {
 			t.Fatalf("%v, %v: no case: %v", b, really, h)
 		}
 		checkTold(t, b, really)
-		for _, out := range lists(len(b.Pieces)) {
+		for _, out := range model.Lists(len(b.Pieces)) {
 			moment := modelMoment(b, really, out)
-			if x, h := hull.Moments(b, out); !isIn(x, moment) || h != api.Smooth {
+			if x, h := hull.Moments(b, out); !model.In(x, moment) || h != api.Smooth {
 				t.Errorf("%v, %v: Moments %v: %v, %v, but %d", b, really, out, x, h, moment)
 			}
 			rolls := modelRolls(b, really, out)
@@ -108,7 +109,7 @@ func TestNoOthers(t *testing.T) {
 				unsure[what]++
 			}
 		}
-		for _, out := range lists(len(b.Pieces)) {
+		for _, out := range model.Lists(len(b.Pieces)) {
 			u, _ := hull.Rolls(b, out)
 			isUnsure("rolls", u, func(c api.HullCase) bool { return modelRolls(b, c, out) })
 		}
@@ -138,7 +139,7 @@ func TestEachPieceTakesItsMoment(t *testing.T) {
 		for piece, p := range b.Pieces {
 			own := p.Arm * c.Weights[piece]
 			all += own
-			for _, out := range lists(len(b.Pieces)) {
+			for _, out := range model.Lists(len(b.Pieces)) {
 				more := slices.Sorted(slices.Values(append(slices.Clone(out), piece)))
 				if !slices.Contains(out, piece) && moment(out)-moment(more) != own {
 					t.Errorf("%v, %v: %d takes %d with %v out", b, c, piece, moment(out)-moment(more), out)
@@ -256,17 +257,17 @@ func checkLearnt(t *testing.T, before, after api.HullBook) {
 	}
 	for i := range before.Pieces {
 		was, _ := hull.Weights(before, i)
-		if l, _ := hull.Weights(after, i); !contains(was, l) {
+		if l, _ := hull.Weights(after, i); !model.Contains(was, l) {
 			t.Errorf("%v: %d weighs %v, but %v: %v", after, i, l, before, was)
 		}
 	}
 	was, _ := hull.Ballasts(before)
-	if l, _ := hull.Ballasts(after); !contains(was, l) {
+	if l, _ := hull.Ballasts(after); !model.Contains(was, l) {
 		t.Errorf("%v: the ballast is %v, but %v: %v", after, l, before, was)
 	}
-	for _, out := range lists(len(before.Pieces)) {
+	for _, out := range model.Lists(len(before.Pieces)) {
 		wide, _ := hull.Moments(before, out)
-		if x, _ := hull.Moments(after, out); !isIn(wide, x.Least) || !isIn(wide, x.Most) {
+		if x, _ := hull.Moments(after, out); !model.In(wide, x.Least) || !model.In(wide, x.Most) {
 			t.Errorf("%v: Moments %v: %v, but %v: %v", after, out, x, before, wide)
 		}
 		rolled, _ := hull.Rolls(before, out)
@@ -281,7 +282,7 @@ func checkLearnt(t *testing.T, before, after api.HullBook) {
 		}
 	}
 	next, _ := hull.Next(before)
-	if l, _ := hull.Next(after); !contains(l, next) {
+	if l, _ := hull.Next(after); !model.Contains(l, next) {
 		t.Errorf("%v: Next: %v, but %v: %v", after, l, before, next)
 	}
 	_, most, _ := hull.Steadiest(before)
@@ -332,7 +333,7 @@ func TestHeelsClashAlone(t *testing.T) {
 		if !clashes(l) {
 			t.Errorf("Clash(%v): %v, but they have a case", b, l)
 		}
-		for _, few := range lists(len(b.Heels)) {
+		for _, few := range model.Lists(len(b.Heels)) {
 			if len(few) < len(l) && clashes(few) {
 				t.Errorf("Clash(%v): %v, but %v clash", b, l, few)
 			}
@@ -394,7 +395,7 @@ func TestTurned(t *testing.T) {
 		if l, n, _ := hull.Steadiest(o); !slices.Equal(l, steadiest) || n != most {
 			t.Errorf("Steadiest(%v): %v, %d, and turned %v, %d", b, steadiest, most, l, n)
 		}
-		for _, out := range lists(len(b.Pieces)) {
+		for _, out := range model.Lists(len(b.Pieces)) {
 			x, _ := hull.Moments(b, out)
 			if y, _ := hull.Moments(o, out); y != reach(-x.Most, -x.Least) {
 				t.Errorf("Moments(%v, %v): %v, and turned %v", b, out, x, y)

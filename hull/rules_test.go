@@ -11,6 +11,7 @@ import (
 
 	"lagan/api"
 	"lagan/hull"
+	"lagan/model"
 )
 
 // Tests of P0.1 to P0.3 and of the rules, as far as they speak of package hull.
@@ -123,15 +124,6 @@ func TestGoroutines(t *testing.T) {
 	}
 }
 
-func checkZero(t *testing.T, want api.Hitch, calls ...func() (bool, api.Hitch)) {
-	t.Helper()
-	for i, call := range calls {
-		if zero, h := call(); !zero || h != want {
-			t.Errorf("call %d: zero values: %v, %v, want %v", i, zero, h, want)
-		}
-	}
-}
-
 // questions are the functions that need a case, and a book alone; each tells whether its results are zero values, and returns its hitch.
 func questions(b api.HullBook) []func() (bool, api.Hitch) {
 	return []func() (bool, api.Hitch){func() (bool, api.Hitch) {
@@ -188,10 +180,10 @@ func TestBookFirst(t *testing.T) {
 		if want == api.Smooth {
 			continue
 		}
-		checkZero(t, want, questions(b)...)
-		checkZero(t, want, withPieces(b, []int{-1})...)
-		checkZero(t, want, withPiece(b, -1)...)
-		checkZero(t, want, func() (bool, api.Hitch) {
+		model.CheckZero(t, want, questions(b)...)
+		model.CheckZero(t, want, withPieces(b, []int{-1})...)
+		model.CheckZero(t, want, withPiece(b, -1)...)
+		model.CheckZero(t, want, func() (bool, api.Hitch) {
 			n, h := hull.Moment(b, c, []int{-1})
 			return n == 0, h
 		}, func() (bool, api.Hitch) {

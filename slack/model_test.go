@@ -1,12 +1,12 @@
 package slack_test
 
 import (
-	"cmp"
 	"math/rand"
 	"slices"
 	"testing"
 
 	"lagan/api"
+	"lagan/model"
 	"lagan/slack"
 )
 
@@ -48,8 +48,6 @@ func isZero(b api.SlackBook) bool {
 	return b.Shift == api.Reach{} && b.Clock == api.Reach{} && b.Turns == nil && b.Watches == nil
 }
 
-func isIn(r api.Reach, n int) bool { return r.Least <= n && n <= r.Most }
-
 // modelSlack tells whether it is slack at a true tick: whether a turn is near enough.
 func modelSlack(b api.SlackBook, c api.SlackCase, tick int) bool {
 	for i, t := range b.Turns {
@@ -62,11 +60,11 @@ func modelSlack(b api.SlackBook, c api.SlackCase, tick int) bool {
 
 // modelIs tells whether a case that has no hitch is a case of a book.
 func modelIs(b api.SlackBook, c api.SlackCase) bool {
-	if !isIn(b.Shift, c.Shift) || !isIn(b.Clock, c.Clock) {
+	if !model.In(b.Shift, c.Shift) || !model.In(b.Clock, c.Clock) {
 		return false
 	}
 	for i, t := range b.Turns {
-		if !isIn(t.Half, c.Halfs[i]) {
+		if !model.In(t.Half, c.Halfs[i]) {
 			return false
 		}
 	}
@@ -121,23 +119,6 @@ func modelCases(b api.SlackBook) []api.SlackCase {
 	return cases
 }
 
-// modelKnown returns how well something is known.
-func modelKnown(cases []api.SlackCase, isSo func(c api.SlackCase) bool) api.Known {
-	yes := 0
-	for _, c := range cases {
-		if isSo(c) {
-			yes++
-		}
-	}
-	switch yes {
-	case len(cases):
-		return api.Surely
-	case 0:
-		return api.Never
-	}
-	return api.Unsure
-}
-
 // modelNumbers returns the numbers from -9 to 9 that cases have.
 func modelNumbers(cases []api.SlackCase, of func(c api.SlackCase) int) []int {
 	var all []int
@@ -167,13 +148,13 @@ func modelReaches(isSo func(tick int) bool) []api.Reach {
 // modelSure returns the reaches of ticks at which it surely is slack.
 func modelSure(b api.SlackBook, cases []api.SlackCase) []api.Reach {
 	return modelReaches(func(tick int) bool {
-		return modelKnown(cases, func(c api.SlackCase) bool { return modelSlack(b, c, tick) }) == api.Surely
+		return model.Known(cases, func(c api.SlackCase) bool { return modelSlack(b, c, tick) }) == api.Surely
 	})
 }
 
 // isInOne tells whether all ticks of a piece of work are in one of several reaches.
 func isInOne(reaches []api.Reach, begin, work int) bool {
-	return slices.ContainsFunc(reaches, func(r api.Reach) bool { return isIn(r, begin) && isIn(r, begin+work-1) })
+	return slices.ContainsFunc(reaches, func(r api.Reach) bool { return model.In(r, begin) && model.In(r, begin+work-1) })
 }
 
 // modelStarts returns when works begin that fit into reaches, as many of them as fit.
@@ -220,23 +201,6 @@ func reversed(list []int) []int {
 // modelLate returns the way in which the last work begins as late as can be, then the one before it, and so on.
 func modelLate(plans [][]int) []int {
 	return slices.MaxFunc(plans, func(a, b []int) int { return slices.Compare(reversed(a), reversed(b)) })
-}
-
-// lists returns all lists of numbers below n that are ascending.
-func lists(n int) [][]int {
-	if n == 0 {
-		return [][]int{{}}
-	}
-	all := lists(n - 1)
-	for _, l := range all[:len(all):len(all)] {
-		all = append(all, append(slices.Clone(l), n-1))
-	}
-	return all
-}
-
-// compareLists compares by how many elements there are, and then by these.
-func compareLists(a, b []int) int {
-	return cmp.Or(cmp.Compare(len(a), len(b)), slices.Compare(a, b))
 }
 
 // only returns a book with some of its watches.
@@ -307,13 +271,4 @@ func mustCases(t *testing.T, b api.SlackBook) int {
 		t.Fatalf("Cases(%v): %v", b, h)
 	}
 	return n
-}
-
-func contains[T comparable](all, some []T) bool {
-	for _, x := range some {
-		if !slices.Contains(all, x) {
-			return false
-		}
-	}
-	return true
 }

@@ -6,6 +6,7 @@ import (
 	"testing"
 
 	"lagan/api"
+	"lagan/model"
 	"lagan/slack"
 )
 
@@ -72,7 +73,7 @@ func checkWorksTold(t *testing.T, b api.SlackBook, really api.SlackCase, works [
 	t.Helper()
 	starts, _ := slack.Starts(b, really, works)
 	many, _ := slack.Many(b, works)
-	if !isIn(many, len(starts)) {
+	if !model.In(many, len(starts)) {
 		t.Errorf("%v, %v: Many %v: %v, but %v", b, really, works, many, starts)
 	}
 	windows, _ := slack.Windows(b, really)
@@ -245,13 +246,13 @@ func checkLearnt(t *testing.T, before, after api.SlackBook, works []int) {
 	}
 	for _, numbers := range []func(api.SlackBook) ([]int, api.Hitch){slack.Shift, slack.Clock} {
 		was, _ := numbers(before)
-		if l, _ := numbers(after); !contains(was, l) {
+		if l, _ := numbers(after); !model.Contains(was, l) {
 			t.Errorf("%v has %v, but %v has %v", after, l, before, was)
 		}
 	}
 	for i := range before.Turns {
 		was, _ := slack.Half(before, i)
-		if l, _ := slack.Half(after, i); !contains(was, l) {
+		if l, _ := slack.Half(after, i); !model.Contains(was, l) {
 			t.Errorf("%v has %v, but %v has %v", after, l, before, was)
 		}
 	}
@@ -292,7 +293,7 @@ func TestWatchesClashAlone(t *testing.T) {
 		if !clashes(l) {
 			t.Errorf("Clash(%v): %v, but they have a case", b, l)
 		}
-		for _, few := range lists(len(b.Watches)) {
+		for _, few := range model.Lists(len(b.Watches)) {
 			if len(few) < len(l) && clashes(few) {
 				t.Errorf("Clash(%v): %v, but %v clash", b, l, few)
 			}

@@ -10,6 +10,7 @@ import (
 	"testing"
 
 	"lagan/api"
+	"lagan/model"
 	"lagan/slack"
 )
 
@@ -118,8 +119,8 @@ func TestBookFirst(t *testing.T) {
 		if want == api.Smooth {
 			continue
 		}
-		checkZero(t, want, questions(b, -1, works)...)
-		checkZero(t, want, func() (bool, api.Hitch) {
+		model.CheckZero(t, want, questions(b, -1, works)...)
+		model.CheckZero(t, want, func() (bool, api.Hitch) {
 			l, h := slack.Windows(b, c)
 			return l == nil, h
 		}, func() (bool, api.Hitch) {
@@ -183,15 +184,6 @@ func questions(b api.SlackBook, n int, works []int) []func() (bool, api.Hitch) {
 		tick, left, h := slack.Ask(b)
 		return tick == 0 && left == 0, h
 	}}
-}
-
-func checkZero(t *testing.T, want api.Hitch, calls ...func() (bool, api.Hitch)) {
-	t.Helper()
-	for i, call := range calls {
-		if zero, h := call(); !zero || h != want {
-			t.Errorf("call %d: zero values: %v, %v, want %v", i, zero, h, want)
-		}
-	}
 }
 
 // P0.3, P3.5

@@ -8,6 +8,7 @@ import (
 	"testing"
 
 	"lagan/api"
+	"lagan/model"
 	"lagan/slack"
 )
 
@@ -317,8 +318,8 @@ func TestCasesAsReckonedOtherwise(t *testing.T) {
 // checkAdrift checks what is told of a book that has no case.
 func checkAdrift(t *testing.T, b api.SlackBook) {
 	t.Helper()
-	checkZero(t, api.Adrift, questions(b, 0, nil)...)
-	checkZero(t, api.Adrift, func() (bool, api.Hitch) {
+	model.CheckZero(t, api.Adrift, questions(b, 0, nil)...)
+	model.CheckZero(t, api.Adrift, func() (bool, api.Hitch) {
 		o, h := slack.Blow(b, reach(-9, 9))
 		return isZero(o), h
 	})
@@ -347,7 +348,7 @@ func checkNumbers(t *testing.T, b api.SlackBook, cases []api.SlackCase) {
 func checkTicks(t *testing.T, b api.SlackBook, cases []api.SlackCase) {
 	t.Helper()
 	for tick := range 201 {
-		want := modelKnown(cases, func(c api.SlackCase) bool { return modelSlack(b, c, tick) })
+		want := model.Known(cases, func(c api.SlackCase) bool { return modelSlack(b, c, tick) })
 		if u, h := slack.At(b, tick); u != want || h != api.Smooth {
 			t.Errorf("At(%v, %d): %v, %v, want %v", b, tick, u, h, want)
 		}
@@ -562,8 +563,8 @@ func TestClashAsReckonedOtherwise(t *testing.T) {
 	clashed := 0
 	eachRandom(200, func(r *rand.Rand, b api.SlackBook) {
 		var few []int
-		for _, l := range lists(len(b.Watches)) {
-			if (few == nil || compareLists(l, few) < 0) && len(modelCases(only(b, l))) == 0 {
+		for _, l := range model.Lists(len(b.Watches)) {
+			if (few == nil || model.CompareLists(l, few) < 0) && len(modelCases(only(b, l))) == 0 {
 				few = l
 			}
 		}

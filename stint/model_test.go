@@ -1,12 +1,12 @@
 package stint_test
 
 import (
-	"cmp"
 	"math/rand"
 	"slices"
 	"testing"
 
 	"lagan/api"
+	"lagan/model"
 	"lagan/stint"
 )
 
@@ -70,8 +70,6 @@ func isZero(b api.StintBook) bool {
 	return b.Rest == 0 && b.Rows == nil && b.Places == nil && b.Men == nil && b.Dives == nil && b.Soundings == nil
 }
 
-func isIn(r api.Reach, n int) bool { return r.Least <= n && n <= r.Most }
-
 // modelStay returns the stay at a depth: rows that go deeper are asked first, and shallower ones afterwards.
 func modelStay(b api.StintBook, depth int) int {
 	stay := 0
@@ -86,7 +84,7 @@ func modelStay(b api.StintBook, depth int) int {
 // modelIs tells whether depths that have no hitch are a case of a book.
 func modelIs(b api.StintBook, depths []int) bool {
 	for i, r := range b.Places {
-		if !isIn(r, depths[i]) {
+		if !model.In(r, depths[i]) {
 			return false
 		}
 	}
@@ -122,23 +120,6 @@ func modelCases(b api.StintBook) [][]int {
 		}
 	}
 	return cases
-}
-
-// modelKnown returns how well something is known.
-func modelKnown(cases [][]int, isSo func(depths []int) bool) api.Known {
-	yes := 0
-	for _, depths := range cases {
-		if isSo(depths) {
-			yes++
-		}
-	}
-	switch yes {
-	case len(cases):
-		return api.Surely
-	case 0:
-		return api.Never
-	}
-	return api.Unsure
 }
 
 // modelMay tells whether a man may do a dive in a case.
@@ -194,7 +175,7 @@ func modelGood(b api.StintBook, depths []int, rota [][]int) bool {
 
 // isSure tells whether a rota is good in each case.
 func isSure(b api.StintBook, cases [][]int, rota [][]int) bool {
-	return modelKnown(cases, func(depths []int) bool { return modelGood(b, depths, rota) }) == api.Surely
+	return model.Known(cases, func(depths []int) bool { return modelGood(b, depths, rota) }) == api.Surely
 }
 
 // modelLists returns the lists of men for each dive, as many as it needs, whether they may do it or not.
@@ -202,7 +183,7 @@ func modelLists(b api.StintBook) [][][]int {
 	all := [][][]int{{}}
 	for _, d := range b.Dives {
 		var longer [][][]int
-		for _, men := range lists(len(b.Men)) {
+		for _, men := range model.Lists(len(b.Men)) {
 			if len(men) != d.Men {
 				continue
 			}
@@ -278,33 +259,6 @@ func only(b api.StintBook, list []int) api.StintBook {
 		o.Soundings = append(o.Soundings, b.Soundings[i])
 	}
 	return o
-}
-
-// lists returns all lists of numbers below n that are ascending.
-func lists(n int) [][]int {
-	if n == 0 {
-		return [][]int{{}}
-	}
-	all := lists(n - 1)
-	for _, l := range all[:len(all):len(all)] {
-		all = append(all, append(slices.Clone(l), n-1))
-	}
-	return all
-}
-
-// compareLists compares by how many elements there are, and then by these.
-func compareLists(a, b []int) int {
-	return cmp.Or(cmp.Compare(len(a), len(b)), slices.Compare(a, b))
-}
-
-// fewestOf returns the fewest numbers below n of which something is so, and whether there are any.
-func fewestOf(n int, isSo func(list []int) bool) (fewest []int, found bool) {
-	for _, l := range lists(n) {
-		if (!found || compareLists(l, fewest) < 0) && isSo(l) {
-			fewest, found = l, true
-		}
-	}
-	return fewest, found
 }
 
 // randomTable returns rows that have no hitch.
@@ -388,13 +342,4 @@ func mustCases(t *testing.T, b api.StintBook) int {
 		t.Fatalf("Cases(%v): %v", b, h)
 	}
 	return n
-}
-
-func contains[T comparable](all, some []T) bool {
-	for _, x := range some {
-		if !slices.Contains(all, x) {
-			return false
-		}
-	}
-	return true
 }

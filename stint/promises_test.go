@@ -6,6 +6,7 @@ import (
 	"testing"
 
 	"lagan/api"
+	"lagan/model"
 	"lagan/stint"
 )
 
@@ -63,7 +64,7 @@ func checkDepthsTold(t *testing.T, b api.StintBook, really []int) {
 			t.Errorf("%v, %v: Depths %d: %v", b, really, i, l)
 		}
 		stay, _ := stint.Stay(b, depth)
-		if x, _ := stint.Stays(b, i); !isIn(x, stay) {
+		if x, _ := stint.Stays(b, i); !model.In(x, stay) {
 			t.Errorf("%v, %v: Stays %d: %v, but %d", b, really, i, x, stay)
 		}
 		for line := range api.MaxStintDepth + 1 {
@@ -179,12 +180,12 @@ func TestCrewAndDropAreFewest(t *testing.T) {
 		if found != (len(drop) == 0) || found && !hasRota(crewed(b, men)) || !hasRota(dropped(b, drop)) {
 			t.Errorf("%v: Crew: %v, %v, Drop: %v", b, men, found, drop)
 		}
-		for _, l := range lists(len(b.Men)) {
+		for _, l := range model.Lists(len(b.Men)) {
 			if (!found || len(l) < len(men)) && hasRota(crewed(b, l)) {
 				t.Errorf("Crew(%v): %v, but %v", b, men, l)
 			}
 		}
-		for _, l := range lists(len(b.Dives)) {
+		for _, l := range model.Lists(len(b.Dives)) {
 			if len(l) < len(drop) && hasRota(dropped(b, l)) {
 				t.Errorf("Drop(%v): %v, but %v", b, drop, l)
 			}
@@ -231,11 +232,11 @@ func checkLearnt(t *testing.T, r *rand.Rand, before, after api.StintBook) {
 	}
 	for i := range before.Places {
 		was, _ := stint.Depths(before, i)
-		if l, _ := stint.Depths(after, i); !contains(was, l) {
+		if l, _ := stint.Depths(after, i); !model.Contains(was, l) {
 			t.Errorf("%v: %d is %v deep, but %v: %v", after, i, l, before, was)
 		}
 		stays, _ := stint.Stays(before, i)
-		if x, _ := stint.Stays(after, i); !isIn(stays, x.Least) || !isIn(stays, x.Most) {
+		if x, _ := stint.Stays(after, i); !model.In(stays, x.Least) || !model.In(stays, x.Most) {
 			t.Errorf("%v: Stays %d: %v, but %v: %v", after, i, x, before, stays)
 		}
 	}
@@ -286,7 +287,7 @@ func TestSoundingsClashAlone(t *testing.T) {
 		if !clashes(l) {
 			t.Errorf("Clash(%v): %v, but they have a case", b, l)
 		}
-		for _, few := range lists(len(b.Soundings)) {
+		for _, few := range model.Lists(len(b.Soundings)) {
 			if len(few) < len(l) && clashes(few) {
 				t.Errorf("Clash(%v): %v, but %v clash", b, l, few)
 			}

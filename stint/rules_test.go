@@ -10,6 +10,7 @@ import (
 	"testing"
 
 	"lagan/api"
+	"lagan/model"
 	"lagan/stint"
 )
 
@@ -122,15 +123,6 @@ func TestGoroutines(t *testing.T) {
 	}
 }
 
-func checkZero(t *testing.T, want api.Hitch, calls ...func() (bool, api.Hitch)) {
-	t.Helper()
-	for i, call := range calls {
-		if zero, h := call(); !zero || h != want {
-			t.Errorf("call %d: zero values: %v, %v, want %v", i, zero, h, want)
-		}
-	}
-}
-
 // questions are the functions that need a case, and a book alone; each tells whether its results are zero values, and returns its hitch.
 func questions(b api.StintBook) []func() (bool, api.Hitch) {
 	return []func() (bool, api.Hitch){func() (bool, api.Hitch) {
@@ -176,9 +168,9 @@ func TestBookFirst(t *testing.T) {
 		if want == api.Smooth {
 			continue
 		}
-		checkZero(t, want, questions(b)...)
-		checkZero(t, want, placed(b, -1, -1, -1)...)
-		checkZero(t, want, func() (bool, api.Hitch) {
+		model.CheckZero(t, want, questions(b)...)
+		model.CheckZero(t, want, placed(b, -1, -1, -1)...)
+		model.CheckZero(t, want, func() (bool, api.Hitch) {
 			n, h := stint.Stay(b, 31)
 			return n == 0, h
 		}, func() (bool, api.Hitch) {

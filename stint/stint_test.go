@@ -8,6 +8,7 @@ import (
 	"testing"
 
 	"lagan/api"
+	"lagan/model"
 	"lagan/stint"
 )
 
@@ -301,10 +302,10 @@ func TestMay(t *testing.T) {
 func TestWhatIsNotThere(t *testing.T) {
 	for _, b := range []api.StintBook{bookT(), adriftBook()} {
 		for _, i := range []int{-1, 3, math.MinInt, math.MaxInt} {
-			checkZero(t, api.Missing, placed(b, i, i, 0)...)
-			checkZero(t, api.Missing, placed(b, i, 0, i)...)
+			model.CheckZero(t, api.Missing, placed(b, i, i, 0)...)
+			model.CheckZero(t, api.Missing, placed(b, i, 0, i)...)
 		}
-		checkZero(t, api.Missing, placed(b, 2, 2, 2)...)
+		model.CheckZero(t, api.Missing, placed(b, 2, 2, 2)...)
 	}
 }
 
@@ -467,9 +468,9 @@ func TestAllAsReckonedOtherwise(t *testing.T) {
 // checkAdrift checks what is told of a book that has no case.
 func checkAdrift(t *testing.T, r *rand.Rand, b api.StintBook) {
 	t.Helper()
-	checkZero(t, api.Adrift, questions(b)...)
+	model.CheckZero(t, api.Adrift, questions(b)...)
 	for place := range b.Places {
-		checkZero(t, api.Adrift, placed(b, place, 0, len(b.Dives)-1)...)
+		model.CheckZero(t, api.Adrift, placed(b, place, 0, len(b.Dives)-1)...)
 	}
 	if x, ok := randomRota(r, b); ok {
 		if u, h := stint.Good(b, x); u != unsure || h != api.Adrift {
@@ -507,7 +508,7 @@ func checkMay(t *testing.T, r *rand.Rand, b api.StintBook, cases [][]int) {
 	t.Helper()
 	for man := range b.Men {
 		for dive := range b.Dives {
-			want := modelKnown(cases, func(depths []int) bool { return modelMay(b, depths, man, dive) })
+			want := model.Known(cases, func(depths []int) bool { return modelMay(b, depths, man, dive) })
 			if u, h := stint.May(b, man, dive); u != want || h != api.Smooth {
 				t.Errorf("May(%v, %d, %d): %v, %v, want %v", b, man, dive, u, h, want)
 			}
@@ -518,7 +519,7 @@ func checkMay(t *testing.T, r *rand.Rand, b api.StintBook, cases [][]int) {
 		if !ok {
 			return
 		}
-		want := modelKnown(cases, func(depths []int) bool { return modelGood(b, depths, x) })
+		want := model.Known(cases, func(depths []int) bool { return modelGood(b, depths, x) })
 		if u, h := stint.Good(b, x); u != want || h != api.Smooth {
 			t.Errorf("Good(%v, %v): %v, %v, want %v", b, x, u, h, want)
 		}
@@ -553,11 +554,11 @@ func checkRotas(t *testing.T, b api.StintBook, cases [][]int) {
 // checkFewest checks the fewest men, and the fewest dives that are dropped.
 func checkFewest(t *testing.T, b api.StintBook, cases [][]int) {
 	t.Helper()
-	men, found := fewestOf(len(b.Men), func(l []int) bool { return len(goodRotas(crewed(b, l), cases)) > 0 })
+	men, found := model.FewestOf(len(b.Men), func(l []int) bool { return len(goodRotas(crewed(b, l), cases)) > 0 })
 	if l, is, h := stint.Crew(b); !slices.Equal(l, men) || is != found || h != api.Smooth {
 		t.Errorf("Crew(%v): %v, %v, %v, want %v, %v", b, l, is, h, men, found)
 	}
-	dives, _ := fewestOf(len(b.Dives), func(l []int) bool { return len(goodRotas(dropped(b, l), cases)) > 0 })
+	dives, _ := model.FewestOf(len(b.Dives), func(l []int) bool { return len(goodRotas(dropped(b, l), cases)) > 0 })
 	if l, h := stint.Drop(b); !slices.Equal(l, dives) || h != api.Smooth {
 		t.Errorf("Drop(%v): %v, %v, want %v", b, l, h, dives)
 	}
@@ -627,7 +628,7 @@ func TestClashAsReckonedOtherwise(t *testing.T) {
 	clashed := map[int]int{}
 	eachRandom(500, func(r *rand.Rand, b api.StintBook) {
 		b = soundedAtRandom(r, b)
-		few, _ := fewestOf(len(b.Soundings), func(l []int) bool { return len(modelCases(only(b, l))) == 0 })
+		few, _ := model.FewestOf(len(b.Soundings), func(l []int) bool { return len(modelCases(only(b, l))) == 0 })
 		clashed[len(few)]++
 		if l, h := stint.Clash(b); !slices.Equal(l, few) || h != api.Smooth {
 			t.Errorf("Clash(%v): %v, %v, want %v", b, l, h, few)

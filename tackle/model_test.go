@@ -1,12 +1,12 @@
 package tackle_test
 
 import (
-	"cmp"
 	"math/rand"
 	"slices"
 	"testing"
 
 	"lagan/api"
+	"lagan/model"
 	"lagan/tackle"
 )
 
@@ -101,17 +101,6 @@ func isZero(b api.TackleBook) bool {
 	return b.Winch == 0 && b.Parts == nil && b.Gears == nil && b.Pieces == nil && b.Tests == nil
 }
 
-func isIn(r api.Reach, n int) bool { return r.Least <= n && n <= r.Most }
-
-func contains[T comparable](all, some []T) bool {
-	for _, x := range some {
-		if !slices.Contains(all, x) {
-			return false
-		}
-	}
-	return true
-}
-
 // modelPulls returns the pull on each part of a gear, and on the winch: the least one that is no less than the pull ahead, shared.
 func modelPulls(b api.TackleBook, gear, load int) []int {
 	pulls := []int{load}
@@ -149,12 +138,12 @@ func modelLifts(b api.TackleBook, bears []int, gear, load int) bool {
 // modelIs tells whether a case that has no hitch is one of a book.
 func modelIs(b api.TackleBook, c api.TackleCase) bool {
 	for i, p := range b.Parts {
-		if !isIn(p.Bears, c.Bears[i]) {
+		if !model.In(p.Bears, c.Bears[i]) {
 			return false
 		}
 	}
 	for i, p := range b.Pieces {
-		if !isIn(p.Weight, c.Weights[i]) {
+		if !model.In(p.Weight, c.Weights[i]) {
 			return false
 		}
 	}
@@ -164,21 +153,6 @@ func modelIs(b api.TackleBook, c api.TackleCase) bool {
 		}
 	}
 	return true
-}
-
-// numberings returns all lists of a number of each reach.
-func numberings(reaches []api.Reach) [][]int {
-	all := [][]int{nil}
-	for _, r := range reaches {
-		var longer [][]int
-		for _, l := range all {
-			for n := r.Least; n <= r.Most; n++ {
-				longer = append(longer, append(slices.Clone(l), n))
-			}
-		}
-		all = longer
-	}
-	return all
 }
 
 // modelAll returns all that is of wider reaches, cases of the book or not.
@@ -191,8 +165,8 @@ func modelAll(b api.TackleBook, by int) []api.TackleCase {
 		weights = append(weights, reach(max(1, p.Weight.Least-by), min(api.MaxTackleLoad, p.Weight.Most+by)))
 	}
 	var all []api.TackleCase
-	for _, x := range numberings(bears) {
-		for _, y := range numberings(weights) {
+	for _, x := range model.Numberings(bears) {
+		for _, y := range model.Numberings(weights) {
 			all = append(all, tackleCase(x, y...))
 		}
 	}
@@ -210,27 +184,16 @@ func modelCases(b api.TackleBook) []api.TackleCase {
 	return cases
 }
 
-func modelKnown(cases []api.TackleCase, isSo func(c api.TackleCase) bool) api.Known {
-	isNot := func(c api.TackleCase) bool { return !isSo(c) }
-	if !slices.ContainsFunc(cases, isNot) {
-		return api.Surely
-	}
-	if !slices.ContainsFunc(cases, isSo) {
-		return api.Never
-	}
-	return api.Unsure
-}
-
 // modelMay tells whether a gear lifts a piece.
 func modelMay(b api.TackleBook, cases []api.TackleCase, gear, piece int) api.Known {
-	return modelKnown(cases, func(c api.TackleCase) bool { return modelLifts(b, c.Bears, gear, c.Weights[piece]) })
+	return model.Known(cases, func(c api.TackleCase) bool { return modelLifts(b, c.Bears, gear, c.Weights[piece]) })
 }
 
 // modelMost returns the greatest load that a gear lifts in each case.
 func modelMost(b api.TackleBook, cases []api.TackleCase, gear int) int {
 	most := 0
 	for load := range api.MaxTackleLoad + 1 {
-		if modelKnown(cases, func(c api.TackleCase) bool { return modelLifts(b, c.Bears, gear, load) }) == api.Surely {
+		if model.Known(cases, func(c api.TackleCase) bool { return modelLifts(b, c.Bears, gear, load) }) == api.Surely {
 			most = load
 		}
 	}
@@ -259,12 +222,12 @@ func modelLifted(b api.TackleBook, cases []api.TackleCase, gears []int) bool {
 
 // modelFewest returns the fewest gears that surely lift all pieces, and whether there are any.
 func modelFewest(b api.TackleBook, cases []api.TackleCase) ([]int, bool) {
-	return fewestOf(len(b.Gears), func(gears []int) bool { return modelLifted(b, cases, gears) })
+	return model.FewestOf(len(b.Gears), func(gears []int) bool { return modelLifted(b, cases, gears) })
 }
 
 // modelShare returns a gear of its own for each piece, and whether there is one.
 func modelShare(b api.TackleBook, cases []api.TackleCase) ([]int, bool) {
-	for _, gears := range permutations(upTo(len(b.Gears))) {
+	for _, gears := range model.Permutations(model.UpTo(len(b.Gears))) {
 		if len(gears) < len(b.Pieces) {
 			return nil, false
 		}
@@ -295,8 +258,8 @@ func renewed(cases []api.TackleCase, parts []int) []api.TackleCase {
 
 // modelRenew returns the fewest parts that are to be new, and whether there are any such parts.
 func modelRenew(b api.TackleBook, cases []api.TackleCase) ([]int, bool) {
-	return fewestOf(len(b.Parts), func(parts []int) bool {
-		return modelLifted(b, renewed(cases, parts), upTo(len(b.Gears)))
+	return model.FewestOf(len(b.Parts), func(parts []int) bool {
+		return modelLifted(b, renewed(cases, parts), model.UpTo(len(b.Gears)))
 	})
 }
 
@@ -327,57 +290,6 @@ func only(b api.TackleBook, list []int) api.TackleBook {
 		o.Tests = append(o.Tests, b.Tests[i])
 	}
 	return o
-}
-
-// upTo returns the numbers below n.
-func upTo(n int) []int {
-	var all []int
-	for i := range n {
-		all = append(all, i)
-	}
-	return all
-}
-
-// permutations returns all orders of some numbers, the least list first if they are ascending.
-func permutations(numbers []int) [][]int {
-	if len(numbers) == 0 {
-		return [][]int{nil}
-	}
-	var all [][]int
-	for i, n := range numbers {
-		rest := slices.Concat(numbers[:i], numbers[i+1:])
-		for _, l := range permutations(rest) {
-			all = append(all, append([]int{n}, l...))
-		}
-	}
-	return all
-}
-
-// lists returns all lists of numbers below n that are ascending.
-func lists(n int) [][]int {
-	if n == 0 {
-		return [][]int{{}}
-	}
-	all := lists(n - 1)
-	for _, l := range all[:len(all):len(all)] {
-		all = append(all, append(slices.Clone(l), n-1))
-	}
-	return all
-}
-
-// compareLists compares by how many elements there are, and then by these.
-func compareLists(a, b []int) int {
-	return cmp.Or(cmp.Compare(len(a), len(b)), slices.Compare(a, b))
-}
-
-// fewestOf returns the fewest numbers below n of which something is so, and whether there are any.
-func fewestOf(n int, isSo func(list []int) bool) (fewest []int, found bool) {
-	for _, l := range lists(n) {
-		if (!found || compareLists(l, fewest) < 0) && isSo(l) {
-			fewest, found = l, true
-		}
-	}
-	return fewest, found
 }
 
 // randomReach returns a reach of three numbers at most, and one of these.

@@ -6,6 +6,7 @@ import (
 	"testing"
 
 	"lagan/api"
+	"lagan/model"
 	"lagan/tackle"
 )
 
@@ -35,7 +36,7 @@ func TestHoweverWornItIs(t *testing.T) {
 				t.Errorf("%v, %v: Most %d: %d, %v", b, really, gear, most, h)
 			}
 			for load := 1; load <= 99; load += 1 + r.Intn(5) {
-				if l, h := tackle.Weak(b, gear, load); h != api.Smooth || !contains(l, modelGives(b, really.Bears, gear, load)) {
+				if l, h := tackle.Weak(b, gear, load); h != api.Smooth || !model.Contains(l, modelGives(b, really.Bears, gear, load)) {
 					t.Errorf("%v, %v: Weak %d, %d: %v, %v", b, really, gear, load, l, h)
 				}
 			}
@@ -267,11 +268,11 @@ func TestGearsAreFewest(t *testing.T) {
 		} else {
 			none++
 		}
-		if is != surelyLift(b, upTo(len(b.Gears))) || is && !surelyLift(b, few) {
+		if is != surelyLift(b, model.UpTo(len(b.Gears))) || is && !surelyLift(b, few) {
 			t.Errorf("Fewest(%v): %v, %v", b, few, is)
 		}
-		for _, l := range lists(len(b.Gears)) {
-			if is && compareLists(l, few) < 0 && surelyLift(b, l) {
+		for _, l := range model.Lists(len(b.Gears)) {
+			if is && model.CompareLists(l, few) < 0 && surelyLift(b, l) {
 				t.Errorf("Fewest(%v): %v, but %v", b, few, l)
 			}
 		}
@@ -304,16 +305,16 @@ func TestRenewedPartsDo(t *testing.T) {
 		// Tests tell what the others bear, and nothing of new parts: all that can be so is looked at without them.
 		cases := modelCases(b)
 		does := func(parts []int) bool {
-			return modelLifted(b, renewed(cases, parts), upTo(len(b.Gears)))
+			return modelLifted(b, renewed(cases, parts), model.UpTo(len(b.Gears)))
 		}
 		if found {
 			renewals[len(parts)]++
 		}
-		if found != does(upTo(len(b.Parts))) || found && !does(parts) {
+		if found != does(model.UpTo(len(b.Parts))) || found && !does(parts) {
 			t.Errorf("Renew(%v): %v, %v", b, parts, found)
 		}
-		for _, l := range lists(len(b.Parts)) {
-			if found && compareLists(l, parts) < 0 && does(l) {
+		for _, l := range model.Lists(len(b.Parts)) {
+			if found && model.CompareLists(l, parts) < 0 && does(l) {
 				t.Errorf("Renew(%v): %v, but %v", b, parts, l)
 			}
 		}
@@ -322,7 +323,7 @@ func TestRenewedPartsDo(t *testing.T) {
 		for _, part := range parts {
 			bare = borne(bare, part, one(99))
 		}
-		if found && !surelyLift(bare, upTo(len(b.Gears))) {
+		if found && !surelyLift(bare, model.UpTo(len(b.Gears))) {
 			t.Errorf("Renew(%v): %v", b, parts)
 		}
 	})
@@ -371,13 +372,13 @@ func checkLearnt(t *testing.T, before, after api.TackleBook) {
 	}
 	for part := range before.Parts {
 		was, _ := tackle.Bears(before, part)
-		if l, _ := tackle.Bears(after, part); !contains(was, l) {
+		if l, _ := tackle.Bears(after, part); !model.Contains(was, l) {
 			t.Errorf("%v: %d bears %v, but %v: %v", after, part, l, before, was)
 		}
 	}
 	for piece := range before.Pieces {
 		was, _ := tackle.Weights(before, piece)
-		if l, _ := tackle.Weights(after, piece); !contains(was, l) {
+		if l, _ := tackle.Weights(after, piece); !model.Contains(was, l) {
 			t.Errorf("%v: %d weighs %v, but %v: %v", after, piece, l, before, was)
 		}
 	}
@@ -394,7 +395,7 @@ func checkLearnt(t *testing.T, before, after api.TackleBook) {
 		}
 		for load := 1; load <= 30; load += 3 {
 			was, _ := tackle.Weak(before, gear, load)
-			if l, _ := tackle.Weak(after, gear, load); !contains(was, l) {
+			if l, _ := tackle.Weak(after, gear, load); !model.Contains(was, l) {
 				t.Errorf("%v: Weak %d, %d: %v, but %v: %v", after, gear, load, l, before, was)
 			}
 		}
@@ -436,8 +437,8 @@ func TestTestsClashAlone(t *testing.T) {
 		if !clashes(l) {
 			t.Errorf("Clash(%v): %v, but they have a case", b, l)
 		}
-		for _, few := range lists(len(b.Tests)) {
-			if compareLists(few, l) < 0 && clashes(few) {
+		for _, few := range model.Lists(len(b.Tests)) {
+			if model.CompareLists(few, l) < 0 && clashes(few) {
 				t.Errorf("Clash(%v): %v, but %v clash", b, l, few)
 			}
 		}

@@ -10,6 +10,7 @@ import (
 	"testing"
 
 	"lagan/api"
+	"lagan/model"
 	"lagan/tackle"
 )
 
@@ -123,15 +124,6 @@ func TestGoroutines(t *testing.T) {
 	}
 }
 
-func checkZero(t *testing.T, want api.Hitch, calls ...func() (bool, api.Hitch)) {
-	t.Helper()
-	for i, call := range calls {
-		if zero, h := call(); !zero || h != want {
-			t.Errorf("call %d: zero values: %v, %v, want %v", i, zero, h, want)
-		}
-	}
-}
-
 // questions are the functions that need a case, and a book alone; each tells whether its results are zero values, and returns its hitch.
 func questions(b api.TackleBook) []func() (bool, api.Hitch) {
 	return []func() (bool, api.Hitch){func() (bool, api.Hitch) {
@@ -204,12 +196,12 @@ func TestBookFirst(t *testing.T) {
 		if want == api.Smooth {
 			continue
 		}
-		checkZero(t, want, questions(b)...)
-		checkZero(t, want, withGear(b, -1, -1)...)
-		checkZero(t, want, withLoad(b, -1, 0)...)
-		checkZero(t, want, withPart(b, -1)...)
-		checkZero(t, want, withPiece(b, -1)...)
-		checkZero(t, want, func() (bool, api.Hitch) {
+		model.CheckZero(t, want, questions(b)...)
+		model.CheckZero(t, want, withGear(b, -1, -1)...)
+		model.CheckZero(t, want, withLoad(b, -1, 0)...)
+		model.CheckZero(t, want, withPart(b, -1)...)
+		model.CheckZero(t, want, withPiece(b, -1)...)
+		model.CheckZero(t, want, func() (bool, api.Hitch) {
 			is, h := tackle.Lifts(b, c, -1, -1)
 			return !is, h
 		}, func() (bool, api.Hitch) {

@@ -8,6 +8,7 @@ import (
 	"testing"
 
 	"lagan/api"
+	"lagan/model"
 	"lagan/tackle"
 )
 
@@ -522,9 +523,9 @@ func TestAllAsReckonedOtherwise(t *testing.T) {
 // checkAdrift checks what is told of a book that has no case.
 func checkAdrift(t *testing.T, b api.TackleBook) {
 	t.Helper()
-	checkZero(t, api.Adrift, questions(b)...)
-	checkZero(t, api.Adrift, withGear(b, 0, 0)...)
-	checkZero(t, api.Adrift, func() (bool, api.Hitch) {
+	model.CheckZero(t, api.Adrift, questions(b)...)
+	model.CheckZero(t, api.Adrift, withGear(b, 0, 0)...)
+	model.CheckZero(t, api.Adrift, func() (bool, api.Hitch) {
 		l, h := tackle.Bears(b, 0)
 		return l == nil, h
 	}, func() (bool, api.Hitch) {
@@ -542,27 +543,17 @@ func checkAdrift(t *testing.T, b api.TackleBook) {
 	})
 }
 
-// numbersOf returns what is told of cases, ascending.
-func numbersOf(cases []api.TackleCase, tell func(c api.TackleCase) int) []int {
-	var all []int
-	for _, c := range cases {
-		all = append(all, tell(c))
-	}
-	slices.Sort(all)
-	return slices.Compact(all)
-}
-
 // checkNumbers checks what is told of parts, and of weights.
 func checkNumbers(t *testing.T, b api.TackleBook, cases []api.TackleCase) {
 	t.Helper()
 	for part := range b.Parts {
-		want := numbersOf(cases, func(c api.TackleCase) int { return c.Bears[part] })
+		want := model.NumbersOf(cases, func(c api.TackleCase) int { return c.Bears[part] })
 		if l, h := tackle.Bears(b, part); !slices.Equal(l, want) || h != api.Smooth {
 			t.Errorf("Bears(%v, %d): %v, %v, want %v", b, part, l, h, want)
 		}
 	}
 	for piece := range b.Pieces {
-		want := numbersOf(cases, func(c api.TackleCase) int { return c.Weights[piece] })
+		want := model.NumbersOf(cases, func(c api.TackleCase) int { return c.Weights[piece] })
 		if l, h := tackle.Weights(b, piece); !slices.Equal(l, want) || h != api.Smooth {
 			t.Errorf("Weights(%v, %d): %v, %v, want %v", b, piece, l, h, want)
 		}
@@ -617,11 +608,11 @@ func TestWhatIsNotThere(t *testing.T) {
 	for _, b := range []api.TackleBook{bookG(), adriftBook()} {
 		c := tackleCase([]int{30, 20, 9}, 21, 8)
 		for _, i := range []int{-1, 3, 4, math.MinInt, math.MaxInt} {
-			checkZero(t, api.Missing, withGear(b, i, 0)...)
-			checkZero(t, api.Missing, withLoad(b, i, 0)...)
-			checkZero(t, api.Missing, withPart(b, i)...)
-			checkZero(t, api.Missing, withPiece(b, i)...)
-			checkZero(t, api.Missing, func() (bool, api.Hitch) {
+			model.CheckZero(t, api.Missing, withGear(b, i, 0)...)
+			model.CheckZero(t, api.Missing, withLoad(b, i, 0)...)
+			model.CheckZero(t, api.Missing, withPart(b, i)...)
+			model.CheckZero(t, api.Missing, withPiece(b, i)...)
+			model.CheckZero(t, api.Missing, func() (bool, api.Hitch) {
 				is, h := tackle.Lifts(b, c, i, 0)
 				return !is, h
 			}, func() (bool, api.Hitch) {
@@ -630,13 +621,13 @@ func TestWhatIsNotThere(t *testing.T) {
 			})
 		}
 		for _, i := range []int{0, -1, 100, math.MinInt, math.MaxInt} {
-			checkZero(t, api.Bounds, withLoad(b, 1, i)...)
+			model.CheckZero(t, api.Bounds, withLoad(b, 1, i)...)
 		}
 		// There are three parts, but two gears, and two pieces.
-		checkZero(t, api.Missing, withGear(b, 2, 0)...)
-		checkZero(t, api.Missing, withGear(b, 0, 2)[0])
-		checkZero(t, api.Missing, withLoad(b, 2, 1)...)
-		checkZero(t, api.Missing, withPiece(b, 2)...)
+		model.CheckZero(t, api.Missing, withGear(b, 2, 0)...)
+		model.CheckZero(t, api.Missing, withGear(b, 0, 2)[0])
+		model.CheckZero(t, api.Missing, withLoad(b, 2, 1)...)
+		model.CheckZero(t, api.Missing, withPiece(b, 2)...)
 	}
 	if l, h := tackle.Bears(bookG(), 2); !slices.Equal(l, []int{9}) || h != api.Smooth {
 		t.Errorf("%v, %v", l, h)
@@ -663,7 +654,7 @@ func TestClashAsReckonedOtherwise(t *testing.T) {
 	clashed := map[int]int{}
 	eachRandom(600, func(r *rand.Rand, b api.TackleBook) {
 		b = triedAtRandom(r, b)
-		few, _ := fewestOf(len(b.Tests), func(l []int) bool { return len(modelCases(only(b, l))) == 0 })
+		few, _ := model.FewestOf(len(b.Tests), func(l []int) bool { return len(modelCases(only(b, l))) == 0 })
 		clashed[len(few)]++
 		if l, h := tackle.Clash(b); !slices.Equal(l, few) || h != api.Smooth {
 			t.Errorf("Clash(%v): %v, %v, want %v", b, l, h, few)
