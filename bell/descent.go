@@ -29,11 +29,7 @@ func (b book) holds(depth int) int { return b.Room * (atmosphere + depth) / atmo
 
 // descent returns the bell of the book with all men, by a plan.
 func (c checked) descent(plan []int) descent {
-	all := descent{checked: c, depth: c.Depth, plan: plan}
-	for i := range c.Men {
-		all.men = append(all.men, i)
-	}
-	return all
+	return descent{checked: c, depth: c.Depth, plan: plan, men: terms.Indexes(len(c.Men))}
 }
 
 // play returns how many measures there are if the men who are down, and the leak, use those of a case.

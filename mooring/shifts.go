@@ -121,12 +121,9 @@ func (p proven) shift() (shift, bool) {
 	if p.isSafe() {
 		return none, true
 	}
-	var anchors []int
-	for anchor := range p.Anchors {
-		anchors = append(anchors, anchor)
-	}
 	// A goroutine for each anchor tries its shifts.
-	best, found := terms.Ranking[shift](compareShifts).Best(terms.Gather(anchors, p.shifts))
+	all := terms.Gather(terms.Indexes(len(p.Anchors)), p.shifts)
+	best, found := terms.Ranking[shift](compareShifts).Best(all)
 	if !found {
 		return none, false
 	}

@@ -36,13 +36,7 @@ func (c checked) rated(renewed []int) rated {
 }
 
 // gears returns the indexes of all gears.
-func (b book) gears() []int {
-	var all []int
-	for gear := range b.Gears {
-		all = append(all, gear)
-	}
-	return all
-}
+func (b book) gears() []int { return terms.Indexes(len(b.Gears)) }
 
 // most returns the greatest load that a gear lifts in each case once some parts are new. It lifts what is less than a load that it lifts, too, and a load of 0 always.
 func (c checked) most(gear int, renewed []int) haul {

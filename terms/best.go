@@ -51,6 +51,15 @@ func Bounds[N cmp.Ordered](first N, others ...N) (least, most N) {
 	return least, most
 }
 
+// Indexes returns all indexes below many, ascending.
+func Indexes(many int) []int {
+	var all []int
+	for i := range many {
+		all = append(all, i)
+	}
+	return all
+}
+
 // Lists returns all lists of indexes below many, ascending each; the last one has all of them.
 func Lists(many int) [][]int {
 	all := [][]int{nil}

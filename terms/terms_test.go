@@ -360,6 +360,14 @@ func TestBounds(t *testing.T) {
 	}
 }
 
+func TestIndexes(t *testing.T) {
+	for many, want := range map[int][]int{0: nil, 1: {0}, 4: {0, 1, 2, 3}} {
+		if l := terms.Indexes(many); !slices.Equal(l, want) {
+			t.Errorf("%d: %v", many, l)
+		}
+	}
+}
+
 func TestLists(t *testing.T) {
 	for many, want := range [][][]int{{nil}, {nil, {0}}, {nil, {0}, {1}, {0, 1}}, {nil, {0}, {1}, {0, 1}, {2}, {0, 2}, {1, 2}, {0, 1, 2}}} {
 		if l := terms.Lists(many); !slices.EqualFunc(l, want, slices.Equal) {
