@@ -2,6 +2,7 @@ package terms
 
 import (
 	"errors"
+	"strings"
 
 	"lagan/api"
 )
@@ -52,7 +53,7 @@ func Parse[B any](text string, read func(text string) B, check func(B) api.Hitch
 	return Read(text, func(text string) (B, error) { return catch(text, read) }, check)
 }
 
-// catch reads a book, and returns the WrongLine as an error that is panicked with where a line is wrong.
+// catch reads a book, or what else is in a text, and returns the WrongLine as an error that is panicked with where a line is wrong.
 func catch[B any](text string, read func(text string) B) (b B, err error) {
 	defer func() {
 		if wrong, ok := recover().(WrongLine); ok {
@@ -60,6 +61,21 @@ func catch[B any](text string, read func(text string) B) (b B, err error) {
 		}
 	}()
 	return read(text), nil
+}
+
+// ReadLine reads a line that stands by itself, without a line feed; read panics with a WrongLine if it is wrong, which is Shape.
+func ReadLine[T any](line string, read func(Line) T) (x T, h api.Hitch) {
+	if strings.Contains(line, lineFeed) {
+		return x, api.Shape
+	}
+	whole, err := catch(line, func(line string) (whole T) {
+		EachLine(line, func(l Line) { whole = read(l) })
+		return whole
+	})
+	if err != nil {
+		return x, api.Shape
+	}
+	return whole, api.Smooth
 }
 
 // Wrong returns what is panicked with if the line is wrong.

@@ -654,6 +654,22 @@ func TestLine(t *testing.T) {
 	}
 }
 
+func TestReadLine(t *testing.T) {
+	read := func(l terms.Line) []string {
+		l.Want(l.Word() == "a")
+		return l.Fields(1)
+	}
+	for line, want := range map[string][]string{
+		"a b": {"b"}, "a \x00": {"\x00"}, "a " + strings.Repeat("b", api.MaxText): {strings.Repeat("b", api.MaxText)},
+		"": nil, "a": nil, "b b": nil, "a b c": nil, "a  b": nil, " a b": nil, "a b\n": nil, "a b\na b": nil, "\na b": nil, "\n": nil,
+	} {
+		wantHitch := terms.HitchUnless(want != nil, api.Shape)
+		if l, h := terms.ReadLine(line, read); !slices.Equal(l, want) || h != wantHitch {
+			t.Errorf("%.20q: %.20q, %v", line, l, h)
+		}
+	}
+}
+
 func TestOneOf(t *testing.T) {
 	for word, want := range map[string]int{"n": 0, "ne": 1, "e": 2} {
 		if i, ok := terms.OneOf(word, "n", "ne", "e"); i != want || !ok {
@@ -764,6 +780,9 @@ func TestFields(t *testing.T) {
 		}
 	}
 	if s := terms.PrintLine("a", "b", "c"); s != "a b c\n" {
+		t.Errorf("%q", s)
+	}
+	if s := terms.PrintFields("a", "b", "c"); s != "a b c" {
 		t.Errorf("%q", s)
 	}
 }

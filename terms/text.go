@@ -27,9 +27,10 @@ func Lines(text string) []string {
 }
 
 // PrintLine joins a word and its fields to a line, with its line feed.
-func PrintLine(fields ...string) string {
-	return strings.Join(fields, blank) + lineFeed
-}
+func PrintLine(fields ...string) string { return PrintFields(fields...) + lineFeed }
+
+// PrintFields joins a word and its fields to a line that stands by itself, without a line feed.
+func PrintFields(fields ...string) string { return strings.Join(fields, blank) }
 
 // PrintEach writes several lines as a text, in order.
 func PrintEach[L any](lines []L, print func(L) string) string {
